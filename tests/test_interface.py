@@ -1,0 +1,130 @@
+"""The section "The interface": files, functions, parameters, which module imports from which; the limits of L10."""
+
+import ast
+import copy
+import importlib
+import inspect
+import pathlib
+import unittest
+
+FOLDER = pathlib.Path(__file__).resolve().parent.parent / "allboughs"
+
+INTERFACE = {
+    "words": {"is_name": "thing"},
+    "woods": {
+        "letters": "scope", "is_wood": "thing", "node_at": "wood place", "within": "wood place", "tie": "one other",
+        "is_tie": "one other thing", "parting": "one other", "least": "wood",
+    },
+    "conditions": {
+        "is_condition": "thing", "goes": "condition", "holds": "condition lot", "plain": "condition",
+        "flipped": "condition",
+    },
+    "machines": {"is_machine": "thing", "pressed": "machine"},
+    "building": {
+        "contrary": "machine", "meeting": "one other", "joining": "one other", "widened": "machine scope",
+        "turned": "machine", "started": "machine state",
+    },
+    "choices": {"is_choices": "thing", "tidied": "choices", "as_machine": "choices"},
+    "steps": {"is_ranks": "thing", "is_step": "ranks thing", "traced": "ranks steps"},
+}
+ORDER = ["errors", "checks", "words", "woods", "conditions", "ranking", "machines", "building", "choices", "steps"]
+
+WOOD = ("wood", ("x",), ((("x",), 0, 1), ((), 1, 1)))
+MACHINE = ("machine", ("x",), ((1, (("go", 0, 0), ("go", 0, 1))), (2, (("go", 0, 0), ("go", 0, 1)))))
+CHOICES = ("choices", ("x",), ((1, (((0, 0),), ((1, 1),))), (0, (((1, 1),), ((1, 1),)))))
+CONDITION = ("both", ("go", 0, 0), ("either", ("go", 1, 1), ("yes",)))
+STEP = ((0, 0), (0, 1), (1, 1))
+HISTORY = ((0, 1), ((None, ((0, 1),)),))
+FORMULA = ("some", "x", ("both", ("sub", "x", "y"), ("root", "x")))
+PASSED = {
+    "ahead": ((), (STEP,)), "again": ((STEP,),), "choices": (CHOICES,), "condition": (CONDITION, ("yes",)),
+    "formula": (FORMULA,), "history": (HISTORY, ((0,), ())), "lot": (((0, 0),), ()), "lots": ((((0, 0),), ((1, 0),)),),
+    "machine": (MACHINE,), "name": ("x",), "one": (WOOD, MACHINE), "other": (WOOD, MACHINE), "place": ((0, 1), ()),
+    "ranks": ((1, 2),), "scope": (("x", "y"),), "short": (("road", "x"),), "state": (1,), "step": (STEP,),
+    "steps": ((STEP, STEP),), "thing": (WOOD, MACHINE, CHOICES, CONDITION, STEP, HISTORY, FORMULA, "x", None),
+    "wood": (WOOD, ("wood", (), (((), 0, 0),))),
+}
+
+
+def modules():
+    """The names of the modules of the package and their trees."""
+    return {path.stem: ast.parse(path.read_text()) for path in sorted(FOLDER.glob("*.py"))}
+
+
+def functions():
+    """All functions of the interface, with the names of their parameters."""
+    for module, names in INTERFACE.items():
+        for name, parameters in names.items():
+            yield getattr(importlib.import_module(f"allboughs.{module}"), name), parameters.split()
+
+
+def calls():
+    """Calls of all functions of the interface with fitting arguments, some of which they refuse."""
+    for function, parameters in functions():
+        rows = [()]
+        for parameter in parameters:
+            rows = [(*row, value) for row in rows for value in PASSED[parameter]]
+        for row in rows:
+            yield function, parameters, row
+
+
+def outcome(function, *row, **named):
+    """What a function tells, or the error that it raises."""
+    try:
+        return function(*row, **named)
+    except ValueError as error:
+        return error.__class__, vars(error)
+
+
+class Interface(unittest.TestCase):
+    def test_functions_stand_in_their_files(self):
+        for module, names in INTERFACE.items():
+            defined = {node.name for node in modules()[module].body if isinstance(node, ast.FunctionDef)}
+            self.assertLessEqual(set(names), defined)
+
+    def test_parameters(self):
+        for function, parameters in functions():
+            told = inspect.signature(function).parameters.values()
+            self.assertEqual([parameter.name for parameter in told], parameters, function.__name__)
+            for parameter in told:
+                self.assertIs(parameter.kind, inspect.Parameter.POSITIONAL_OR_KEYWORD)
+                self.assertIs(parameter.default, inspect.Parameter.empty)
+
+    def test_by_position_and_by_name_and_the_same_each_time(self):
+        met = set()
+        for function, parameters, row in calls():
+            told = outcome(function, *row)
+            self.assertEqual(outcome(function, **dict(zip(parameters, row))), told)
+            self.assertEqual(outcome(function, *copy.deepcopy(row)), told)
+            if not (isinstance(told, tuple) and told and inspect.isclass(told[0])):
+                met.add(function)
+        self.assertEqual(met, {function for function, _ in functions()})
+
+    def test_what_is_passed_stays(self):
+        for function, _, row in calls():
+            kept = copy.deepcopy(row)
+            outcome(function, *row)
+            self.assertEqual(row, kept)
+
+    def test_the_package_defines_nothing(self):
+        self.assertEqual([node.__class__ for node in modules()["__init__"].body], [ast.Expr])
+
+    def test_each_module_imports_only_from_those_ahead(self):
+        trees = modules()
+        self.assertEqual(sorted([*ORDER, "__init__"]), sorted(trees))
+        for at, name in enumerate(ORDER):
+            for node in trees[name].body:
+                self.assertNotIsInstance(node, ast.Import)
+                if isinstance(node, ast.ImportFrom):
+                    package, _, module = node.module.partition(".")
+                    self.assertEqual(package, "allboughs")
+                    self.assertIn(module, ORDER[:at], name)
+
+    def test_size(self):
+        for name, tree in modules().items():
+            lines = (FOLDER / f"{name}.py").read_text().split("\n")
+            self.assertLessEqual(len(lines), 400, name)
+            self.assertLessEqual(max(map(len, lines)), 120, name)
+            for node in ast.walk(tree):
+                if isinstance(node, ast.FunctionDef):
+                    self.assertLessEqual(node.end_lineno - node.lineno, 39, node.name)
