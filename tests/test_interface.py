@@ -26,8 +26,26 @@ INTERFACE = {
     },
     "choices": {"is_choices": "thing", "tidied": "choices", "as_machine": "choices"},
     "steps": {"is_ranks": "thing", "is_step": "ranks thing", "traced": "ranks steps"},
+    "histories": {
+        "runners": "ranks", "is_history": "ranks thing", "first": "ranks", "led": "ranks history step",
+        "told": "ranks steps", "judged_round": "ranks ahead again",
+    },
+    "models": {"models": "condition", "written": "lots"},
+    "chosen": {"chosen": "machine"},
+    "formulas": {
+        "is_formula": "thing", "is_long": "thing", "is_sentence": "thing", "free_names": "formula", "size_of": "formula",
+    },
+    "guides": {
+        "guide": "choices wood", "refusal": "choices wood", "is_guide": "choices wood thing",
+        "is_refusal": "choices wood thing",
+    },
+    "hiding": {"hidden": "choices name", "marked": "choices wood name"},
+    "emptying": {"some_wood": "choices", "bar": "choices", "is_bar": "choices thing"},
+    "pruning": {"pruned": "choices"},
+    "shorts": {"is_short": "thing", "meant": "short wood", "hand": "short"},
 }
-ORDER = ["errors", "checks", "words", "woods", "conditions", "ranking", "machines", "building", "choices", "steps"]
+ORDER = """errors checks words woods conditions ranking machines building choices steps histories models chosen shortforms
+formulas regions circles picking guides hiding emptying covering pruning shortmeanings shorts""".split()
 
 WOOD = ("wood", ("x",), ((("x",), 0, 1), ((), 1, 1)))
 MACHINE = ("machine", ("x",), ((1, (("go", 0, 0), ("go", 0, 1))), (2, (("go", 0, 0), ("go", 0, 1)))))
@@ -40,7 +58,7 @@ PASSED = {
     "ahead": ((), (STEP,)), "again": ((STEP,),), "choices": (CHOICES,), "condition": (CONDITION, ("yes",)),
     "formula": (FORMULA,), "history": (HISTORY, ((0,), ())), "lot": (((0, 0),), ()), "lots": ((((0, 0),), ((1, 0),)),),
     "machine": (MACHINE,), "name": ("x",), "one": (WOOD, MACHINE), "other": (WOOD, MACHINE), "place": ((0, 1), ()),
-    "ranks": ((1, 2),), "scope": (("x", "y"),), "short": (("road", "x"),), "state": (1,), "step": (STEP,),
+    "ranks": ((1, 2),), "scope": (("x", "y"),), "short": (("road", "x"), ("same", "x", "x")), "state": (1,), "step": (STEP,),
     "steps": ((STEP, STEP),), "thing": (WOOD, MACHINE, CHOICES, CONDITION, STEP, HISTORY, FORMULA, "x", None),
     "wood": (WOOD, ("wood", (), (((), 0, 0),))),
 }

@@ -1,0 +1,77 @@
+"""Rounds in graphs, and the evenness of the greatest rank in each of them."""
+
+
+class Walk:
+    """A walk through some rows that finds the clumps: from each row of one, each other one can be come to."""
+
+    def __init__(self, rows, goals):
+        """Walk at once; told are the clumps in which there is a round."""
+        self.goals = goals
+        self.inside = {row: True for row in rows}
+        self.met = {}
+        self.lows = {}
+        self.pile = []
+        self.clumps = []
+        for row in rows:
+            if row not in self.met:
+                self.walk_from(row)
+
+    def enter(self, row):
+        """Meet a row."""
+        self.met[row] = len(self.met)
+        self.lows[row] = self.met[row]
+        self.pile.append(row)
+
+    def walk_from(self, start):
+        """Go on as far as one can come from a row, without calls of itself: the road may be long."""
+        self.enter(start)
+        road = [start]
+        turns = [0]
+        while road:
+            row = road[-1]
+            if turns[-1] == len(self.goals[row]):
+                road.pop()
+                turns.pop()
+                self.leave(row)
+                if road:
+                    self.lower(road[-1], self.lows[row])
+                continue
+            goal = self.goals[row][turns[-1]]
+            turns[-1] += 1
+            if goal not in self.inside:
+                continue
+            if goal not in self.met:
+                self.enter(goal)
+                road.append(goal)
+                turns.append(0)
+            else:
+                self.lower(row, self.lows[goal])
+
+    def lower(self, row, low):
+        """From this row one comes to a row that was met so early."""
+        self.lows[row] = min(self.lows[row], low)
+
+    def leave(self, row):
+        """Take the clump of a row from the pile if the row is the first one of it that was met."""
+        if self.lows[row] < self.met[row]:
+            return
+        clump = []
+        while not clump or clump[-1] != row:
+            clump.append(self.pile.pop())
+        for one in clump:
+            self.lows[one] = len(self.goals)
+        if len(clump) > 1 or row in self.goals[row]:
+            self.clumps.append(clump)
+
+
+def has_round(ranks, goals, odd):
+    """Whether there is a round with an odd greatest rank, or, if odd is 0, with an even one."""
+    todo = [list(range(len(ranks)))]
+    while todo:
+        walk = Walk(todo.pop(), goals)
+        for clump in walk.clumps:
+            if max([ranks[row] for row in clump]) % 2 == odd:
+                return True
+            worst = max([ranks[row] for row in clump if ranks[row] % 2 == odd], default=-1)
+            todo.append([row for row in clump if ranks[row] <= worst])
+    return False

@@ -1,0 +1,102 @@
+"""Formulas, long ones with shorts as further atoms, and sentences."""
+
+from allboughs.errors import BadFormula
+from allboughs.shortforms import looks_short
+from allboughs.words import is_name
+
+MOST_NODES = 100
+MOST_FREE = 3
+
+OF_TWO = ("sub", "left", "right")
+JOINTS = ("both", "either")
+BINDERS = ("some", "all")
+
+
+def is_form(part, wide):
+    """Whether it looks like a node of a formula, whatever its parts are; wide ones may be shorts."""
+    if not isinstance(part, tuple) or not part or not isinstance(part[0], str):
+        return False
+    word = part[0]
+    if word in OF_TWO:
+        return len(part) == 3 and is_name(part[1]) and is_name(part[2])
+    if word == "root":
+        return len(part) == 2 and is_name(part[1])
+    if word == "not":
+        return len(part) == 2
+    if word in JOINTS:
+        return len(part) == 3
+    if word in BINDERS:
+        return len(part) == 3 and is_name(part[1])
+    return wide and looks_short(part)
+
+
+def parts_of(formula):
+    """The formulas of which it is made, none for an atom."""
+    if formula[0] in JOINTS:
+        return formula[1:]
+    if formula[0] in BINDERS:
+        return formula[2:]
+    return formula[1:] if formula[0] == "not" else ()
+
+
+def free_in(formula):
+    """The scope of the free names; None if the formula, or one in it, has more than 3 of them."""
+    names = []
+    parts = parts_of(formula)
+    for part in parts:
+        inner = free_in(part)
+        if inner is None:
+            return None
+        names.extend(inner)
+    if not parts:
+        names.extend(formula[1:])
+    if formula[0] in BINDERS:
+        names = [name for name in names if name != formula[1]]
+    scope = tuple(sorted(set(names)))
+    return scope if len(scope) <= MOST_FREE else None
+
+
+def nodes_below(thing, wide):
+    """How many nodes a formula has; None if the value does not look like one, or has too many."""
+    todo = [thing]
+    nodes = 0
+    while todo:
+        part = todo.pop()
+        nodes += 1
+        if nodes > MOST_NODES or not is_form(part, wide):
+            return None
+        todo.extend(parts_of(part))
+    return nodes
+
+
+def is_formula(thing):
+    """Whether a value of any kind is a formula, no long one."""
+    return nodes_below(thing, False) is not None and free_in(thing) is not None
+
+
+def is_long(thing):
+    """Whether a value of any kind is a formula in which shorts may stand as atoms."""
+    return nodes_below(thing, True) is not None and free_in(thing) is not None
+
+
+def check_formula(formula):
+    """Raise BadFormula for what is no formula, not even a long one."""
+    if not is_long(formula):
+        raise BadFormula("not a formula")
+
+
+def is_sentence(thing):
+    """Whether a value of any kind is a formula, perhaps a long one, without free names."""
+    return is_long(thing) and free_in(thing) == ()
+
+
+def free_names(formula):
+    """The scope of the free names of a formula, perhaps a long one."""
+    check_formula(formula)
+    return free_in(formula)
+
+
+def size_of(formula):
+    """The number of nodes of a formula, perhaps a long one."""
+    check_formula(formula)
+    return nodes_below(formula, True)
