@@ -34,7 +34,7 @@ class Walk:
                 turns.pop()
                 self.leave(row)
                 if road:
-                    self.lower(road[-1], self.lows[row])
+                    self.bring_down(road[-1], self.lows[row])
                 continue
             goal = self.goals[row][turns[-1]]
             turns[-1] += 1
@@ -45,9 +45,9 @@ class Walk:
                 road.append(goal)
                 turns.append(0)
             else:
-                self.lower(row, self.lows[goal])
+                self.bring_down(row, self.lows[goal])
 
-    def lower(self, row, low):
+    def bring_down(self, row, low):
         """From this row one comes to a row that was met so early."""
         self.lows[row] = min(self.lows[row], low)
 

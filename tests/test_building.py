@@ -6,7 +6,7 @@ from allboughs.building import contrary, joining, meeting, started, turned, wide
 from allboughs.errors import BadMachine, BadScope, BadState, OtherScope
 from allboughs.machines import is_machine, pressed
 from tests.support import Case, alike, dice, junk_but, machine_keeps, machine_lets, some_machine, some_wood_of
-from tests.test_conditions import chain, spread
+from tests.test_conditions import chain, mirrored, spread
 from tests.test_machines import M, line
 from tests.test_woods import BAD_SCOPES
 
@@ -120,6 +120,7 @@ class MeetingAndJoining(Case):
             self.many(30, function, one_state(chain(29)), one_state(chain(30)))
             self.many(30, function, one_state(chain(30)), one_state(chain(29)))
             self.many(30, function, one_state(chain(30)), ONE)
+            self.many(30, function, one_state(mirrored(chain(30))), ONE)
             plain_one = function(one_state(chain(30)), one_state(YES if function is meeting else NO))
             self.assertTrue(is_machine(plain_one))
 
@@ -134,6 +135,7 @@ class MeetingAndJoining(Case):
         for function in (meeting, joining):
             for thing in junk_but():
                 self.fails(BadMachine, function, thing, None)
+                self.fails(BadMachine, function, thing, ONE)
                 self.fails(BadMachine, function, M, thing)
             self.fails(OtherScope, function, M, ONE)
             self.fails(OtherScope, function, line(400, [0] * 400), M)

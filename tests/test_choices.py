@@ -59,6 +59,7 @@ class IsChoices(Case):
             ("choices", ["x"], ((0, ((), ())),)), ("choices", ("x",), ((0, ((),)),)), ("choice", (), ((0, ((),)),)),
             ("choices", ("b", "a"), ((0, ((),) * 4),)), ("choices", (), ((0, ((),)),), 0), ("choices", ()),
             ("choices", ("a", "b", "c", "d"), ((0, ((),) * 16),)), ("choices", (), ((0,),)), ("choices", (), (None,)),
+            ("choices", (), ((0, ((),), 0),)), ("choices", (), ((0, ((),), ()),)),
         ])
         self.none_of(is_choices, junk_but())
 

@@ -71,10 +71,16 @@ def all_to(*goals):
     return told
 
 
-def fan(conditions):
-    """A machine whose first state sends, on the left, all the others, with these conditions."""
+def five_of(parts):
+    """The condition that one of five parts holds."""
+    return ("either", ("either", ("either", parts[0], parts[1]), parts[2]), ("either", parts[3], parts[4]))
+
+
+def fan(conditions, ends=0):
+    """A machine whose first state sends, on the left, all states with these conditions; ends stand behind them."""
     first_one = all_to(*[(0, at + 1) for at in range(len(conditions))])
-    return ("machine", (), ((0, (first_one,)), *[(0, (condition,)) for condition in conditions]))
+    rows = [(0, (condition,)) for condition in (first_one, *conditions)]
+    return ("machine", (), (*rows, *[(0, (NO,))] * ends))
 
 
 def ladder(top):
@@ -167,6 +173,10 @@ class Limits(Case):
         self.many(2000, chosen, ("machine", (), ((0, (("both", ("go", 0, 1), ("go", 0, 2)),)),
                                                  *[(0, (any_of(0, 15),))] * 2, *[(0, (any_of(0, 9),))] * 12)))
         self.assertTrue(is_choices(chosen(fan([two] * 11 + [NO]))))
+        five = five_of([("go", 0, 8), ("go", 1, 8), ("go", 0, 9), ("go", 1, 9), ("go", 0, 10)])
+        two = ("either", ("go", 0, 8), ("go", 1, 8))
+        self.assertTrue(is_choices(chosen(fan([two] * 4 + [five] * 3, 3))))
+        self.many(2000, chosen, fan([two] * 5 + [five] * 3, 2))
 
     def test_models(self):
         self.many(2000, models, WIDE)
@@ -200,6 +210,9 @@ class Limits(Case):
         machine = ("machine", (), tuple(rows))
         self.assertEqual(chosen_by_the_words(machine), 400)
         self.many(400, chosen, machine)
+        rows[1:3] = [(0, (any_of(0, 20),)), (0, (any_of(400, 20),))]
+        told = chosen(("machine", (), tuple(rows)))
+        self.assertEqual(max(len(pairs) for _, (pairs,) in told[2]), 400)
 
     def test_order_of_too_many(self):
         self.many(24, chosen, line(25, range(25)))

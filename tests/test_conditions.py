@@ -4,7 +4,7 @@ import itertools
 
 from allboughs.conditions import flipped, goes, holds, is_condition, plain
 from allboughs.errors import BadCondition, BadLot
-from tests.support import Case, deep, dice, doubled, held, junk_but, some_condition
+from tests.support import Alike, Case, deep, dice, doubled, held, junk_but, some_condition
 
 A, B, C, D = ("go", 0, 0), ("go", 0, 1), ("go", 1, 0), ("go", 1, 1)
 YES, NO = ("yes",), ("no",)
@@ -17,6 +17,13 @@ def chain(many, leaf=A):
     for _ in range(many - 1):
         told = ("both", leaf, told)
     return told
+
+
+def mirrored(condition):
+    """A condition with its first and second parts exchanged."""
+    if len(condition) == 3 and condition[0] != "go":
+        return (condition[0], mirrored(condition[2]), mirrored(condition[1]))
+    return condition
 
 
 def spread(leaves):
@@ -52,6 +59,8 @@ class IsCondition(Case):
         self.assertFalse(is_condition(chain(31)))
         self.assertFalse(is_condition(("either", A, chain(30))))
         self.assertFalse(is_condition(chain(5000)))
+        self.assertTrue(is_condition(mirrored(chain(30))))
+        self.assertFalse(is_condition(mirrored(chain(31))))
         self.assertFalse(is_condition(doubled("both", A, 25)))
         self.assertTrue(is_condition(doubled("both", A, 9)))
 
@@ -60,7 +69,7 @@ class IsCondition(Case):
             ("go", 2, 0), ("go", True, 0), ("go", 0, False), ("go", 0), ("go", 0, 0, 0), ("go", 0, -1), ("go", 0, 1.0),
             ["go", 0, 0], ("yes", "yes"), ("no", ()), "yes", ("maybe",), ("both", A), ("both", A, B, C), ("both",),
             ("either", A, None), ("either", [A], A), ("both", A, ["yes"]), ("go", (0,), 0), (YES,), ("not", A), (("yes",),),
-            ("YES",), deep(40),
+            ("YES",), deep(40), (Alike(),), (Alike(), 0, 0), (Alike(), A, A), ("go", Alike(), 0), ("both", A, Alike()),
         ))
         self.none_of(is_condition, junk_but(YES))
 

@@ -3,7 +3,7 @@
 from allboughs.errors import BadFormula
 from allboughs.formulas import free_names, is_formula, is_long, is_sentence, size_of
 from allboughs.words import KEPT
-from tests.support import Case, deep, doubled, junk_but
+from tests.support import Alike, Case, deep, doubled, junk_but
 
 F, G = ("sub", "x", "y"), ("root", "z")
 ROAD = ("road", "x")
@@ -43,6 +43,7 @@ class IsFormula(Case):
             ("some", "x"), ("some", F), ("some", "some", F), ("all", ("x",), F), ("all", "x", "y"), ("some", "x", F, F), ["sub", "x", "y"],
             ("not", ["sub", "x", "y"]), ("sub", 0, 1), ("Sub", "x", "y"), (F,), F + F, ("up", "x", "y"), ("not", ("not", None)),
             ("some", None, F), ("some", ["x"], F), ("both", F, [F]), ("root", ("x",)),
+            (Alike(), "x"), (Alike(), "x", "y"), (Alike(), F), (Alike(), F, F), ("root", Alike()), ("not", Alike()),
         )
         self.none_of(is_formula, things)
         self.none_of(is_long, things)

@@ -73,7 +73,7 @@ class IsMachine(Case):
     def test_no_machines(self):
         rows = (
             (0, ()), (0, (YES, YES)), (0, [YES]), (0, YES), (0, (("go", 0, 1),)), (0, (("go", 2, 0),)), (0,), (YES,),
-            (0, (YES,), 0), [0, (YES,)], None, (0, (("both", YES),)), (0, (None,)), (0, (("either", YES, ("go", 0, 1)),)),
+            (0, (YES,), 0), (0, (YES,), ()), [0, (YES,)], None, (0, (("both", YES),)), (0, (None,)), (0, (("either", YES, ("go", 0, 1)),)),
         )
         self.none_of(is_machine, [("machine", (), (row,)) for row in rows])
         self.none_of(is_machine, [

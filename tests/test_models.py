@@ -130,6 +130,8 @@ class Written(Case):
         others = tuple(sorted([*pairs[:399], ((1, 20), (1, 21)), ((1, 22), (1, 23))]))
         self.assertEqual(len(others), 401)
         self.many(1600, written, others)
+        longer = tuple(sorted([*pairs[:399], ((1, 20), (1, 21), (1, 22))]))
+        self.many(1600, written, longer)
         alone = tuple((go_pair,) for go_pair in sorted((at // 400, at % 400) for at in range(800)))
         self.assertTrue(is_condition(written(alone)))
         self.assertTrue(is_condition(written((tuple(pair for (pair,) in alone),))))

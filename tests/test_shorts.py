@@ -3,7 +3,7 @@
 from allboughs.errors import BadShort, BadWood, NoName
 from allboughs.machines import is_machine
 from allboughs.shorts import hand, is_short, meant
-from tests.support import Case, dice, junk_but, letters_to, machine_lets, some_wood_of
+from tests.support import Alike, Case, dice, junk_but, letters_to, machine_lets, some_wood_of
 from tests.test_formulas import ONES, TWOS
 
 X = ("x",)
@@ -81,6 +81,7 @@ class IsShort(Case):
             self.assertTrue(is_short((word, "abcdefgh", "a")))
             self.none_of(is_short, ((word, "x"), (word, "x", "y", "z"), (word, "x", "same"), (word, "", "y"), [word, "x", "y"]))
         self.none_of(is_short, (("sub", "x", "y"), ("root", "x"), ("not", ("bare", "x")), ("Bare", "x"), "bare", (("bare",), "x")))
+        self.none_of(is_short, ((Alike(), "x"), (Alike(), "x", "y"), ("bare", Alike()), Alike()))
         self.none_of(is_short, junk_but())
 
 

@@ -2,7 +2,7 @@
 
 from allboughs.errors import BadPlace, BadScope, BadWood, OtherScope
 from allboughs.woods import is_tie, is_wood, least, letters, node_at, parting, tie, within
-from tests.support import JUNK, Case, alike, bits, dice, junk_but, letters_to, some_wood_of
+from tests.support import JUNK, Alike, Case, alike, bits, dice, junk_but, letters_to, some_wood_of
 
 X = ("x",)
 ROAD = ("wood", X, ((X, 0, 1), ((), 1, 1)))
@@ -51,10 +51,11 @@ class IsWood(Case):
         nodes = (
             ((), 0), ((), 0, 0, 0), ((), 0, 1), ((), -1, 0), ((), True, 0), ((), 0, False), ((), 0, 0.0), [(), 0, 0],
             ([], 0, 0), (["x"], 0, 0), (("y",), 0, 0), (("x", "x"), 0, 0), ("x", 0, 0), (("x", "y"), 0, 0), (None, 0, 0),
-            ((), "0", 0), ((), None, 0), (), None, ((), (), ()),
+            ((), "0", 0), ((), None, 0), (), None, ((), (), ()), ((Alike(),), 0, 0), (Alike(), 0, 0), ((), Alike(), 0),
         )
         self.none_of(is_wood, [("wood", X, (node,)) for node in nodes])
         self.none_of(is_wood, [("wood", ("x", "y"), ((("y", "x"), 0, 0),)), ("woods", (), (((), 0, 0),))])
+        self.none_of(is_wood, [(Alike(), (), (((), 0, 0),)), ("wood", Alike(), (((), 0, 0),)), ("wood", (), Alike())])
         self.none_of(is_wood, [["wood", (), (((), 0, 0),)], ("wood", (), [((), 0, 0)]), ("wood", (), (((), 0, 0),), 1)])
 
     def test_any_value(self):
@@ -152,6 +153,7 @@ class Ties(Case):
         for function, more in ((tie, ()), (parting, ()), (is_tie, (None,))):
             for thing in JUNK:
                 self.fails(BadWood, function, thing, None, *more)
+                self.fails(BadWood, function, thing, BARE, *more)
                 self.fails(BadWood, function, BARE, thing, *more)
             self.fails(OtherScope, function, BARE, ROAD, *more)
             self.fails(OtherScope, function, ROAD, ("wood", ("y",), (((), 0, 0),)), *more)
