@@ -64,14 +64,39 @@ class Walk:
             self.clumps.append(clump)
 
 
-def has_round(ranks, goals, odd):
-    """Whether there is a round with an odd greatest rank, or, if odd is 0, with an even one."""
+def way_back(start, clump, goals):
+    """The rows, from start on, of a shortest round through start within its clump."""
+    inside = {row: True for row in clump}
+    origins = {}
+    order = [start]
+    at = 0
+    while start not in origins:
+        row = order[at]
+        at += 1
+        for goal in goals[row]:
+            if goal in inside and goal not in origins:
+                origins[goal] = row
+                order.append(goal)
+    found = [origins[start]]
+    while found[-1] != start:
+        found.append(origins[found[-1]])
+    return found[::-1]
+
+
+def found_round(ranks, goals, odd):
+    """A round of unlike rows with an odd greatest rank, or, if odd is 0, with an even one; None if there is none."""
     todo = [list(range(len(ranks)))]
     while todo:
         walk = Walk(todo.pop(), goals)
         for clump in walk.clumps:
-            if max([ranks[row] for row in clump]) % 2 == odd:
-                return True
+            top = max([ranks[row] for row in clump])
+            if top % 2 == odd:
+                return way_back([row for row in clump if ranks[row] == top][0], clump, goals)
             worst = max([ranks[row] for row in clump if ranks[row] % 2 == odd], default=-1)
             todo.append([row for row in clump if ranks[row] <= worst])
-    return False
+    return None
+
+
+def has_round(ranks, goals, odd):
+    """Whether there is a round with an odd greatest rank, or, if odd is 0, with an even one."""
+    return found_round(ranks, goals, odd) is not None

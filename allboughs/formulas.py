@@ -85,6 +85,12 @@ def check_formula(formula):
         raise BadFormula("not a formula")
 
 
+def check_no_long(formula):
+    """Raise BadFormula for what is no formula, or a long one."""
+    if not is_formula(formula):
+        raise BadFormula("not a formula without shorts")
+
+
 def is_sentence(thing):
     """Whether a value of any kind is a formula, perhaps a long one, without free names."""
     return is_long(thing) and free_in(thing) == ()

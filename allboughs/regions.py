@@ -4,24 +4,22 @@ A row is of a side, has a rank, and leads to at least one row. Who owns the row 
 that comes again and again tells who wins. Both sides win by fixed picks.
 """
 
+from allboughs.circles import Walk
 
-def levels_of(ranks):
-    """The ranks made small: neighbours of one evenness become one."""
-    levels = {}
-    level = 0
-    for rank in sorted(set(ranks)):
-        level += (level + rank) % 2
-        levels[rank] = level
-    return [levels[rank] for rank in ranks]
+SETTLED = -1
 
 
 class Arena:
-    """A game, and what is known of it: for each row who wins from there, and a pick for rows of who wins."""
+    """A game, and what is known of it: for each row who wins from there, and a pick for rows of who wins.
+
+    While it is settled each row has a depth: the rows of one depth are a game of their own, and the rows of greater
+    depths are looked at within it.
+    """
 
     def __init__(self, sides, ranks, goals):
         """Settle the game at once."""
         self.sides = sides
-        self.levels = levels_of(ranks)
+        self.ranks = ranks
         self.goals = goals
         self.sources = [[] for _ in goals]
         for row, leads in enumerate(goals):
@@ -45,7 +43,7 @@ class Arena:
             aim = drawn[at]
             at += 1
             for row in self.sources[aim]:
-                if row in met or self.depths[row] != depth:
+                if self.depths[row] != depth or row in met:
                     continue
                 if self.sides[row] == side:
                     self.picks[row] = aim
@@ -66,31 +64,52 @@ class Arena:
     def settle(self, rows, depth):
         """Find out who wins the game of these rows alone, all of which have this depth and lead to each other.
 
-        The calls of itself are no more than there are levels, one within the other.
+        The calls of itself are no more than there are ranks, one within the other.
         """
-        while rows:
-            top = max([self.levels[row] for row in rows])
-            side = top % 2
-            heads = [row for row in rows if self.levels[row] == top]
-            drawn = self.drawn_in(side, heads, depth)
-            taken = {row: True for row in drawn}
-            rest = [row for row in rows if row not in taken]
-            self.sink(rest, depth + 1)
-            self.settle(rest, depth + 1)
-            self.sink(rest, depth)
-            lost = [row for row in rest if self.winners[row] != side]
-            if not lost:
-                self.give(drawn, heads, side, depth)
-                return
-            away = self.drawn_in(1 - side, lost, depth)
-            for row in away:
-                self.winners[row] = 1 - side
-                self.depths[row] = -1
-            rows = [row for row in rows if self.depths[row] == depth]
+        for clump in Walk(rows, self.goals).clumps:
+            part = [row for row in clump if self.depths[row] == depth]
+            rest = part
+            while rest:
+                self.sink(rest, depth + 1)
+                heads, side = self.heads_of(rest)
+                drawn = self.drawn_in(side, heads, depth + 1)
+                taken = {row: True for row in drawn}
+                inner = [row for row in rest if row not in taken]
+                self.sink(inner, depth + 2)
+                self.settle(inner, depth + 2)
+                self.sink(inner, depth + 1)
+                lost = [row for row in inner if self.winners[row] != side]
+                away = self.drawn_in(1 - side, lost, depth + 1)
+                self.take(away, 1 - side, depth)
+                rest = [row for row in rest if self.depths[row] != depth]
+                if len(away) == len(lost):
+                    self.give(drawn, heads, side, depth + 1)
+                    rest = []
+            self.close(part, depth)
+
+    def close(self, part, depth):
+        """Settle what can be drawn to rows of a part, all of which are won by now, and the part itself."""
+        self.sink(part, depth)
+        for side in (0, 1):
+            won = [row for row in part if self.winners[row] == side]
+            self.take(self.drawn_in(side, won, depth), side, SETTLED)
+
+    def heads_of(self, rows):
+        """The rows with ranks above all those of the other kind, and the side that likes them."""
+        ranks = [self.ranks[row] for row in rows]
+        side = max(ranks) % 2
+        worst = max([rank for rank in ranks if rank % 2 != side], default=-1)
+        return [row for row in rows if self.ranks[row] > worst], side
 
     def sink(self, rows, depth):
         """Tell of all these rows that they have this depth now."""
         for row in rows:
+            self.depths[row] = depth
+
+    def take(self, rows, side, depth):
+        """Tell of all these rows that this side wins from them, and that they have this depth now."""
+        for row in rows:
+            self.winners[row] = side
             self.depths[row] = depth
 
     def give(self, drawn, heads, side, depth):

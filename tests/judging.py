@@ -76,4 +76,8 @@ def wrong_parts(thing):
         for at, part in enumerate(thing):
             told.extend((*thing[:at], wrong, *thing[at + 1:]) for wrong in wrong_parts(part))
         return told
+    if isinstance(thing, str):
+        return [thing + "s", thing.upper(), thing.encode(), None, 0, (thing,), ""]
+    if thing is None:
+        return [0, False, (), "None", (None,)]
     return [bool(thing), float(thing), -1, 401, None, str(thing), (thing,)]

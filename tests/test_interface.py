@@ -43,9 +43,31 @@ INTERFACE = {
     "emptying": {"some_wood": "choices", "bar": "choices", "is_bar": "choices thing"},
     "pruning": {"pruned": "choices"},
     "shorts": {"is_short": "thing", "meant": "short wood", "hand": "short"},
+    "compiling": {"machine_of": "formula", "choices_of": "formula"},
+    "grafting": {
+        "without": "wood names", "bare": "wood names", "joined": "one other", "grafted": "wood place other",
+        "exchanged": "wood",
+    },
+    "games": {
+        "is_game": "thing", "swapped": "game", "is_plan": "game thing", "plans": "game", "winner": "game row",
+        "flaw": "game sketch",
+    },
+    "playing": {
+        "standings": "machine wood", "game_of": "machine wood", "verdict": "machine wood", "is_verdict": "machine wood thing",
+        "lets_by": "machine wood", "won": "machine wood",
+    },
+    "deciding": {
+        "means": "formula wood", "shown": "formula wood", "truth": "sentence", "follows": "one other", "parted": "one other",
+        "machines_parted": "one other",
+    },
+    "fillings": {"fillings": "formula wood"},
+    "texts": {"text_of": "formula", "formula_of": "text"},
 }
+# The classes of the interface, each with its methods.
+CLASSES = {"desk": {"Desk": {"say": "row", "kept": ""}}}
 ORDER = """errors checks words woods conditions ranking machines building choices steps histories models chosen shortforms
-formulas regions circles picking guides hiding emptying covering pruning shortmeanings shorts""".split()
+formulas circles regions picking guides hiding emptying covering pruning shortmeanings shorts compiling grafting games
+playing deciding markings fillings texts woodrows desk""".split()
 
 WOOD = ("wood", ("x",), ((("x",), 0, 1), ((), 1, 1)))
 MACHINE = ("machine", ("x",), ((1, (("go", 0, 0), ("go", 0, 1))), (2, (("go", 0, 0), ("go", 0, 1)))))
@@ -54,13 +76,18 @@ CONDITION = ("both", ("go", 0, 0), ("either", ("go", 1, 1), ("yes",)))
 STEP = ((0, 0), (0, 1), (1, 1))
 HISTORY = ((0, 1), ((None, ((0, 1),)),))
 FORMULA = ("some", "x", ("both", ("sub", "x", "y"), ("root", "x")))
+SENTENCE = ("some", "x", ("root", "x"))
+GAME = ("game", ((0, 1, (0, 1)), (1, 2, (0, 2)), (0, 3, (1,))))
+PLAN = ("plan", 1, ((0, None), (1, 2), (2, None)))
+WIDE = ("wood", ("y", "z"), ((("y",), 1, 0), (("z",), 1, 1)))
 PASSED = {
     "ahead": ((), (STEP,)), "again": ((STEP,),), "choices": (CHOICES,), "condition": (CONDITION, ("yes",)),
-    "formula": (FORMULA,), "history": (HISTORY, ((0,), ())), "lot": (((0, 0),), ()), "lots": ((((0, 0),), ((1, 0),)),),
-    "machine": (MACHINE,), "name": ("x",), "one": (WOOD, MACHINE), "other": (WOOD, MACHINE), "place": ((0, 1), ()),
-    "ranks": ((1, 2),), "scope": (("x", "y"),), "short": (("road", "x"), ("same", "x", "x")), "state": (1,), "step": (STEP,),
-    "steps": ((STEP, STEP),), "thing": (WOOD, MACHINE, CHOICES, CONDITION, STEP, HISTORY, FORMULA, "x", None),
-    "wood": (WOOD, ("wood", (), (((), 0, 0),))),
+    "formula": (FORMULA,), "game": (GAME,), "history": (HISTORY, ((0,), ())), "lot": (((0, 0),), ()), "lots": ((((0, 0),), ((1, 0),)),),
+    "machine": (MACHINE,), "name": ("x",), "names": (("x",), ("a", "y")), "one": (WOOD, WIDE, MACHINE, FORMULA),
+    "other": (WOOD, WIDE, MACHINE, SENTENCE), "place": ((0, 1), ()), "ranks": ((1, 2),), "row": (1,), "scope": (("x", "y"),),
+    "sentence": (SENTENCE,), "short": (("road", "x"), ("same", "x", "x")), "sketch": (PLAN, ("plan", 0, ((0, 0),))), "state": (1,), "step": (STEP,),
+    "steps": ((STEP, STEP),), "text": ("sub(x,y)", "sub(x"), "thing": (WOOD, MACHINE, CHOICES, CONDITION, STEP, HISTORY, FORMULA, "x", None),
+    "wood": (WOOD, WIDE, ("wood", (), (((), 0, 0),))),
 }
 
 
@@ -107,6 +134,17 @@ class Interface(unittest.TestCase):
             for parameter in told:
                 self.assertIs(parameter.kind, inspect.Parameter.POSITIONAL_OR_KEYWORD)
                 self.assertIs(parameter.default, inspect.Parameter.empty)
+
+    def test_classes_and_their_methods_stand_in_their_files(self):
+        for module, classes in CLASSES.items():
+            bodies = {node.name: node.body for node in modules()[module].body if isinstance(node, ast.ClassDef)}
+            for name, methods in classes.items():
+                self.assertLessEqual(set(methods), {node.name for node in bodies[name] if isinstance(node, ast.FunctionDef)})
+                of_its_own = getattr(importlib.import_module(f"allboughs.{module}"), name)
+                self.assertEqual(list(inspect.signature(of_its_own).parameters), [])
+                for method, parameters in methods.items():
+                    told = list(inspect.signature(vars(of_its_own)[method]).parameters)
+                    self.assertEqual(told, ["self", *parameters.split()])
 
     def test_by_position_and_by_name_and_the_same_each_time(self):
         met = set()
