@@ -62,12 +62,27 @@ INTERFACE = {
     },
     "fillings": {"fillings": "formula wood"},
     "texts": {"text_of": "formula", "formula_of": "text"},
+    "drawing": {"drawn": "game side aims"},
+    "tables": {
+        "is_table": "thing", "table": "ranks steps", "ranks_told": "table letters", "part": "one other",
+        "is_part": "one other thing", "merged": "table",
+    },
+    "easing": {"is_chain": "table thing", "chain": "table", "eased": "table"},
+    "fewest": {"fewest": "game row"},
+    "naming": {"renamed": "formula pairs", "is_twin": "one other", "plainly_named": "formula", "mirrored": "formula"},
+    "forms": {
+        "pushed": "formula", "blocks": "formula", "front": "formula", "inward": "formula", "relative": "formula name",
+    },
+    "inclusion": {"met": "one other", "outside": "choices", "inside": "one other"},
+    "laying": {"is_laid": "machine wood thing", "laid": "machine wood plan"},
+    "leastwoods": {"woods_of": "scope many", "least_parting": "one other most"},
 }
 # The classes of the interface, each with its methods.
 CLASSES = {"desk": {"Desk": {"say": "row", "kept": ""}}}
 ORDER = """errors checks words woods conditions ranking machines building choices steps histories models chosen shortforms
 formulas circles regions picking guides hiding emptying covering pruning shortmeanings shorts compiling grafting games
-playing deciding markings fillings texts woodrows desk""".split()
+playing deciding markings fillings texts woodrows desk drawing tableparts tables easing fewest naming forms inclusion
+laying leastwoods""".split()
 
 WOOD = ("wood", ("x",), ((("x",), 0, 1), ((), 1, 1)))
 MACHINE = ("machine", ("x",), ((1, (("go", 0, 0), ("go", 0, 1))), (2, (("go", 0, 0), ("go", 0, 1)))))
@@ -80,14 +95,20 @@ SENTENCE = ("some", "x", ("root", "x"))
 GAME = ("game", ((0, 1, (0, 1)), (1, 2, (0, 2)), (0, 3, (1,))))
 PLAN = ("plan", 1, ((0, None), (1, 2), (2, None)))
 WIDE = ("wood", ("y", "z"), ((("y",), 1, 0), (("z",), 1, 1)))
+TABLE = ("table", (((1, 0), (0, 3)), ((0, 2), (1, 1))))
+TURNS = ("wood", ("x",), ((("x",), 1, 0), ((), 0, 0)))
 PASSED = {
-    "ahead": ((), (STEP,)), "again": ((STEP,),), "choices": (CHOICES,), "condition": (CONDITION, ("yes",)),
-    "formula": (FORMULA,), "game": (GAME,), "history": (HISTORY, ((0,), ())), "lot": (((0, 0),), ()), "lots": ((((0, 0),), ((1, 0),)),),
-    "machine": (MACHINE,), "name": ("x",), "names": (("x",), ("a", "y")), "one": (WOOD, WIDE, MACHINE, FORMULA),
-    "other": (WOOD, WIDE, MACHINE, SENTENCE), "place": ((0, 1), ()), "ranks": ((1, 2),), "row": (1,), "scope": (("x", "y"),),
-    "sentence": (SENTENCE,), "short": (("road", "x"), ("same", "x", "x")), "sketch": (PLAN, ("plan", 0, ((0, 0),))), "state": (1,), "step": (STEP,),
-    "steps": ((STEP, STEP),), "text": ("sub(x,y)", "sub(x"), "thing": (WOOD, MACHINE, CHOICES, CONDITION, STEP, HISTORY, FORMULA, "x", None),
-    "wood": (WOOD, WIDE, ("wood", (), (((), 0, 0),))),
+    "ahead": ((), (STEP,)), "aims": ((), (2,)), "again": ((STEP,),), "choices": (CHOICES,),
+    "condition": (CONDITION, ("yes",)), "formula": (FORMULA,), "game": (GAME,), "history": (HISTORY, ((0,), ())),
+    "letters": ((0, 1, 1),), "lot": (((0, 0),), ()), "lots": ((((0, 0),), ((1, 0),)),), "machine": (MACHINE,), "many": (2,),
+    "most": (2,), "name": ("x", "y"), "names": (("x",), ("a", "y")),
+    "one": (WOOD, WIDE, MACHINE, FORMULA, TABLE, CHOICES), "other": (WOOD, WIDE, MACHINE, SENTENCE, TABLE, CHOICES),
+    "pairs": ((("y", "z"),), (("a", "b"),)), "place": ((0, 1), ()), "plan": (("plan", 0, ((0, 1), (1, 0))), PLAN),
+    "ranks": ((1, 2),), "row": (1,), "scope": (("x", "y"),), "sentence": (SENTENCE,), "short": (("road", "x"), ("same", "x", "x")),
+    "side": (0, 1), "sketch": (PLAN, ("plan", 0, ((0, 0),))), "state": (1,), "step": (STEP,), "steps": ((STEP, STEP),),
+    "table": (TABLE,), "text": ("sub(x,y)", "sub(x"),
+    "thing": (WOOD, MACHINE, CHOICES, CONDITION, STEP, HISTORY, FORMULA, "x", None),
+    "wood": (WOOD, WIDE, TURNS, ("wood", (), (((), 0, 0),))),
 }
 
 

@@ -1,0 +1,33 @@
+"""Choices of what both let by, of what is not let by, and whether one lets by nothing that the other one does not."""
+
+from allboughs.building import contrary, meeting
+from allboughs.choices import as_machine, check_choices
+from allboughs.chosen import chosen
+from allboughs.emptying import some_wood
+from allboughs.errors import OtherScope
+
+
+def check_both(one, other):
+    """Raise the errors of functions of two choices of one scope."""
+    check_choices(one)
+    check_choices(other)
+    if one[1] != other[1]:
+        raise OtherScope("choices of unlike scopes")
+
+
+def met(one, other):
+    """The choices that let by just the woods that both let by."""
+    check_both(one, other)
+    return chosen(meeting(as_machine(one), as_machine(other)))
+
+
+def outside(choices):
+    """The choices that let by just the woods that these do not let by."""
+    check_choices(choices)
+    return chosen(contrary(as_machine(choices)))
+
+
+def inside(one, other):
+    """None if the other one lets by each wood that the one lets by, otherwise a wood that the one alone lets by."""
+    check_both(one, other)
+    return some_wood(chosen(meeting(as_machine(one), contrary(as_machine(other)))))
