@@ -123,6 +123,38 @@ class Fillings:
             end = move[1 + way]
         return self.laid_on(steps, self.trees.number(self.trees.sign(self.loose[end])))
 
+    def instead(self, at, step, number):
+        """The numbers of trees that begin with moves from a standing which lead to where the step does.
+
+        The tree with this number stands there.
+        """
+        move, way = step
+        found = []
+        for letter, left, right in self.moves[at]:
+            goal, aside = (right, left) if way else (left, right)
+            if goal == move[1 + way]:
+                asides = [self.trees.roots[aside]]
+                if aside in self.several:
+                    asides.append(self.another(aside))
+                for tree in asides:
+                    found.append(self.trees.number((letter, tree, number) if way else (letter, number, tree)))
+        return found
+
+    def beside(self, at, trunk, crown):
+        """The number of a tree that goes as the trunk does back to the crown, but is unlike it as early as can be.
+
+        The trunk is laid on the crown, which is itself again so. None if there is no such tree.
+        """
+        for many, step in enumerate(trunk):
+            here = self.laid_on(trunk[many:], crown)
+            others = self.instead(at, step, self.laid_on(trunk[many + 1:], crown))
+            for other in others:
+                if other != here:
+                    return self.laid_on(trunk[:many], other)
+            move, way = step
+            at = move[1 + way]
+        return None
+
     def endless(self, at):
         """The nodes of a filling with a trunk from this standing back to it, and the places of both its ends."""
         everywhere = {goal: True for goal in range(len(self.moves))}
@@ -130,9 +162,12 @@ class Fillings:
         road = self.steps_to(0, {at: True}, everywhere) if at else []
         # Just one tree is itself again below the trunk, and this one would never come to an end of the trunk.
         crown = self.trees.roots[at]
-        if self.laid_on(trunk, crown) == crown:
-            crown = self.another(at)
-        rows = self.trees.least_rows(self.laid_on(road + trunk, crown))
+        tree = self.laid_on(trunk, crown)
+        if tree == crown:
+            tree = self.beside(at, trunk, crown)
+        if tree is None:
+            tree = self.laid_on(trunk, self.another(at))
+        rows = self.trees.least_rows(self.laid_on(road, tree))
         high = tuple([way for _, way in road])
         return rows, high, high + tuple([way for _, way in trunk])
 

@@ -145,6 +145,18 @@ class Built(Case):
         self.assertEqual(choices_of(("both", f, g)), pruned(chosen(machine_of(("both", f, g)))))
         self.assertEqual(choices_of(("not", ("not", f))), choices_of(f))
 
+    def test_choices_of_not_all_and_not_not(self):
+        """They are those of what begins with some, not made from the machine, which would tell others."""
+        for g in (
+            ("both", ("not", ("both", ("right", "x", "x"), ("left", "y", "x"))), ("right", "x", "y")), ("either", ("root", "y"), ("sub", "x", "y")),
+        ):
+            some = ("some", "x", ("not", g))
+            told = choices_of(some)
+            self.assertNotEqual(told, pruned(chosen(machine_of(some))))
+            for formula in (("not", ("all", "x", g)), ("not", ("not", some)), ("some", "z", some), ("not", ("not", ("not", ("all", "x", g))))):
+                self.assertEqual(choices_of(formula), told)
+                self.assertEqual(machine_of(formula), as_machine(told))
+
     def test_shorts_within(self):
         chance = dice(242)
         for _ in range(60):

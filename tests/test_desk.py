@@ -107,6 +107,17 @@ class ByHand(Case):
         self.assertEqual(desk.say("wood w a,b,c a,c:1:0 -:0:0"), "kept")
         self.assertEqual(desk.kept()[1]["w"], ("wood", ("a", "b", "c"), ((("a", "c"), 1, 0), ((), 0, 0))))
 
+    def test_numbers_with_more_figures(self):
+        row = "wood w x " + " ".join([f"{'x' if at == 399 else '-'}:{(at + 1) % 400}:{399 - at}" for at in range(400)])
+        desk = self.said((row, "kept"), ("told w", row))
+        self.assertEqual(desk.kept()[1]["w"][2][109], ((), 110, 290))
+        self.assertEqual(desk.kept()[1]["w"][2][398:], (((), 399, 1), (("x",), 0, 0)))
+        last = " ".join(["-:0:0"] * 119)
+        for word, answer in (("-:119:10", "kept"), ("-:9:99", "kept"), ("-:120:0", "what"), ("-:1a:0", "what"), ("-:1/:0", "what"),
+                             ("-:1::0", "what"), ("-:019:0", "what"), ("-:0:00", "what"), ("-:1000:0", "what"), ("-: 1:0", "what")):
+            self.assertEqual(desk.say(f"wood v - {word} {last}"), answer, word)
+        self.assertEqual(desk.kept()[1]["v"][2][0], ((), 9, 99))
+
     def test_wrong_and_wide(self):
         desk = self.said(
             ("let f sup(x,y)", "wrong 2"), ("let f root(x)y", "wrong 7"), ("let f -", "wrong 0"), ("let f root(\tx)", "wrong 5"),

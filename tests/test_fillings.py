@@ -145,6 +145,15 @@ class ByHand(Judged):
         self.assertEqual((word, (len(low) - len(high)) % 195), ("endless", 0))
         self.assertTrue(true_on(PART, filled))
         self.assertTrue(alike(left_over(filled, Y), ring))
+        # On so long a round there is room for a tree that turns aside, and is itself again ahead of the round's end.
+        ring = ("wood", Y, (*((Y if at == 2 else (), (at + 1) % 390, 390) for at in range(390)), ((), 390, 390)))
+        word, filled, high, low = fillings(F, ring)
+        first = grafted(filled, high, within(filled, low))
+        self.assertEqual((word, low[:len(high)], len(low) - len(high)), ("endless", high, 390))
+        for thing in (filled, first):
+            self.assertTrue(true_on(PART, thing))
+            self.assertTrue(alike(left_over(thing, Y), ring))
+        self.assertFalse(alike(filled, first))
         # Behind a long road the root of what is endless: the road is not the trunk.
         far = ("wood", Y, (*road(150)[2][:149], (Y, 149, 149)))
         self.held(F, far, fillings(F, far), true_on, 3)

@@ -276,7 +276,26 @@ class Inward(Case):
         self.assertEqual(size_of(inward(("all", "z", boths(49, leaf)))), 97)
 
 
+def relative_by_the_words(formula, name):
+    """What [86] says of relative, but for its errors."""
+    word = formula[0]
+    if word == "some":
+        return ("some", formula[1], ("both", ("sub", formula[1], name), relative_by_the_words(formula[2], name)))
+    if word == "all":
+        return ("all", formula[1], ("either", ("not", ("sub", formula[1], name)), relative_by_the_words(formula[2], name)))
+    return tuple(relative_by_the_words(part, name) if isinstance(part, tuple) else part for part in formula)
+
+
 class Relative(Case):
+    def test_by_the_words(self):
+        met = 0
+        for formula, chance in formulas_by_chance(359, 300, 9, ("x", "y", "z")):
+            due = relative_by_the_words(formula, "a")
+            if is_formula(due):
+                met += 1
+                self.assertEqual(relative(formula, "a"), due)
+        self.assertGreater(met, 100)
+
     def test_by_hand(self):
         self.assertEqual(relative(formula=("some", "a", ("root", "a")), name="x"), ("some", "a", ("both", ("sub", "a", "x"), ("root", "a"))))
         self.assertEqual(relative(("all", "a", ("not", ("root", "a"))), "x"), (

@@ -101,8 +101,12 @@ class IsPlan(Case):
             ("plan", 0, ((0, 1), (1, None), (2, 1))), ("plan", 1, ([0, None], (1, 2), (2, None))), ["plan", 1, ()], ("Plan", 0, ()),
             ("plan", 1, ((0, None), (1, Alike()), (2, None))), ("plan", 1, ((0, None), (1, True), (2, None))),
             ("plan", 1, ((0, None), (1, 2.0), (2, None))), ("plan", 1, ((0, 0, None),)), ("plan", 0, (), 0), ("plan", 1, (0,)),
+            ("plan", 1, ((0,),)), ("plan", 1, ((0,), (1, 2), (2, None))), ("plan", 1, ((),)),
         ):
             self.assertIs(is_plan(G, wrong), False, wrong)
+        pair = ("game", ((0, 0, (1,)), (0, 0, (1,))))
+        self.assertIs(is_plan(pair, ("plan", 0, ((0, 1), (1, 1)))), True)
+        self.assertIs(is_plan(pair, ("plan", 0, ((0, True), (1, 1)))), False)
         self.none_of(lambda thing: is_plan(G, thing), junk_but())
 
     def test_wrong_parts(self):

@@ -67,7 +67,7 @@ class IsTable(Case):
         self.none_of(is_table, [thing for thing in wrong if ", 401)" not in repr(thing)])
         self.none_of(is_table, (
             ("table", ()), ("table", ((),)), ("table", (((0, 0),), ((0, 0), (0, 0)))), ("table", (((0, 0),), ())), ("table", (((1, 0),),)),
-            ("Table", (((0, 0),),)), ("table", (((0, 0, 0),),)), ("table", [((0, 0),)]), ("table", (((0, 1201),),)), ("table", (((0, -1),),)),
+            ("Table", (((0, 0),),)), ("table", (((0, 0, 0),),)), ("table", (((0,),),)), ("table", (((),),)), ("table", [((0, 0),)]), ("table", (((0, 1201),),)), ("table", (((0, -1),),)),
             ("table", (((Alike(), 0),),)), ("table", (((0, Alike()),),)), ("table", (Alike(),)), ("table", (((-1, 0),),)), ("table", (0,)),
         ))
 
@@ -183,6 +183,26 @@ class Part(Case):
                 self.assertIs(is_part(one, other, pair), True)
         self.assertGreater(min(seen), 60)
 
+    def test_long_rows_of_letters(self):
+        """Just one row of letters leads to a round, and just one row of letters goes through that to what is odd."""
+        ahead, again = (0, 1, 1, 0, 2, 0, 1), (2, 1, 1, 0, 1)
+        many = len(ahead) + len(again)
+        rows = []
+        for at, letter in enumerate(ahead + again):
+            onward = at + 1 if at + 1 < many else len(ahead)
+            rows.append(tuple((onward, 3 if onward == len(ahead) + 2 else 2) if other == letter else (many, 0) for other in range(3)))
+        one = ("table", (*rows, ((many, 0),) * 3))
+        for top, fine in ((0, True), (1, False), (6, True)):
+            other = ("table", (((0, top),) * 3,))
+            if fine:
+                for pair, both in ((part(one, other), (one, other)), (part(other, one), (other, one))):
+                    self.assertIs(is_part(*both, pair), True)
+                    self.assertTrue(unlike(*both, *pair))
+                    self.assertEqual((pair[0] + pair[1])[:len(ahead)], ahead)
+                    self.assertEqual(len(pair[1]) - len(pair[1]) // len(again) * len(again), 0)
+            self.assertIs(is_part(one, other, (ahead, again)), fine)
+            self.assertIs(is_part(one, other, (ahead, again[:-1])), not fine)
+
     def test_is_part_by_the_words(self):
         chance = dice(312)
         seen = [0, 0]
@@ -206,6 +226,7 @@ class Part(Case):
         for function in (part, lambda one, other: is_part(one, other, None)):
             for thing in junk_but():
                 self.fails(BadTable, function, thing, None)
+                self.fails(BadTable, function, thing, T)
                 self.fails(BadTable, function, T, thing)
             self.fails(OtherLetters, function, T, wide)
         other = ("table", (((0, 0), (0, 1)),))

@@ -80,6 +80,14 @@ class Texts(Case):
         self.bad("sub(x,root)", 10)
         self.bad("sup(x,y)", 2)
 
+    def test_all_letters_in_names(self):
+        for letter in LETTERS:
+            self.assertEqual(formula_of(f"sub({letter},{letter}y{letter})"), ("sub", letter, f"{letter}y{letter}"))
+            self.bad(f"sub({letter.upper()},x)", 4)
+        for sign in "`{@[019_":
+            self.bad(f"sub({sign},x)", 4)
+            self.bad(f"sub(x{sign},x)", 5)
+
     def test_where_reading_stops(self):
         for text, at in (
             ("", 0), (" sub(x,y)", 0), ("sub (x,y)", 3), ("sub( x,y)", 4), ("sub(x ,y)", 5), ("sub(x, y)", 6), ("sub(x,y )", 7), ("sub(x,y) ", 8),
