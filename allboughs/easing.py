@@ -18,16 +18,16 @@ class Clumps:
         self.held = []
         self.tops = []
         self.inner = []
-        self.outermost = self.find(met_rows(rows), max([rank for row in rows for _, rank in row]))
+        self.outermost = self.add_clumps(met_rows(rows), max([rank for row in rows for _, rank in row]))
         while len(self.inner) < len(self.held):
             at = len(self.inner)
-            self.inner.append(self.find(self.held[at], self.tops[at] - 1))
+            self.inner.append(self.add_clumps(self.held[at], self.tops[at] - 1))
         self.needs = [0] * len(self.held)
         for at in range(len(self.held) - 1, -1, -1):
             highest = max([self.needs[one] for one in self.inner[at]], default=0)
             self.needs[at] = highest + (highest + self.tops[at]) % 2
 
-    def find(self, inside, most):
+    def add_clumps(self, inside, most):
         """Add the clumps of these rows, by pairs with ranks up to most; told are their numbers."""
         goals = {row: [goal for goal, rank in self.rows[row] if rank <= most] for row in inside}
         found = []

@@ -5,7 +5,7 @@ from allboughs.deciding import means
 from allboughs.errors import BadFormula, BadWood, NoName
 from allboughs.fillings import fillings
 from allboughs.formulas import free_names, is_formula
-from allboughs.grafting import grafted, joined
+from allboughs.grafting import exchanged, grafted, joined
 from allboughs.woods import is_wood, least, within
 from tests.meanings import EMPTY_SCOPE, all_woods, left_over, some_formula, some_plain, true_on, wood_for
 from tests.support import Case, alike, dice, junk_but
@@ -145,18 +145,38 @@ class ByHand(Judged):
         self.assertEqual((word, (len(low) - len(high)) % 195), ("endless", 0))
         self.assertTrue(true_on(PART, filled))
         self.assertTrue(alike(left_over(filled, Y), ring))
-        # On so long a round there is room for a tree that turns aside, and is itself again ahead of the round's end.
-        ring = ("wood", Y, (*((Y if at == 2 else (), (at + 1) % 390, 390) for at in range(390)), ((), 390, 390)))
-        word, filled, high, low = fillings(F, ring)
+        # Behind a long road the root of what is endless: the road is not the trunk.
+        far = ("wood", Y, (*road(150)[2][:149], (Y, 149, 149)))
+        self.held(F, far, fillings(F, far), true_on, 3)
+
+    def long_round(self, ring, many, high):
+        """Look at endless fillings on a round of so many nodes, with no room for two more such rounds."""
+        word, filled, upper, low = fillings(F, ring)
+        self.assertEqual((word, upper, low[:len(high)], len(low) - len(high)), ("endless", high, high, many))
         first = grafted(filled, high, within(filled, low))
-        self.assertEqual((word, low[:len(high)], len(low) - len(high)), ("endless", high, 390))
         for thing in (filled, first):
             self.assertTrue(true_on(PART, thing))
             self.assertTrue(alike(left_over(thing, Y), ring))
         self.assertFalse(alike(filled, first))
-        # Behind a long road the root of what is endless: the road is not the trunk.
-        far = ("wood", Y, (*road(150)[2][:149], (Y, 149, 149)))
-        self.held(F, far, fillings(F, far), true_on, 3)
+
+    def test_a_tree_that_turns_aside_on_a_round(self):
+        """It is itself again ahead of the round's end: unlike at a node, or beside the round, left or right of it."""
+        ring = ("wood", Y, (*((Y if at == 2 else (), (at + 1) % 390, 390) for at in range(390)), ((), 390, 390)))
+        for wood in (ring, exchanged(ring)):
+            self.long_round(wood, 390, ())
+        ring = ("wood", Y, (*((Y if at == 0 else (), (at + 1) % 398, 398) for at in range(398)), ((), 398, 398)))
+        self.long_round(ring, 398, ())
+        self.assertEqual(len(fillings(F, ring)[1][2]), 400)
+        # At the nodes of the round there is no choice, but beside all of them but two there is one.
+        many = 380
+        rows = [((), (at + 1) % many, many + 1 if at in (0, 3) else many) for at in range(many)]
+        ring = ("wood", Y, (*rows, (Y, many + 1, many + 1), ((), many + 1, many + 1)))
+        for wood in (ring, exchanged(ring)):
+            self.long_round(wood, many, ())
+        # Beside a node stands what bears y at its child alone: the choice there is not at once, and no road leads back.
+        far = (*rows, ((), many + 2, many + 1), ((), many + 1, many + 1), (Y, many + 1, many + 1))
+        for wood in (("wood", Y, far), exchanged(("wood", Y, far))):
+            self.long_round(wood, many, ())
 
     def test_the_further_names_are_left_out(self):
         wood = ("wood", ("x", "y", "z"), ((("x", "y"), 1, 1), (("x", "z"), 2, 2), (("z",), 1, 1)))
