@@ -365,6 +365,7 @@ class Follows(Case):
         for function in (follows, parted):
             for thing in junk_but() + [nots(101), ("sub", "x", "all")]:
                 self.fails(BadFormula, function, thing, None)
+                self.fails(BadFormula, function, thing, F)
                 self.fails(BadFormula, function, F, thing)
             self.fails(BadScope, function, F, ("sub", "a", "b"))
             self.fails(BadScope, function, ("both", F, ("root", "z")), ("root", "a"))
@@ -439,6 +440,9 @@ class MachinesParted(Case):
             self.fails(BadMachine, machines_parted, thing, one)
             self.fails(BadMachine, machines_parted, one, thing)
         self.fails(OtherScope, machines_parted, line(30, [0] * 30), machine_of(G))
+        high = ("machine", (), tuple([(at, (("either", ("go", 0, min(300, at + 1)), ("go", 1, max(0, at - 1))),)) for at in range(301)]))
+        self.many(300, contrary, high)
+        self.fails(OtherScope, machines_parted, machine_of(G), high)
         self.many(24, machines_parted, line(25, range(25)), one)
         self.many(24, machines_parted, one, line(25, [0] * 25))
 

@@ -132,6 +132,7 @@ class LeastParting(Case):
     def test_errors(self):
         for thing in junk_but() + [nots(101), ("sub", "x", "all"), *LONG]:
             self.fails(BadFormula, least_parting, thing, None, None)
+            self.fails(BadFormula, least_parting, thing, F, 1)
             self.fails(BadFormula, least_parting, F, thing, None)
         self.fails(BadScope, least_parting, F, ("sub", "a", "b"), None)
         for most in junk_but(1) + [4, 0, -1, 2.0]:
