@@ -37,9 +37,10 @@ class Pairs:
                 letters.append(letter)
         return letters
 
-    def top(self, inside, caps, side):
-        """The greatest rank that one of both tables tells for a kept letter."""
-        return max([self.rank(at, letter, side) for at in inside for letter in self.kept(at, inside, caps)])
+    def top(self, inside, caps, side, odd):
+        """The greatest odd, or even, rank that one of both tables tells for a kept letter; -1 if there is none."""
+        ranks = [self.rank(at, letter, side) for at in inside for letter in self.kept(at, inside, caps)]
+        return max([rank for rank in ranks if rank % 2 == odd], default=-1)
 
     def unlike(self, odd):
         """A clump, as a dict, and caps up to which the greatest rank of the one is odd, and that of the other is not.
@@ -54,11 +55,12 @@ class Pairs:
             goals = {at: [self.goals[at][letter] for letter in self.kept(at, inside, caps)] for at in inside}
             for clump in Walk(list(inside), goals).clumps:
                 held = {at: True for at in clump}
-                one = self.top(held, caps, 0)
-                other = self.top(held, caps, 1)
-                if one % 2 == odd and other % 2 != odd:
+                one = self.top(held, caps, 0, odd)
+                other = self.top(held, caps, 1, 1 - odd)
+                if one > self.top(held, caps, 0, 1 - odd) and other > self.top(held, caps, 1, odd):
                     return held, (one, other)
-                todo.append((held, (one - (one + odd) % 2, other - (other + odd + 1) % 2)))
+                if one >= 0 and other >= 0:
+                    todo.append((held, (one, other)))
         return None
 
     def all_ranks(self):
