@@ -161,6 +161,18 @@ class Part(Case):
         other = ("table", (((0, 2), (0, 4), (0, 1)),))
         told_pair = part(one, other)
         self.assertTrue(unlike(one, other, *told_pair))
+        # The one tells 0 alone, and the other one has a greater rank of the same evenness to be left out.
+        flat = ("table", (((0, 0), (0, 0), (0, 0)),))
+        for high in (2, 4):
+            steep = ("table", (((0, high), (0, 1), (0, high)),))
+            for pair in ((flat, steep), (steep, flat)):
+                told_pair = part(*pair)
+                self.assertTrue(unlike(*pair, *told_pair))
+                self.assertTrue(is_part(*pair, told_pair))
+        flat = ("table", (((0, 1), (0, 1), (0, 1)),))
+        steep = ("table", (((0, 3), (0, 0), (0, 3)),))
+        for pair in ((flat, steep), (steep, flat)):
+            self.assertTrue(unlike(*pair, *part(*pair)))
 
     def test_by_chance(self):
         chance = dice(311)
