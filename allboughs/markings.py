@@ -19,7 +19,9 @@ class Marks:
         small = letters_of(wood[1])
         twins = twins_of(choices[1], name)
         self.twins = [twins[small.index(letter)] for letter, _, _ in wood[2]]
-        self.found = Standings(wood[2], [rank for rank, _ in self.rows], self.pairs_at)
+        self.found = Standings(
+            wood[2], [rank for rank, _ in self.rows], lambda node, state: self.pairs_at(node, state)
+        )
         self.order = [0] if self.found.game.wins[0] else []
         self.numbers = {0: 0}
         self.moves = []
