@@ -120,12 +120,16 @@ def is_plan_from_start(game, side, thing):
     return len(thing[2]) > 0 and thing[2][0][0] == 0
 
 
-def is_verdict(machine, wood, thing):
-    """Whether a value of any kind is a verdict."""
-    game = board_of(machine, wood).told_game()
+def is_verdict_in(game, thing):
+    """Whether a value of any kind is a verdict of a game."""
     if not is_row(thing, 2, 2) or not isinstance(thing[0], str) or thing[0] not in WORDS:
         return False
     return is_plan_from_start(game, WORDS.index(thing[0]), thing[1])
+
+
+def is_verdict(machine, wood, thing):
+    """Whether a value of any kind is a verdict."""
+    return is_verdict_in(board_of(machine, wood).told_game(), thing)
 
 
 def lets_by(machine, wood):
