@@ -63,7 +63,7 @@ def follows(one, other):
     if not game.wins[0]:
         return None
     pursuit = Pursuit(game, other[2])
-    road = pursuit.road()
+    road = pursuit.found_road()
     if road is None:
         return None
     lead, loop = road

@@ -90,7 +90,7 @@ class Pursuit:
         """The triples (history, letter, way) of a row of steps."""
         return [(self.pairs[at][0], step[3], step[4]) for at, step in path]
 
-    def road(self):
+    def found_road(self):
         """Two lists of triples (history, letter, way): a road ahead, and one around; None if there is none."""
         found = self.clump()
         if found is None:
