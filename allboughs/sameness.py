@@ -1,0 +1,58 @@
+"""Whether two formulas mean one: bars that show it, or a wood on which one of them holds alone."""
+
+from allboughs.building import contrary, meeting, widened
+from allboughs.checks import is_row
+from allboughs.chosen import chosen
+from allboughs.compiling import build_machine
+from allboughs.deciding import means, scope_of_both
+from allboughs.emptying import bar, is_bar, some_wood
+from allboughs.formulas import check_no_long
+from allboughs.woods import is_wood
+
+
+def check_both(one, other):
+    """Raise the errors of functions of two formulas but for TooMany; told is the scope of both."""
+    check_no_long(one)
+    check_no_long(other)
+    return scope_of_both(one, other)
+
+
+def both_odds(one, other):
+    """The odds of the one and the other formula, and those of the other and the one."""
+    scope = check_both(one, other)
+    mine = widened(build_machine(one), scope)
+    theirs = widened(build_machine(other), scope)
+    return chosen(meeting(mine, contrary(theirs))), chosen(meeting(theirs, contrary(mine)))
+
+
+def odds(one, other):
+    """The choices that let by just the woods on which the one formula holds and the other one does not."""
+    scope = check_both(one, other)
+    return chosen(meeting(widened(build_machine(one), scope), contrary(widened(build_machine(other), scope))))
+
+
+def sameness(one, other):
+    """("same", bar, bar) if two formulas mean one, otherwise ("parted", a wood on which one of them holds alone)."""
+    mine, theirs = both_odds(one, other)
+    for choices in (mine, theirs):
+        wood = some_wood(choices)
+        if wood is not None:
+            return ("parted", wood)
+    return ("same", bar(mine), bar(theirs))
+
+
+def is_sameness(one, other, thing):
+    """Whether a value of any kind is what sameness may tell."""
+    mine, theirs = both_odds(one, other)
+    if is_row(thing, 3, 3) and isinstance(thing[0], str) and thing[0] == "same":
+        return is_bar(mine, thing[1]) and is_bar(theirs, thing[2])
+    if not is_row(thing, 2, 2) or not isinstance(thing[0], str) or thing[0] != "parted" or not is_wood(thing[1]):
+        return False
+    wood = thing[1]
+    return wood[1] == mine[1] and means(one, wood) != means(other, wood)
+
+
+def nodes_told(one, other):
+    """How many nodes are enough for a wood on which two formulas part, if they do."""
+    mine, theirs = both_odds(one, other)
+    return max(len(mine[2]), len(theirs[2]))
