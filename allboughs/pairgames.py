@@ -69,7 +69,7 @@ class Pursuit:
         return None
 
     def path(self, start, goal, inside, caps):
-        """The shortest row of steps from the one pair to the other one, each as a pair of where it begins and itself."""
+        """The shortest row of steps from the one pair to the other one, each behind the pair where it begins."""
         origins = {start: None}
         order = [start]
         at = 0

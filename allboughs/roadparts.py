@@ -55,7 +55,8 @@ class Roads:
         if word in MARKS:
             return saying if fine else (MARKS[word], saying[1])
         if word in JOINTS:
-            return (word if fine else JOINTS[word], self.number_saying(saying[1], fine), self.number_saying(saying[2], fine))
+            parts = [self.number_saying(part, fine) for part in saying[1:]]
+            return (word if fine else JOINTS[word], parts[0], parts[1])
         # That each road tells something is contrary to some road that does not.
         road = Road(fine == (word == "every"))
         at = len(self.roads)

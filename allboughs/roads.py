@@ -34,7 +34,8 @@ def parts_of_telling(part):
         return [(part[1], False)] if len(part) == 2 else None
     if word == "goes":
         return [] if len(part) == 2 and is_number(part[1], 2) else None
-    if word in ("not", "next", "once", "ever") and len(part) == 2 or word in ("both", "either", "until") and len(part) == 3:
+    fine = word in ("not", "next", "once", "ever") and len(part) == 2
+    if fine or word in ("both", "either", "until") and len(part) == 3:
         return [(below, True) for below in part[1:]]
     return None
 

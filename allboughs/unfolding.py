@@ -99,5 +99,6 @@ class Unfolding:
         if condition[0] == "go":
             return under("next", condition[1], self.of_state(condition[2], around))
         if is_joint(condition):
-            return joined(condition[0], self.of_condition(condition[1], around), self.of_condition(condition[2], around))
+            first = self.of_condition(condition[1], around)
+            return joined(condition[0], first, self.of_condition(condition[2], around))
         return leaf(condition)

@@ -7,6 +7,8 @@ import inspect
 import pathlib
 import unittest
 
+from allboughs.papers import paper_of
+
 FOLDER = pathlib.Path(__file__).resolve().parent.parent / "allboughs"
 
 INTERFACE = {
@@ -76,13 +78,46 @@ INTERFACE = {
     "inclusion": {"met": "one other", "outside": "choices", "inside": "one other"},
     "laying": {"is_laid": "machine wood thing", "laid": "machine wood plan"},
     "leastwoods": {"woods_of": "scope many", "least_parting": "one other most"},
+    "levels": {"are_levels": "game side thing", "levels": "game side"},
+    "wishes": {
+        "is_wish": "thing", "keeps": "wish wood", "breach": "wish wood", "is_breach": "wish wood thing", "both": "one other",
+    },
+    "makers": {
+        "settled": "wish", "least_maker": "wish most", "follows": "one other", "allowed": "wish", "begun": "wish letters",
+    },
+    "melting": {"is_likeness": "machine thing", "likeness": "machine", "melted": "machine"},
+    "rounds": {
+        "bad_trace": "ranks ahead again", "is_bad_trace": "ranks ahead again thing", "measure": "ranks ahead again",
+        "is_measure": "ranks ahead again thing",
+    },
+    "outsiders": {
+        "is_outsider": "thing", "breaks": "wish outsider", "spared": "wish outsider", "is_spared": "wish outsider thing",
+    },
+    "papers": {
+        "paper_of": "formula wood", "is_paper": "formula wood thing", "is_answer": "sentence thing", "standings_of": "formula wood",
+        "pared": "formula wood paper",
+    },
+    "points": {
+        "is_points": "thing", "marks_of": "points", "denied": "points", "unrolled": "points", "nodes_of": "points wood",
+    },
+    "roads": {"is_roads": "thing", "nodes_of_roads": "roads wood"},
+    "plainroads": {"as_points": "roads", "pointed": "short"},
+    "pointing": {"machine_of_points": "points", "points_of": "machine"},
+    "pumping": {"state_at": "choices wood guide place", "looped": "wood high low"},
+    "roadmachines": {"machine_of_roads": "roads"},
+    "sameness": {"odds": "one other", "sameness": "one other", "is_sameness": "one other thing", "nodes_told": "one other"},
+    "spelling": {"spelled": "short", "spelled_out": "formula"},
+    "wishing": {"choices_for": "points", "wood_for": "points", "bar_for": "points", "points_parted": "one other"},
+    "worths": {"are_worths": "game thing", "worths": "game"},
 }
 # The classes of the interface, each with its methods.
 CLASSES = {"desk": {"Desk": {"say": "row", "kept": ""}}}
 ORDER = """errors checks words woods conditions ranking machines building choices steps histories models chosen shortforms
 formulas circles regions picking guides hiding emptying covering pruning shortmeanings shorts compiling grafting games
 playing deciding markings fillings texts woodrows desk drawing tableparts tables easing fewest naming forms inclusion
-laying leastwoods""".split()
+laying leastwoods lifting leveling levels wishes wishgames pairgames makers melting rounds outsiders papers pointsets points
+roadsets roads plainroads pointparts unfolding pointing pumping roadparts roadconditions roadmachines sameness spelling wishing
+worths""".split()
 
 WOOD = ("wood", ("x",), ((("x",), 0, 1), ((), 1, 1)))
 MACHINE = ("machine", ("x",), ((1, (("go", 0, 0), ("go", 0, 1))), (2, (("go", 0, 0), ("go", 0, 1)))))
@@ -97,18 +132,25 @@ PLAN = ("plan", 1, ((0, None), (1, 2), (2, None)))
 WIDE = ("wood", ("y", "z"), ((("y",), 1, 0), (("z",), 1, 1)))
 TABLE = ("table", (((1, 0), (0, 3)), ((0, 2), (1, 1))))
 TURNS = ("wood", ("x",), ((("x",), 1, 0), ((), 0, 0)))
+WISH = ("wish", ("x",), ((1, (((0,), (0,)), ((1,), (1,)))), (2, (((0,), (0,)), ((1,), (1,))))))
+OUTSIDER = ("outsider", ("x",), (((0, 0), (1, 0)),))
+POINTS = ("least", "z", ("either", ("mark", "x"), ("next", 0, ("point", "z"))))
+ROADS = ("some", ("once", ("here", ("mark", "x"))))
+GUIDE = (((0, 0), (1, 1)), ((1, 1), (1, 1)))
 PASSED = {
     "ahead": ((), (STEP,)), "aims": ((), (2,)), "again": ((STEP,),), "choices": (CHOICES,),
     "condition": (CONDITION, ("yes",)), "formula": (FORMULA,), "game": (GAME,), "history": (HISTORY, ((0,), ())),
-    "letters": ((0, 1, 1),), "lot": (((0, 0),), ()), "lots": ((((0, 0),), ((1, 0),)),), "machine": (MACHINE,), "many": (2,),
+    "guide": (GUIDE, ()), "high": ((), (0,)), "letters": ((0, 1, 1), ((), ("x",), ())), "lot": (((0, 0),), ()), "lots": ((((0, 0),), ((1, 0),)),), "machine": (MACHINE,), "many": (2,),
     "most": (2,), "name": ("x", "y"), "names": (("x",), ("a", "y")),
-    "one": (WOOD, WIDE, MACHINE, FORMULA, TABLE, CHOICES), "other": (WOOD, WIDE, MACHINE, SENTENCE, TABLE, CHOICES),
-    "pairs": ((("y", "z"),), (("a", "b"),)), "place": ((0, 1), ()), "plan": (("plan", 0, ((0, 1), (1, 0))), PLAN),
-    "ranks": ((1, 2),), "row": (1,), "scope": (("x", "y"),), "sentence": (SENTENCE,), "short": (("road", "x"), ("same", "x", "x")),
+    "low": ((0, 1), ()), "one": (WOOD, WIDE, MACHINE, FORMULA, TABLE, CHOICES, WISH, POINTS),
+    "other": (WOOD, WIDE, MACHINE, SENTENCE, TABLE, CHOICES, WISH, POINTS), "outsider": (OUTSIDER,),
+    "pairs": ((("y", "z"),), (("a", "b"),)), "paper": (paper_of(FORMULA, WIDE), ("no", PLAN)), "place": ((0, 1), ()),
+    "plan": (("plan", 0, ((0, 1), (1, 0))), PLAN), "points": (POINTS,),
+    "ranks": ((1, 2),), "roads": (ROADS,), "row": (1,), "scope": (("x", "y"),), "sentence": (SENTENCE,), "short": (("road", "x"), ("same", "x", "x")),
     "side": (0, 1), "sketch": (PLAN, ("plan", 0, ((0, 0),))), "state": (1,), "step": (STEP,), "steps": ((STEP, STEP),),
     "table": (TABLE,), "text": ("sub(x,y)", "sub(x"),
     "thing": (WOOD, MACHINE, CHOICES, CONDITION, STEP, HISTORY, FORMULA, "x", None),
-    "wood": (WOOD, WIDE, TURNS, ("wood", (), (((), 0, 0),))),
+    "wish": (WISH,), "wood": (WOOD, WIDE, TURNS, ("wood", (), (((), 0, 0),)), ("wood", ("x",), ((("x",), 1, 1), ((), 1, 1)))),
 }
 
 
