@@ -53,6 +53,19 @@ def counting(many):
     return ("wish", X, tuple(rows))
 
 
+def just_this(wood, share, chance):
+    """A wish that asks for the letters of a wood, but for some of them."""
+    bad = len(wood[2])
+    rows = []
+    for letter, left, right in wood[2]:
+        goals = []
+        for other in bits(wood[1]):
+            fine = other == letter or chance.random() < share
+            goals.append(((left,), (right,)) if fine else ((bad,), (bad,)))
+        rows.append((0, tuple(goals)))
+    return ("wish", wood[1], (*rows, (1, (((bad,), (bad,)),) * len(bits(wood[1])))))
+
+
 def settled_wish(chance, scope, many, ranks, share=0.3):
     """A wish for which no more than 400 histories are met."""
     while True:
@@ -194,17 +207,19 @@ class Hearts(Case):
         self.assertGreater(min(found[:3]), 0)
 
     def test_least_makers_of_three_nodes(self):
+        """A wish that is kept by one tree alone, or, with some letters left open, by some more."""
         chance = dice(532)
         woods = sorted(wood for wood in all_woods(X, 3) if len(reached(wood)) == 3)
         met = 0
-        while met < 4:
-            wish = settled_wish(chance, X, 4, 4, 0.25)
+        for _ in range(30):
+            wish = just_this(chance.choice(woods), chance.choice((0, 0.2)), chance)
             told = least_maker(wish, 3)
-            if told is not None and len(told[2]) == 3:
+            self.assertTrue(is_kept(wish, told))
+            if len(told[2]) == 3:
                 met += 1
-                self.assertTrue(is_kept(wish, told))
                 self.assertIsNone(maker_by_trying(wish, 2))
                 self.assertFalse(any(keeps(wish, wood) for wood in woods[:woods.index(told)]))
+        self.assertGreater(met, 10)
 
     def test_follows(self):
         chance = dice(533)
