@@ -254,9 +254,9 @@ class Errors(Case):
         wood = ("wood", ("x", "y"), rows)
         few, many = [("sub", "x", "y")] * 20, [("sub", "x", "y")] * 40
         while len(few) > 1:
-            few = [("both", few[0], few[1]), *few[2:]]
+            few = [*few[2:], ("both", few[0], few[1])]
         while len(many) > 1:
-            many = [("both", many[0], many[1]), *many[2:]]
+            many = [*many[2:], ("both", many[0], many[1])]
         self.assertGreater(standings_of(few[0], wood), 15000)
         self.assertEqual(paper_of(few[0], wood)[0], "yes")
         self.assertTrue(means(many[0], wood))
