@@ -37,4 +37,11 @@ def is_pair(thing, left, right):
 
 def is_pairs(thing, left, right):
     """Whether it is an ascending tuple of such pairs."""
-    return isinstance(thing, tuple) and all(is_pair(pair, left, right) for pair in thing) and ascends(thing)
+    if not isinstance(thing, tuple):
+        return False
+    ahead = (-1, -1)
+    for pair in thing:
+        if not is_pair(pair, left, right) or pair <= ahead:
+            return False
+        ahead = pair
+    return True

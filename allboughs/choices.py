@@ -3,7 +3,8 @@
 from allboughs.checks import is_headed, is_number, is_pairs, is_row
 from allboughs.conditions import MOST_STATES, NO, halved, to_both
 from allboughs.errors import BadChoices
-from allboughs.machines import RANKS, press
+from allboughs.folding import folded, unfolded
+from allboughs.machines import RANKS, press_plain, press_ranked
 from allboughs.ranking import ranks_anew
 from allboughs.woods import is_scope
 
@@ -63,13 +64,24 @@ def renumbered(lists, numbers):
     return tuple([tuple(sorted([(numbers[left], numbers[right]) for left, right in pairs])) for pairs in lists])
 
 
+def tidy_ranked(scope, rows):
+    """The choices of this scope with these states, tidied, if their ranks are told anew already."""
+    order = met_order(rows)
+    kept = [rows[state][1] for state in order]
+    if order != list(range(len(order))):
+        numbers = {state: number for number, state in enumerate(order)}
+        kept = [renumbered(lists, numbers) for lists in kept]
+    return ("choices", scope, tuple([(rows[state][0], lists) for state, lists in zip(order, kept)]))
+
+
 def tidy(scope, rows):
     """The choices of this scope with these states, tidied."""
-    order = met_order(rows)
-    numbers = {state: number for number, state in enumerate(order)}
-    kept = [renumbered(rows[state][1], numbers) for state in order]
-    ranks = ranks_anew([rows[state][0] for state in order], [ways_of(lists) for lists in kept])
-    return ("choices", scope, tuple(zip(ranks, kept)))
+    told = tidy_ranked(scope, rows)
+    ranks = [rank for rank, _ in told[2]]
+    if max(ranks) == 0:
+        return told
+    ranks = ranks_anew(ranks, [ways_of(lists) for _, lists in told[2]])
+    return ("choices", scope, tuple([(rank, lists) for rank, (_, lists) in zip(ranks, told[2])]))
 
 
 def tidied(choices):
@@ -85,8 +97,24 @@ def condition_of(pairs):
     return halved("either", [to_both(left, right) for left, right in pairs])
 
 
+def machine_rows(choices):
+    """The states of the machine of choices: conditions in the place of lists."""
+    rows, places = folded(choices[2])
+    rows = [(rank, tuple([condition_of(pairs) for pairs in lists])) for rank, lists in rows]
+    return unfolded(rows, places)
+
+
+def machine_of_tidied(choices):
+    """The machine of what is known to be tidied choices: their ranks are told anew."""
+    return press_ranked(choices[1], machine_rows(choices))
+
+
+def as_machine_of(choices):
+    """The machine of what is known to be choices."""
+    return press_plain(choices[1], machine_rows(choices), 0)
+
+
 def as_machine(choices):
     """The machine that lets by just the woods that the choices let by."""
     check_choices(choices)
-    rows = [(rank, [condition_of(pairs) for pairs in lists]) for rank, lists in choices[2]]
-    return press(choices[1], rows, 0)
+    return as_machine_of(choices)

@@ -3,7 +3,8 @@
 from allboughs.choices import MOST_PAIRS, tidy
 from allboughs.conditions import MOST_STATES
 from allboughs.errors import TooMany
-from allboughs.histories import FIRST, lead, runners_of
+from allboughs.folding import folded, unfolded
+from allboughs.leading import START, Leader
 from allboughs.machines import check_machine, press
 from allboughs.models import models_of
 
@@ -12,60 +13,89 @@ MOST_RANK = 9
 MOST_GUESSES = 2000
 
 
-def halves_of(state, condition):
-    """For each model of the condition of a state the pairs of the left and of the right step that it brings."""
-    halves = []
-    for model in models_of(condition):
-        left = tuple([(state, goal) for way, goal in model if way == 0])
-        right = tuple([(state, goal) for way, goal in model if way == 1])
-        halves.append((left, right))
-    return halves
-
-
-def guesses_of(rows):
-    """The pairs of a left and a right step of all guesses, where rows tells the halves of each reached state."""
+def check_guesses(rows):
+    """Raise TooMany for too many guesses; whether there is one, where rows has what is told for each reached state."""
     many = 1
     for halves in rows:
         many *= len(halves)
     if many > MOST_GUESSES:
         raise TooMany(MOST_GUESSES)
-    if many == 0:
-        return []
-    guesses = [((), ())]
-    for halves in rows:
-        guesses = [(left + more, right + other) for left, right in guesses for more, other in halves]
-    return guesses
+    return many > 0
 
 
 class Growth:
-    """The states of the choices as they are met: pairs of a history and a rank, with numbers."""
+    """The states of the choices as they are met: pairs of a history and a rank, with numbers.
 
-    def __init__(self, ranks, halves):
-        """Begin with the first state; halves tells for each state of the machine and each letter its halves."""
-        self.ranks = ranks
-        self.halves = halves
-        self.runners = len(runners_of(ranks))
-        self.states = [(FIRST, 0)]
-        self.numbers = {(FIRST, 0): 0}
+    halves has for each state of the machine and each letter a pair for each model: the numbers of the moves that it
+    brings to the left and to the right step. moves has what these numbers stand for.
+    """
+
+    def __init__(self, ranks, rows):
+        """Begin with the first state, told the models of each state of the machine for each letter."""
+        self.leader = Leader(ranks)
+        self.moves = []
+        self.numbers = {}
+        self.halves = [[[self.half(model) for model in models] for models in row] for row in rows]
+        self.states = [(START, 0)]
+        self.met = {(START, 0): 0}
+
+    def half(self, model):
+        """The numbers of the moves of a model, left and right."""
+        left = tuple([state for way, state in model if way == 0])
+        return (self.move_to(left), self.move_to(tuple([state for way, state in model if way == 1])))
+
+    def move_to(self, goals):
+        """The number of the move to goals."""
+        if goals not in self.numbers:
+            self.numbers[goals] = len(self.moves)
+            self.moves.append(self.leader.move(goals))
+        return self.numbers[goals]
 
     def number(self, state):
         """The number of a state, which is met now if it was not met yet."""
-        if state not in self.numbers:
+        if state not in self.met:
             if len(self.states) == MOST_STATES:
                 raise TooMany(MOST_STATES)
-            self.numbers[state] = len(self.states)
+            self.met[state] = len(self.states)
             self.states.append(state)
-        return self.numbers[state]
+        return self.met[state]
 
-    def list_for(self, history, letter, heard):
+    def options_for(self, history, state, letter, size, parts):
+        """What the guesses for a reached state do: for each of its models left and right, as one number.
+
+        parts keeps what the moves of the state do. Guesses that do the same are told once, where the first one stands.
+        """
+        told = {}
+        for pair in self.halves[state][letter]:
+            for at in pair:
+                if (state, at) not in parts:
+                    parts[(state, at)] = self.leader.part_of(history, state, self.moves[at])
+            told[parts[(state, pair[0])] | parts[(state, pair[1])] << size] = True
+        return list(told)
+
+    def list_for(self, history, letter, heard, parts):
         """The list of the letter with this number behind a history; heard keeps what steps lead to from there."""
+        if not check_guesses([self.halves[state][letter] for state in history[0]]):
+            return ()
+        size = self.leader.size_of(history)
+        guesses = [0]
+        for state in history[0]:
+            options = self.options_for(history, state, letter, size, parts)
+            guesses = list({guess | option: True for guess in guesses for option in options})
         pairs = {}
-        for guess in guesses_of([self.halves[state][letter] for state in history[0]]):
-            for step in guess:
+        for guess in guesses:
+            steps = (guess & (1 << size) - 1, guess >> size)
+            for step in steps:
                 if step not in heard:
-                    heard[step] = self.number(lead(self.ranks, self.runners, history, step))
-            pairs[(heard[guess[0]], heard[guess[1]])] = True
+                    heard[step] = self.number(self.leader.behind(history, step))
+            pairs[(heard[steps[0]], heard[steps[1]])] = True
         return tuple(sorted(pairs))
+
+    def lists_behind(self, history):
+        """The lists behind a history, letter by letter."""
+        heard = {}
+        parts = {}
+        return tuple([self.list_for(history, letter, heard, parts) for letter in range(len(self.halves[0]))])
 
     def grown(self):
         """The states of the choices, as pairs of a rank and lists."""
@@ -74,24 +104,27 @@ class Growth:
         while len(rows) < len(self.states):
             history, rank = self.states[len(rows)]
             if history not in known:
-                heard = {}
-                many = len(self.halves[0])
-                known[history] = tuple([self.list_for(history, letter, heard) for letter in range(many)])
+                known[history] = self.lists_behind(history)
             rows.append((rank, known[history]))
         return rows
 
 
-def chosen(machine):
-    """The choices that let by just the trees that the machine lets by."""
-    check_machine(machine)
-    scope, rows = press(machine[1], machine[2], 0)[1:]
+def chosen_of(machine):
+    """The choices of what is known to be a pressed machine."""
+    scope, rows = machine[1:]
     if len(rows) > MOST_PRESSED:
         raise TooMany(MOST_PRESSED)
     ranks = tuple([rank for rank, _ in rows])
     if max(ranks) > MOST_RANK:
         raise TooMany(MOST_RANK)
-    halves = [[halves_of(at, condition) for condition in row[1]] for at, row in enumerate(rows)]
-    told = Growth(ranks, halves).grown()
+    rows, places = folded(rows)
+    told = Growth(ranks, [[models_of(condition) for condition in conditions] for _, conditions in rows]).grown()
     if any(len(pairs) > MOST_PAIRS for _, lists in told for pairs in lists):
         raise TooMany(MOST_PAIRS)
-    return tidy(scope, told)
+    return ("choices", scope, tuple(unfolded(tidy(scope, told)[2], places)))
+
+
+def chosen(machine):
+    """The choices that let by just the trees that the machine lets by."""
+    check_machine(machine)
+    return chosen_of(press(machine[1], machine[2], 0))

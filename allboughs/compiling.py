@@ -1,12 +1,13 @@
 """From formulas to machines, and to choices: of atoms by hand, of all others from those of their parts."""
 
-from allboughs.building import contrary, joining, meeting, widened
-from allboughs.choices import as_machine
-from allboughs.chosen import chosen
+from allboughs.building import combined, contrary_of, widened_to
+from allboughs.choices import machine_of_tidied
+from allboughs.chosen import chosen_of
 from allboughs.conditions import NO, to_both
-from allboughs.formulas import JOINTS, check_formula, free_in
-from allboughs.hiding import hidden
-from allboughs.pruning import pruned
+from allboughs.formulas import JOINTS, check_formula, free_in, parts_of
+from allboughs.hiding import hidden_of
+from allboughs.machines import press_plain
+from allboughs.pruning import pruned_of
 from allboughs.shortforms import looks_short
 from allboughs.shorts import hand
 from allboughs.woods import letters_of
@@ -55,33 +56,37 @@ def some_not(formula):
 
 
 def build_machine(formula):
-    """The machine of what is known to be a formula."""
+    """The machine of what is known to be a formula. Its conditions are plain; unless it is of an atom it is pressed."""
     word = formula[0]
     if word in JOINTS:
-        scope = free_in(formula)
         one = build_machine(formula[1])
         other = build_machine(formula[2])
-        if word == "both":
-            return meeting(widened(one, scope), widened(other, scope))
-        return joining(widened(one, scope), widened(other, scope))
+        scope = tuple(sorted(set(one[1] + other[1])))
+        return combined(word, widened_to(one, scope), widened_to(other, scope))
     if word == "not":
         part = formula[1]
         if part[0] == "not":
             return build_machine(part[1])
         if part[0] == "all":
             return build_machine(some_not(part))
-        return contrary(build_machine(part))
+        return contrary_of(build_machine(part))
     if word == "all":
-        return contrary(build_machine(some_not(formula)))
+        return contrary_of(build_machine(some_not(formula)))
     if word == "some":
         if formula[1] not in free_in(formula[2]):
             return build_machine(formula[2])
-        return as_machine(build_choices(formula))
+        return machine_of_tidied(build_choices(formula))
     return machine_of_atom(formula)
 
 
+def pressed_of(formula):
+    """The machine of what is known to be a formula, pressed."""
+    told = build_machine(formula)
+    return told if parts_of(formula) else press_plain(told[1], told[2], 0)
+
+
 def build_choices(formula):
-    """The choices of what is known to be a formula."""
+    """The choices of what is known to be a formula; they are tidied."""
     names = []
     part = formula
     while part[0] == "some" or part[0] == "not" and part[1][0] in ("not", "all"):
@@ -91,9 +96,9 @@ def build_choices(formula):
             if part[1] in free_in(part[2]):
                 names.append(part[1])
             part = part[2]
-    told = pruned(chosen(build_machine(part)))
+    told = pruned_of(chosen_of(pressed_of(part)))
     for name in names[::-1]:
-        told = pruned(hidden(told, name))
+        told = pruned_of(hidden_of(told, name))
     return told
 
 

@@ -77,6 +77,26 @@ def goals(condition):
     return found
 
 
+def add_states(condition, found):
+    """Add the states of the goes of a condition, from left to right, to the keys of a dict."""
+    word = condition[0]
+    if word == "go":
+        found[condition[2]] = True
+    elif word == "both" or word == "either":
+        add_states(condition[1], found)
+        add_states(condition[2], found)
+
+
+def add_goals(condition, found):
+    """Add the pairs (way, state) of the goes of a condition to the keys of a dict."""
+    word = condition[0]
+    if word == "go":
+        found[condition[1:]] = True
+    elif word == "both" or word == "either":
+        add_goals(condition[1], found)
+        add_goals(condition[2], found)
+
+
 def goes(condition):
     """The lot of the pairs of all goes of a condition."""
     check_condition(condition)
@@ -103,21 +123,21 @@ def holds(condition, lot):
     return holds_by(condition, {pair: True for pair in lot})
 
 
+def plainly_joined(word, first, second):
+    """Two plain conditions joined by a word, made plain."""
+    if len(first) > 1 and len(second) > 1:
+        return (word, first, second)
+    ending, idle = (NO, YES) if word == "both" else (YES, NO)
+    if ending in (first, second):
+        return ending
+    return second if first == idle else first
+
+
 def made_plain(condition):
     """The condition, made plain."""
     if not is_joint(condition):
         return condition
-    word = condition[0]
-    first = made_plain(condition[1])
-    second = made_plain(condition[2])
-    ending, idle = (NO, YES) if word == "both" else (YES, NO)
-    if ending in (first, second):
-        return ending
-    if first == idle:
-        return second
-    if second == idle:
-        return first
-    return (word, first, second)
+    return plainly_joined(condition[0], made_plain(condition[1]), made_plain(condition[2]))
 
 
 def plain(condition):
@@ -144,10 +164,11 @@ def flipped(condition):
 
 def moved(condition, numbers):
     """The condition with each go to q told as a go to numbers[q]."""
-    if condition[0] == "go":
-        return ("go", condition[1], numbers[condition[2]])
-    if is_joint(condition):
-        return (condition[0], moved(condition[1], numbers), moved(condition[2], numbers))
+    word = condition[0]
+    if word == "go":
+        return (word, condition[1], numbers[condition[2]])
+    if word == "both" or word == "either":
+        return (word, moved(condition[1], numbers), moved(condition[2], numbers))
     return condition
 
 

@@ -2,6 +2,9 @@
 
 from allboughs.ranking import mask_of
 
+# With more unlike pairs than these in a column they are not compared each with each.
+MOST_FEW = 16
+
 
 def worth_of(rank):
     """A number that is the greater the later the rank comes in .. 5, 3, 1, 0, 2, 4 .."""
@@ -10,6 +13,8 @@ def worth_of(rank):
 
 def no_worse(ranks):
     """For each state the mask of the states whose ranks are no worse than its own."""
+    if max(ranks) == 0:
+        return [(1 << len(ranks)) - 1] * len(ranks)
     worths = [worth_of(rank) for rank in ranks]
     masks = {worth: mask_of([at for at, other in enumerate(worths) if other >= worth]) for worth in sorted(set(worths))}
     return [masks[worth] for worth in worths]
@@ -70,16 +75,62 @@ def narrowed(covers, lists, met):
     return told
 
 
+class Few:
+    """A column with few unlike pairs: for each of them its states, the bits of both, and the states that have it."""
+
+    def __init__(self, lists):
+        """Find out who has which pair."""
+        holders = {}
+        for state, pairs in enumerate(lists):
+            for pair in pairs:
+                holders.setdefault(pair, []).append(state)
+        self.rows = []
+        for (left, right), states in holders.items():
+            self.rows.append((left, right, 1 << left, 1 << right, mask_of(states), states))
+
+    def narrow(self, covers):
+        """The masks of what covers each state, narrowed to what has, for each pair of its list, one that covers it."""
+        told = list(covers)
+        for left, right, _, _, _, states in self.rows:
+            upper = covers[left]
+            beside = covers[right]
+            met = 0
+            for _, _, one, other, held, _ in self.rows:
+                if upper & one and beside & other:
+                    met |= held
+            for state in states:
+                told[state] &= met
+        return told
+
+
+class Many:
+    """A column with more of them, which are looked up by what covers their states."""
+
+    def __init__(self, lists):
+        """Find out who has which pair."""
+        self.lists = lists
+        self.holders = holders_of(lists)
+
+    def narrow(self, covers):
+        """The same as for few pairs."""
+        return narrowed(covers, self.lists, meet(self.holders, covers))
+
+
+def column_of(lists):
+    """A column of lists, one for each state, ready to be narrowed by."""
+    few = Few(lists)
+    return few if len(few.rows) <= MOST_FEW else Many(lists)
+
+
 def covers_of(ranks, lists):
     """For each state the mask of the states that cover it, where lists tells the lists of each state."""
-    columns = [[row[at] for row in lists] for at in range(len(lists[0]))]
-    tables = [holders_of(column) for column in columns]
     covers = no_worse(ranks)
-    changed = True
-    while changed:
-        changed = False
-        for column, table in zip(columns, tables):
-            fresh = narrowed(covers, column, meet(table, covers))
-            changed = changed or fresh != covers
-            covers = fresh
+    columns = [column_of([row[at] for row in lists]) for at in range(len(lists[0]))]
+    at = 0
+    quiet = 0
+    while quiet < len(columns):
+        fresh = columns[at].narrow(covers)
+        quiet = quiet + 1 if fresh == covers else 0
+        covers = fresh
+        at = (at + 1) % len(columns)
     return covers

@@ -1,14 +1,14 @@
 """What formulas mean: on a wood, for all woods, compared with one another."""
 
-from allboughs.building import contrary, meeting, widened
-from allboughs.chosen import chosen
+from allboughs.building import combined, contrary_of, widened_to
+from allboughs.chosen import chosen_of
 from allboughs.compiling import build_choices, build_machine
-from allboughs.emptying import some_wood
+from allboughs.emptying import wood_in
 from allboughs.errors import BadFormula, BadScope, BadSentence, NoName, OtherScope
 from allboughs.formulas import BINDERS, MOST_FREE, check_formula, free_in, is_sentence
 from allboughs.grafting import left_out
 from allboughs.hiding import marked
-from allboughs.machines import check_machine
+from allboughs.machines import check_machine, press
 from allboughs.playing import board_of, lets_marks_by, verdict_in
 from allboughs.woods import MOST_NODES, check_wood, least_rows
 
@@ -73,8 +73,8 @@ def scope_of_both(one, other):
 
 
 def between(one, other):
-    """A wood that the one machine lets by and the other one does not; None if there is none."""
-    return some_wood(chosen(meeting(one, contrary(other))))
+    """A wood that the one machine lets by and the other one does not; None if there is none. Both are pressed."""
+    return wood_in(chosen_of(combined("both", one, contrary_of(other))))
 
 
 def told_apart(one, other):
@@ -86,13 +86,13 @@ def told_apart(one, other):
 def follows(one, other):
     """None if the other formula holds wherever the one does, otherwise a wood on which the one holds alone."""
     scope = scope_of_both(one, other)
-    return between(widened(build_machine(one), scope), widened(build_machine(other), scope))
+    return between(widened_to(build_machine(one), scope), widened_to(build_machine(other), scope))
 
 
 def parted(one, other):
     """None if both formulas hold for the same sets, otherwise a wood on which just one of them holds."""
     scope = scope_of_both(one, other)
-    return told_apart(widened(build_machine(one), scope), widened(build_machine(other), scope))
+    return told_apart(widened_to(build_machine(one), scope), widened_to(build_machine(other), scope))
 
 
 def machines_parted(one, other):
@@ -101,4 +101,4 @@ def machines_parted(one, other):
     check_machine(other)
     if one[1] != other[1]:
         raise OtherScope("machines of unlike scopes")
-    return told_apart(one, other)
+    return told_apart(press(one[1], one[2], 0), press(other[1], other[2], 0))

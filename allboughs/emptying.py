@@ -4,14 +4,18 @@ from allboughs.checks import ascends, is_number, is_row
 from allboughs.choices import check_choices
 from allboughs.circles import has_round
 from allboughs.picking import Picking
+from allboughs.usefulness import picked_pairs
 from allboughs.woods import letters_of, walked
 
 
-def game_of_states(choices):
-    """The game in which the picker picks at a state any pair of any of its lists."""
-    rows = choices[2]
-    options = [sorted({pair for pairs in lists for pair in pairs}) for _, lists in rows]
-    return Picking([rank for rank, _ in rows], options)
+def options_of(choices):
+    """For each state all pairs of all its lists, ascending."""
+    return [sorted({pair for pairs in lists for pair in pairs}) for _, lists in choices[2]]
+
+
+def ranks_of(choices):
+    """The ranks of the states."""
+    return [rank for rank, _ in choices[2]]
 
 
 def letter_with(lists, pair, known):
@@ -19,25 +23,29 @@ def letter_with(lists, pair, known):
     return [letter for letter, pairs in zip(known, lists) if pair in pairs][0]
 
 
-def some_wood(choices):
-    """A wood that is let by; None if there is none."""
-    check_choices(choices)
-    game = game_of_states(choices)
-    if not game.wins[0]:
+def wood_in(choices):
+    """A wood that is let by what is known to be choices; None if there is none."""
+    picked = picked_pairs(ranks_of(choices), options_of(choices))
+    if picked[0] is None:
         return None
     known = letters_of(choices[1])
     nodes = {}
-    for state, (_, lists) in enumerate(choices[2]):
-        if game.wins[state]:
-            pair = game.picked[state]
-            nodes[state] = (letter_with(lists, pair, known), pair[0], pair[1])
+    for state, pair in enumerate(picked):
+        if pair is not None:
+            nodes[state] = (letter_with(choices[2][state][1], pair, known), pair[0], pair[1])
     return ("wood", choices[1], walked(nodes, 0))
+
+
+def some_wood(choices):
+    """A wood that is let by; None if there is none."""
+    check_choices(choices)
+    return wood_in(choices)
 
 
 def bar(choices):
     """A bar, which tells for each pair a way to go where no wood is let by; None if some wood is."""
     check_choices(choices)
-    game = game_of_states(choices)
+    game = Picking(ranks_of(choices), options_of(choices))
     if game.wins[0]:
         return None
     rows = choices[2]

@@ -39,21 +39,31 @@ def parts_of(formula):
     return formula[1:] if formula[0] == "not" else ()
 
 
+def scope_of_names(names):
+    """The scope of one name or two."""
+    if len(names) == 1 or names[0] < names[1]:
+        return names
+    return names[:1] if names[0] == names[1] else (names[1], names[0])
+
+
 def free_in(formula):
     """The scope of the free names; None if the formula, or one in it, has more than 3 of them."""
-    names = []
-    parts = parts_of(formula)
-    for part in parts:
-        inner = free_in(part)
-        if inner is None:
-            return None
-        names.extend(inner)
-    if not parts:
-        names.extend(formula[1:])
-    if formula[0] in BINDERS:
-        names = [name for name in names if name != formula[1]]
-    scope = tuple(sorted(set(names)))
-    return scope if len(scope) <= MOST_FREE else None
+    word = formula[0]
+    if word == "not":
+        return free_in(formula[1])
+    if word in JOINTS:
+        one = free_in(formula[1])
+        other = free_in(formula[2])
+        if one is None or other is None or one == other:
+            return one if other is not None else None
+        scope = tuple(sorted(set(one + other)))
+        return scope if len(scope) <= MOST_FREE else None
+    if word in BINDERS:
+        scope = free_in(formula[2])
+        if scope is None or formula[1] not in scope:
+            return scope
+        return tuple([name for name in scope if name != formula[1]])
+    return scope_of_names(formula[1:])
 
 
 def nodes_below(thing, wide):

@@ -1,6 +1,6 @@
 """Hidden names: choices that guess the marks of a name as well, and such marks told."""
 
-from allboughs.choices import MOST_PAIRS, check_choices, tidy
+from allboughs.choices import MOST_PAIRS, check_choices, tidy, tidy_ranked
 from allboughs.errors import BadName, OtherScope, TooMany
 from allboughs.guides import Standings, check_standings
 from allboughs.woods import MOST_NODES, check_wood, least_rows, letters_of
@@ -19,11 +19,8 @@ def scope_without(scope, name):
 
 def twins_of(scope, name):
     """For each letter of the scope without the name the numbers of the letters of the scope without and with it."""
-    known = letters_of(scope)
-    twins = []
-    for letter in letters_of(scope_without(scope, name)):
-        twins.append((known.index(letter), known.index(tuple(sorted([*letter, name])))))
-    return twins
+    bit = 1 << scope.index(name)
+    return [(number, number | bit) for number in range(1 << len(scope)) if not number & bit]
 
 
 def pairs_of_both(lists, twin):
@@ -31,15 +28,25 @@ def pairs_of_both(lists, twin):
     return tuple(sorted(set(lists[twin[0]] + lists[twin[1]])))
 
 
-def hidden(choices, name):
-    """The choices that let a wood by if some marks of the name make it one that these choices let by."""
-    check_choices(choices)
-    check_name(choices, name)
+def hidden_rows(choices, name):
+    """The states of what is known to be choices without a name of their scope: its marks are guessed as well."""
     twins = twins_of(choices[1], name)
     rows = [(rank, tuple([pairs_of_both(lists, twin) for twin in twins])) for rank, lists in choices[2]]
     if any(len(pairs) > MOST_PAIRS for _, lists in rows for pairs in lists):
         raise TooMany(MOST_PAIRS)
-    return tidy(scope_without(choices[1], name), rows)
+    return rows
+
+
+def hidden_of(choices, name):
+    """The same as hidden for what is known to be tidied choices: each state leads where it did, so all ranks stay."""
+    return tidy_ranked(scope_without(choices[1], name), hidden_rows(choices, name))
+
+
+def hidden(choices, name):
+    """The choices that let a wood by if some marks of the name make it one that these choices let by."""
+    check_choices(choices)
+    check_name(choices, name)
+    return tidy(scope_without(choices[1], name), hidden_rows(choices, name))
 
 
 def marked_rows(choices, wood, name):

@@ -1,9 +1,9 @@
 """Choices of what both let by, of what is not let by, and whether one lets by nothing that the other one does not."""
 
-from allboughs.building import contrary, meeting
-from allboughs.choices import as_machine, check_choices
-from allboughs.chosen import chosen
-from allboughs.emptying import some_wood
+from allboughs.building import combined, contrary_of
+from allboughs.choices import as_machine_of, check_choices
+from allboughs.chosen import chosen_of
+from allboughs.emptying import wood_in
 from allboughs.errors import OtherScope
 
 
@@ -18,16 +18,16 @@ def check_both(one, other):
 def met(one, other):
     """The choices that let by just the woods that both let by."""
     check_both(one, other)
-    return chosen(meeting(as_machine(one), as_machine(other)))
+    return chosen_of(combined("both", as_machine_of(one), as_machine_of(other)))
 
 
 def outside(choices):
     """The choices that let by just the woods that these do not let by."""
     check_choices(choices)
-    return chosen(contrary(as_machine(choices)))
+    return chosen_of(contrary_of(as_machine_of(choices)))
 
 
 def inside(one, other):
     """None if the other one lets by each wood that the one lets by, otherwise a wood that the one alone lets by."""
     check_both(one, other)
-    return some_wood(chosen(meeting(as_machine(one), contrary(as_machine(other)))))
+    return wood_in(chosen_of(combined("both", as_machine_of(one), contrary_of(as_machine_of(other)))))

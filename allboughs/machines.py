@@ -1,8 +1,9 @@
 """Machines of challenges, and machines pressed: with no states, parts and ranks that they do not need."""
 
 from allboughs.checks import is_headed, is_number, is_row
-from allboughs.conditions import MOST_STATES, goals, is_condition_for, made_plain, moved
+from allboughs.conditions import MOST_STATES, add_states, is_condition_for, made_plain, moved
 from allboughs.errors import BadMachine
+from allboughs.folding import folded, unfolded
 from allboughs.ranking import ranks_anew
 from allboughs.woods import is_scope
 
@@ -32,30 +33,65 @@ def check_machine(machine):
         raise BadMachine("not a machine")
 
 
-def met_states(rows, start):
-    """The states that can be come to from start as a walk meets them, and their conditions made plain."""
+def met_rows(rows, start):
+    """The states that can be come to from start as a walk meets them, and for each of them those to which it has goes.
+
+    rows may be a list or a dict, of states whose conditions are plain.
+    """
     order = [start]
     met = {start: True}
-    plains = []
-    while len(plains) < len(order):
-        conditions = [made_plain(condition) for condition in rows[order[len(plains)]][1]]
-        plains.append(conditions)
-        for condition in conditions:
-            for _, state in goals(condition):
-                if state not in met:
-                    met[state] = True
-                    order.append(state)
-    return order, plains
+    leads = []
+    while len(leads) < len(order):
+        found = {}
+        for condition in rows[order[len(leads)]][1]:
+            add_states(condition, found)
+        for state in found:
+            if state not in met:
+                met[state] = True
+                order.append(state)
+        leads.append(found)
+    return order, leads
+
+
+def numbered(rows, order):
+    """The states in this order, with the goes of their conditions numbered so."""
+    kept = [rows[state] for state in order]
+    if order == list(range(len(order))):
+        return kept
+    numbers = {state: number for number, state in enumerate(order)}
+    kept, places = folded(kept)
+    return unfolded([(rank, [moved(condition, numbers) for condition in row]) for rank, row in kept], places)
+
+
+def machine_told(scope, ranks, kept):
+    """The machine of these ranks and of the conditions of these states."""
+    return ("machine", scope, tuple([(rank, tuple(row)) for rank, (_, row) in zip(ranks, kept)]))
+
+
+def press_plain(scope, rows, start):
+    """The pressed machine of states that begins with start, all of whose conditions are plain."""
+    order, leads = met_rows(rows, start)
+    ranks = [rows[state][0] for state in order]
+    if max(ranks) > 0:
+        numbers = {state: number for number, state in enumerate(order)}
+        ranks = ranks_anew(ranks, [[numbers[state] for state in found] for found in leads])
+    return machine_told(scope, ranks, numbered(rows, order))
+
+
+def press_ranked(scope, rows):
+    """The same for states from 0 on, the ranks of which are told anew already."""
+    order = met_rows(rows, 0)[0]
+    return machine_told(scope, [rows[state][0] for state in order], numbered(rows, order))
+
+
+def plain_rows(rows):
+    """The states with their conditions made plain."""
+    return [(rank, tuple([made_plain(condition) for condition in conditions])) for rank, conditions in rows]
 
 
 def press(scope, rows, start):
     """The pressed machine of states that begins with start. There may be more of them than a machine has."""
-    order, plains = met_states(rows, start)
-    numbers = {state: number for number, state in enumerate(order)}
-    kept = [tuple([moved(condition, numbers) for condition in conditions]) for conditions in plains]
-    ways = [[state for condition in conditions for _, state in goals(condition)] for conditions in kept]
-    ranks = ranks_anew([rows[state][0] for state in order], ways)
-    return ("machine", scope, tuple(zip(ranks, kept)))
+    return press_plain(scope, plain_rows(rows), start)
 
 
 def pressed(machine):

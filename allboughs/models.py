@@ -5,7 +5,7 @@ one is the lesser number then.
 """
 
 from allboughs.checks import ascends
-from allboughs.conditions import MOST_NODES, NO, YES, check_condition, goals, halved, is_lot
+from allboughs.conditions import MOST_NODES, NO, YES, add_goals, check_condition, halved, is_lot
 from allboughs.errors import BadLots, TooMany
 
 MOST_MODELS = 2000
@@ -13,6 +13,8 @@ MOST_MODELS = 2000
 
 def least_of(masks):
     """The masks, ascending, within which no other one of them lies."""
+    if len(masks) < 2:
+        return masks
     kept = []
     for mask in sorted(set(masks)):
         if all(mask & fewer != fewer for fewer in kept):
@@ -38,9 +40,29 @@ def least_masks(condition, bits):
     return least_of(mine + theirs)
 
 
+def plain_lots(condition, lots):
+    """Whether a condition tells by either alone some lots of two pairs, as those of choices do; they are added."""
+    word = condition[0]
+    if word == "either":
+        return plain_lots(condition[1], lots) and plain_lots(condition[2], lots)
+    if word != "both" or condition[1][0] != "go" or condition[2][0] != "go":
+        return False
+    one = condition[1][1:]
+    other = condition[2][1:]
+    lots[(one, other) if one < other else (other, one)] = True
+    return one != other
+
+
 def models_of(condition):
     """The models of what is known to be a condition."""
-    pairs = sorted(set(goals(condition)))
+    if condition[0] == "go":
+        return ((condition[1:],),)
+    lots = {}
+    if plain_lots(condition, lots):
+        return tuple(sorted(lots))
+    found = {}
+    add_goals(condition, found)
+    pairs = sorted(found)
     bits = {pair: 1 << at for at, pair in enumerate(pairs)}
     masks = least_masks(condition, bits)
     return tuple(sorted([tuple([pair for pair in pairs if mask & bits[pair]]) for mask in masks]))

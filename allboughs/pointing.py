@@ -2,7 +2,7 @@
 
 from allboughs.conditions import MOST_DEEP, MOST_NODES, MOST_STATES, goals
 from allboughs.errors import TooMany
-from allboughs.machines import check_machine, press
+from allboughs.machines import check_machine, press, press_plain
 from allboughs.pointparts import PARTS, Opening, Parts
 from allboughs.points import check_points, marks_in
 from allboughs.unfolding import Unfolding
@@ -39,7 +39,7 @@ def machine_of_points(points):
                 states.append(goal)
         if len(states) > MOST_STATES:
             raise TooMany(MOST_STATES)
-    return press(scope, rows, 0)
+    return press_plain(scope, rows, 0)
 
 
 def points_of(machine):

@@ -26,28 +26,77 @@ def reach_of(goals):
     return reach
 
 
-def rank_by_ring(state, ranks, reach, fresh):
-    """The new rank of a state, if reach tells what is come to through states of no greater ranks than its own."""
-    if not reach[state] >> state & 1:
-        return 0
-    rank = ranks[state]
-    inner = [
-        fresh[at]
-        for at in range(len(ranks))
-        if ranks[at] < rank and reach[state] >> at & 1 and reach[at] >> state & 1
-    ]
-    highest = max(inner, default=0)
+def flood(masks, start, inside):
+    """The mask of the states inside to which one comes from those of start, where masks tells the goals of each."""
+    reached = start & inside
+    front = reached
+    while front:
+        state = front.bit_length() - 1
+        fresh = masks[state] & inside & ~reached
+        reached |= fresh
+        front = front ^ 1 << state | fresh
+    return reached
+
+
+def turned_masks(masks):
+    """For each state the mask of the states that have it among their goals."""
+    told = [0] * len(masks)
+    for state, mask in enumerate(masks):
+        while mask:
+            goal = mask.bit_length() - 1
+            mask ^= 1 << goal
+            told[goal] |= 1 << state
+    return told
+
+
+def rank_of_ring(ring, rank, below, fresh):
+    """The new rank of the states of a rank in a ring, where below tells the states of lesser ranks."""
+    highest = 0
+    inner = ring & below
+    while inner:
+        at = inner.bit_length() - 1
+        inner ^= 1 << at
+        highest = max(highest, fresh[at])
     return highest + (highest + rank) % 2
 
 
 def ranks_anew(ranks, goals):
     """The ranks of the states told anew, where goals tells the states to which each state has a go."""
-    reach = [mask_of(row) for row in goals]
     fresh = [0] * len(ranks)
-    for rank in sorted(set(ranks)):
-        states = [at for at in range(len(ranks)) if ranks[at] == rank]
+    known = sorted(set(ranks))
+    if len(known) == 1 and known[0] % 2 == 0:
+        return fresh
+    masks = [mask_of(row) for row in goals]
+    back = turned_masks(masks)
+    below = 0
+    for rank in known:
+        states = [at for at, other in enumerate(ranks) if other == rank]
+        inside = below | mask_of(states)
+        done = 0
         for state in states:
-            reach = through(reach, state)
-        for state in states:
-            fresh[state] = rank_by_ring(state, ranks, reach, fresh)
+            if done >> state & 1:
+                continue
+            ahead = flood(masks, masks[state], inside)
+            if ahead >> state & 1:
+                ring = ahead & flood(back, back[state], inside)
+                told = rank_of_ring(ring, rank, below, fresh)
+                done |= ring
+                for other in states:
+                    if ring >> other & 1:
+                        fresh[other] = told
+        below = inside
     return fresh
+
+
+def coming_back(goals):
+    """The mask of the states from which one comes back to themselves."""
+    masks = [mask_of(row) for row in goals]
+    back = turned_masks(masks)
+    everything = (1 << len(goals)) - 1
+    told = 0
+    for state, mask in enumerate(masks):
+        if not told >> state & 1:
+            ahead = flood(masks, mask, everything)
+            if ahead >> state & 1:
+                told |= ahead & flood(back, back[state], everything)
+    return told

@@ -1,11 +1,11 @@
 """Whether two formulas mean one: bars that show it, or a wood on which one of them holds alone."""
 
-from allboughs.building import contrary, meeting, widened
+from allboughs.building import combined, contrary_of, widened_to
 from allboughs.checks import is_row
-from allboughs.chosen import chosen
+from allboughs.chosen import chosen_of
 from allboughs.compiling import build_machine
 from allboughs.deciding import means, scope_of_both
-from allboughs.emptying import bar, is_bar, some_wood
+from allboughs.emptying import bar, is_bar, wood_in
 from allboughs.formulas import check_no_long
 from allboughs.woods import is_wood
 
@@ -17,25 +17,34 @@ def check_both(one, other):
     return scope_of_both(one, other)
 
 
+def odds_of(mine, theirs):
+    """The choices that let by just the woods that the one machine lets by and the other one does not."""
+    return chosen_of(combined("both", mine, contrary_of(theirs)))
+
+
+def machines_of(one, other):
+    """The machines of two formulas, widened to the free names of both."""
+    scope = check_both(one, other)
+    return widened_to(build_machine(one), scope), widened_to(build_machine(other), scope)
+
+
 def both_odds(one, other):
     """The odds of the one and the other formula, and those of the other and the one."""
-    scope = check_both(one, other)
-    mine = widened(build_machine(one), scope)
-    theirs = widened(build_machine(other), scope)
-    return chosen(meeting(mine, contrary(theirs))), chosen(meeting(theirs, contrary(mine)))
+    mine, theirs = machines_of(one, other)
+    return odds_of(mine, theirs), odds_of(theirs, mine)
 
 
 def odds(one, other):
     """The choices that let by just the woods on which the one formula holds and the other one does not."""
-    scope = check_both(one, other)
-    return chosen(meeting(widened(build_machine(one), scope), contrary(widened(build_machine(other), scope))))
+    mine, theirs = machines_of(one, other)
+    return odds_of(mine, theirs)
 
 
 def sameness(one, other):
     """("same", bar, bar) if two formulas mean one, otherwise ("parted", a wood on which one of them holds alone)."""
     mine, theirs = both_odds(one, other)
     for choices in (mine, theirs):
-        wood = some_wood(choices)
+        wood = wood_in(choices)
         if wood is not None:
             return ("parted", wood)
     return ("same", bar(mine), bar(theirs))
