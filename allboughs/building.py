@@ -69,14 +69,19 @@ def combined(word, one, other):
     return sized(one[1], press_ranked(one[1], rows)[2], places)
 
 
+def combined_plain(word, one, other):
+    """What is known to be two machines of one scope with plain conditions, joined by a word."""
+    rows, places = joint_rows(word, one, other)
+    return sized(one[1], press_plain(one[1], rows, 0)[2], places)
+
+
 def combined_anew(word, one, other):
     """Two machines of one scope joined by a word."""
     check_machine(one)
     check_machine(other)
     if one[1] != other[1]:
         raise OtherScope("machines of unlike scopes")
-    rows, places = joint_rows(word, plain_machine(one), plain_machine(other))
-    return sized(one[1], press_plain(one[1], rows, 0)[2], places)
+    return combined_plain(word, plain_machine(one), plain_machine(other))
 
 
 def meeting(one, other):

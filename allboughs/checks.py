@@ -32,7 +32,9 @@ def is_numbers(thing, limit):
 
 def is_pair(thing, left, right):
     """Whether it is a pair of numbers, the first one below left, the second one below right."""
-    return is_row(thing, 2, 2) and is_number(thing[0], left) and is_number(thing[1], right)
+    if not isinstance(thing, tuple) or len(thing) != 2:
+        return False
+    return is_number(thing[0], left) and is_number(thing[1], right)
 
 
 def is_pairs(thing, left, right):

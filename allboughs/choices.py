@@ -20,7 +20,10 @@ def is_state(thing, many, states):
     """Whether it is a state of choices with so many letters and so many states."""
     if not is_row(thing, 2, 2) or not is_number(thing[0], RANKS) or not is_row(thing[1], many, many):
         return False
-    return all(is_list(pairs, states) for pairs in thing[1])
+    for pairs in thing[1]:
+        if not is_list(pairs, states):
+            return False
+    return True
 
 
 def is_choices(thing):
@@ -30,7 +33,10 @@ def is_choices(thing):
     rows = thing[2]
     if not is_row(rows, 1, MOST_STATES):
         return False
-    return all(is_state(row, 1 << len(thing[1]), len(rows)) for row in rows)
+    for row in rows:
+        if not is_state(row, 1 << len(thing[1]), len(rows)):
+            return False
+    return True
 
 
 def check_choices(choices):
@@ -97,21 +103,21 @@ def condition_of(pairs):
     return halved("either", [to_both(left, right) for left, right in pairs])
 
 
-def machine_rows(choices):
-    """The states of the machine of choices: conditions in the place of lists."""
+def unpressed_of(choices):
+    """What is known to be choices with conditions in the place of lists."""
     rows, places = folded(choices[2])
-    rows = [(rank, tuple([condition_of(pairs) for pairs in lists])) for rank, lists in rows]
-    return unfolded(rows, places)
+    rows = [(rank, [condition_of(pairs) for pairs in lists]) for rank, lists in rows]
+    return ("machine", choices[1], unfolded(rows, places))
 
 
 def machine_of_tidied(choices):
     """The machine of what is known to be tidied choices: their ranks are told anew."""
-    return press_ranked(choices[1], machine_rows(choices))
+    return press_ranked(choices[1], unpressed_of(choices)[2])
 
 
 def as_machine_of(choices):
     """The machine of what is known to be choices."""
-    return press_plain(choices[1], machine_rows(choices), 0)
+    return press_plain(choices[1], unpressed_of(choices)[2], 0)
 
 
 def as_machine(choices):

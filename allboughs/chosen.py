@@ -13,16 +13,6 @@ MOST_RANK = 9
 MOST_GUESSES = 2000
 
 
-def check_guesses(rows):
-    """Raise TooMany for too many guesses; whether there is one, where rows has what is told for each reached state."""
-    many = 1
-    for halves in rows:
-        many *= len(halves)
-    if many > MOST_GUESSES:
-        raise TooMany(MOST_GUESSES)
-    return many > 0
-
-
 class Growth:
     """The states of the choices as they are met: pairs of a history and a rank, with numbers.
 
@@ -35,6 +25,7 @@ class Growth:
         self.leader = Leader(ranks)
         self.moves = []
         self.numbers = {}
+        self.lone = {}
         self.halves = [[[self.half(model) for model in models] for models in row] for row in rows]
         self.states = [(START, 0)]
         self.met = {(START, 0): 0}
@@ -60,35 +51,57 @@ class Growth:
             self.states.append(state)
         return self.met[state]
 
-    def options_for(self, history, state, letter, size, parts):
+    def options_for(self, history, state, letter, parts):
         """What the guesses for a reached state do: for each of its models left and right, as one number.
 
         parts keeps what the moves of the state do. Guesses that do the same are told once, where the first one stands.
         """
+        size = self.leader.size_of(history)
         told = {}
-        for pair in self.halves[state][letter]:
-            for at in pair:
+        for left, right in self.halves[state][letter]:
+            for at in (left, right):
                 if (state, at) not in parts:
                     parts[(state, at)] = self.leader.part_of(history, state, self.moves[at])
-            told[parts[(state, pair[0])] | parts[(state, pair[1])] << size] = True
+            told[parts[(state, left)] | parts[(state, right)] << size] = True
         return list(told)
+
+    def lone_options(self, history, state, letter):
+        """The same for a history without nests: all of them have the same options, which are kept."""
+        key = (state, letter)
+        if key not in self.lone:
+            self.lone[key] = self.options_for(history, state, letter, {})
+        return self.lone[key]
+
+    def is_open(self, history, letter):
+        """Whether there is a guess at all; TooMany is raised if there are too many of them."""
+        many = 1
+        for state in history[0]:
+            many *= len(self.halves[state][letter])
+        if many > MOST_GUESSES:
+            raise TooMany(MOST_GUESSES)
+        return many > 0
 
     def list_for(self, history, letter, heard, parts):
         """The list of the letter with this number behind a history; heard keeps what steps lead to from there."""
-        if not check_guesses([self.halves[state][letter] for state in history[0]]):
+        if not self.is_open(history, letter):
             return ()
-        size = self.leader.size_of(history)
         guesses = [0]
         for state in history[0]:
-            options = self.options_for(history, state, letter, size, parts)
+            if history[1]:
+                options = self.options_for(history, state, letter, parts)
+            else:
+                options = self.lone_options(history, state, letter)
             guesses = list({guess | option: True for guess in guesses for option in options})
+        size = self.leader.size_of(history)
+        full = (1 << size) - 1
         pairs = {}
         for guess in guesses:
-            steps = (guess & (1 << size) - 1, guess >> size)
-            for step in steps:
+            left = guess & full
+            right = guess >> size
+            for step in (left, right):
                 if step not in heard:
                     heard[step] = self.number(self.leader.behind(history, step))
-            pairs[(heard[steps[0]], heard[steps[1]])] = True
+            pairs[(heard[left], heard[right])] = True
         return tuple(sorted(pairs))
 
     def lists_behind(self, history):
