@@ -73,7 +73,7 @@ def scope_of_both(one, other):
 
 
 def between(one, other):
-    """A wood that the one machine lets by and the other one does not; None if there is none. Both are pressed."""
+    """A wood that the one machine lets by and the other one does not; None if there is none."""
     return wood_in(chosen_of(combined("both", one, contrary_of(other))))
 
 

@@ -3,7 +3,7 @@
 from allboughs.checks import is_headed, is_pair, is_row
 from allboughs.circles import found_round, has_round
 from allboughs.errors import BadOutsider, OtherScope, TooMany
-from allboughs.histories import FIRST
+from allboughs.leading import START
 from allboughs.wishes import check_wish
 from allboughs.wishgames import Judge, is_letter
 from allboughs.woods import is_scope, letters_of
@@ -43,9 +43,9 @@ class Seen:
         """Meet them at once."""
         self.rows = outsider[2]
         self.judge = Judge(wish)
-        self.pairs = {(0, FIRST): True}
-        self.arrivals = [(0, FIRST, 0)]
-        self.numbers = {(0, FIRST, 0): 0}
+        self.pairs = {(0, START): True}
+        self.arrivals = [(0, START, 0)]
+        self.numbers = {(0, START, 0): 0}
         self.goals = []
         known = {}
         while len(self.goals) < len(self.arrivals):
@@ -123,19 +123,16 @@ class Sight:
         """Begin at the first row."""
         self.rows = outsider[2]
         self.known = {letter: at for at, letter in enumerate(letters_of(wish[1]))}
-        self.judge = Judge(wish)
+        self.states = wish[2]
         self.row = 0
 
     def steps_for(self, letters):
-        """The steps, as dicts from states to goals, while it sees these letters; it goes on with the row behind."""
+        """The steps, as the goals of all states, while it sees these letters; it goes on with the row behind."""
         found = []
         for letter in letters:
             number = self.known[letter]
             way, self.row = self.rows[self.row][number]
-            goals = {}
-            for state, goal in self.judge.steps[number][way]:
-                goals.setdefault(state, []).append(goal)
-            found.append(goals)
+            found.append([goals[number][way] for _, goals in self.states])
         return found
 
 
@@ -148,7 +145,7 @@ def has_bad_trace(ranks, reached, steps, start):
         at, state = spots[len(goals)]
         behind = at + 1 if at + 1 < len(steps) else start
         row = []
-        for goal in steps[at].get(state, []):
+        for goal in steps[at][state]:
             spot = (behind, goal)
             if spot not in numbers:
                 numbers[spot] = len(spots)
@@ -173,10 +170,10 @@ def is_spared(wish, outsider, thing):
     sight = Sight(wish, outsider)
     reached = [0]
     for goals in sight.steps_for(ahead):
-        reached = sorted({goal for state in reached for goal in goals.get(state, [])})
+        reached = sorted({goal for state in reached for goal in goals[state]})
     steps = []
     starts = {}
     while sight.row not in starts:
         starts[sight.row] = len(steps)
         steps.extend(sight.steps_for(again))
-    return not has_bad_trace(sight.judge.ranks, reached, steps, starts[sight.row])
+    return not has_bad_trace([rank for rank, _ in wish[2]], reached, steps, starts[sight.row])

@@ -1,7 +1,7 @@
 """The game of a wish: a maker puts a letter, then a way is taken, and a history judges all traces along the road."""
 
 from allboughs.errors import TooMany
-from allboughs.histories import FIRST, lead, runners_of
+from allboughs.leading import START, Leader
 from allboughs.regions import Arena
 from allboughs.woods import MOST_NODES, least_rows, letters_of, walked
 
@@ -13,29 +13,22 @@ def is_letter(thing, known):
     return isinstance(thing, tuple) and all(isinstance(name, str) for name in thing) and thing in known
 
 
-def step_of(rows, letter, way):
-    """The step of a letter, told by its number, and a way: where traces of a wish may go."""
-    return tuple([(state, goal) for state, (_, goals) in enumerate(rows) for goal in goals[letter][way]])
-
-
-def steps_of(wish):
-    """For each letter of a wish, in order, the pair of its left and its right step."""
-    rows = wish[2]
-    return [(step_of(rows, letter, 0), step_of(rows, letter, 1)) for letter in range(1 << len(wish[1]))]
-
-
 class Judge:
-    """Leads histories of the ranks of a wish by the steps of its letters and ways."""
+    """Leads histories, as the module leading tells them, by the steps of the letters and ways of a wish."""
 
     def __init__(self, wish):
-        """Make the steps."""
+        """Make the steps, and the moves of all states."""
         self.ranks = tuple([rank for rank, _ in wish[2]])
-        self.runners = len(runners_of(self.ranks))
-        self.steps = steps_of(wish)
+        self.leader = Leader(self.ranks)
+        self.moves = []
+        for letter in range(1 << len(wish[1])):
+            left = [self.leader.move(goals[letter][0]) for _, goals in wish[2]]
+            self.moves.append((left, [self.leader.move(goals[letter][1]) for _, goals in wish[2]]))
 
     def lead_on(self, history, letter, way):
         """The history behind the step of a letter and a way, and the rank that is told."""
-        return lead(self.ranks, self.runners, history, self.steps[letter][way])
+        moves = self.moves[letter][way]
+        return self.leader.lead_on(history, [moves[state] for state in history[0]])
 
 
 class WishGame:
@@ -51,8 +44,8 @@ class WishGame:
         self.scope = wish[1]
         self.known = letters_of(wish[1])
         self.judge = Judge(wish)
-        self.histories = [FIRST]
-        self.numbers = {FIRST: 0}
+        self.histories = [START]
+        self.numbers = {START: 0}
         self.onward = []
         while len(self.onward) < len(self.histories):
             history = self.histories[len(self.onward)]
