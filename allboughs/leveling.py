@@ -206,7 +206,7 @@ class Leveling:
         self.own = [owner == side for owner, _, _ in rows]
         self.picks = {row: arena.picks[row] for row in won}
         self.counts = {row: {} for row in won}
-        self.live = {row: {goal: True for goal in rows[row][2] if goal in self.counts} for row in won}
+        self.live = {row: {onward: True for onward in rows[row][2] if onward in self.counts} for row in won}
         self.waiting = {row: len(self.live[row]) for row in won}
         self.sources = {row: [] for row in won}
         for row in won:

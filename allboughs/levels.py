@@ -4,7 +4,7 @@ from allboughs.checks import is_number, is_row
 from allboughs.drawing import check_side
 from allboughs.games import check_game, settled_game
 from allboughs.leveling import Leveling
-from allboughs.lifting import Lifting
+from allboughs.lifting import Lifting, cuts_of
 
 # So many times, on average, each row is lifted before another way is gone that takes its time, but always comes to
 # an end soon.
@@ -50,7 +50,7 @@ def are_levels(game, side, thing):
         return False
     if not all(level is None or is_level(level, bounds) for level in thing):
         return False
-    cuts = {rank: len([odd for odd in odds if odd >= rank]) for rank in sorted({rank for _, rank, _ in rows})}
+    cuts = cuts_of(rows, odds)
     for (owner, rank, goals), level in zip(rows, thing):
         if level is not None:
             fallen = [falls(level, thing[goal], cuts[rank], rank % 2 != side) for goal in goals]

@@ -4,6 +4,11 @@ On many games this is the shortest way, on others it takes longer than anybody w
 """
 
 
+def cuts_of(rows, odds):
+    """For each rank of rows behind how many numbers the levels of such a row and of a goal are cut."""
+    return {rank: len([odd for odd in odds if odd >= rank]) for rank in sorted({row[1] for row in rows})}
+
+
 def goals_first(rows, goals):
     """The rows in a sequence in which the goals of a row stand ahead of it, as far as that can be."""
     order = []
@@ -49,13 +54,13 @@ class Lifting:
         self.own = [owner == side for owner, _, _ in rows]
         self.bounds = bounds
         held = {row: True for row in won}
-        self.goals = {row: [goal for goal in rows[row][2] if goal in held] for row in won}
+        self.goals = {row: [onward for onward in rows[row][2] if onward in held] for row in won}
         self.sources = {row: [] for row in won}
         for row in won:
             for goal in self.goals[row]:
                 self.sources[goal].append(row)
         self.zeros = (0,) * len(odds)
-        cuts = {rank: len([odd for odd in odds if odd >= rank]) for rank in sorted({rank for _, rank, _ in rows})}
+        cuts = cuts_of(rows, odds)
         self.cuts = [cuts[rank] for _, rank, _ in rows]
         self.odd = [(rank + side) % 2 == 1 for _, rank, _ in rows]
         self.lifted = {row: self.zeros for row in won}
