@@ -72,35 +72,43 @@ class Growth:
             self.lone[key] = self.options_for(history, state, letter, {})
         return self.lone[key]
 
-    def is_open(self, history, letter):
+    def is_open(self, reached, letter):
         """Whether there is a guess at all; TooMany is raised if there are too many of them."""
         many = 1
-        for state in history[0]:
+        for state in reached:
             many *= len(self.halves[state][letter])
         if many > MOST_GUESSES:
             raise TooMany(MOST_GUESSES)
         return many > 0
 
-    def list_for(self, history, letter, heard, parts):
-        """The list of the letter with this number behind a history; heard keeps what steps lead to from there."""
-        if not self.is_open(history, letter):
-            return ()
+    def guesses_for(self, history, letter, parts):
+        """What all guesses behind a history do, as numbers, each of them told where it stands first."""
         guesses = [0]
         for state in history[0]:
             if history[1]:
                 options = self.options_for(history, state, letter, parts)
             else:
                 options = self.lone_options(history, state, letter)
-            guesses = list({guess | option: True for guess in guesses for option in options})
+            if guesses == [0]:
+                guesses = options
+            elif options != [0]:
+                guesses = list({guess | option: True for guess in guesses for option in options})
+        return guesses
+
+    def list_for(self, history, letter, heard, parts):
+        """The list of the letter with this number behind a history; heard keeps what steps lead to from there."""
+        if not self.is_open(history[0], letter):
+            return ()
         size = self.leader.size_of(history)
         full = (1 << size) - 1
         pairs = {}
-        for guess in guesses:
+        for guess in self.guesses_for(history, letter, parts):
             left = guess & full
             right = guess >> size
-            for step in (left, right):
-                if step not in heard:
-                    heard[step] = self.number(self.leader.behind(history, step))
+            if left not in heard:
+                heard[left] = self.number(self.leader.behind(history, left))
+            if right not in heard:
+                heard[right] = self.number(self.leader.behind(history, right))
             pairs[(heard[left], heard[right])] = True
         return tuple(sorted(pairs))
 

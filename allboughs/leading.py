@@ -44,9 +44,7 @@ class Leader:
 
     def states_in(self, mask):
         """The ascending tuple of the states of a mask."""
-        if mask not in self.known:
-            self.known[mask] = tuple([state for state in range(mask.bit_length()) if mask >> state & 1])
-        return self.known[mask]
+        return tuple([state for state in range(mask.bit_length()) if mask >> state & 1])
 
     def size_of(self, history):
         """How many bits tell what a step does to a history."""
@@ -73,12 +71,15 @@ class Leader:
     def behind(self, history, told):
         """The history behind a step and the rank that is told, by what the step does."""
         nests = history[1]
-        goals = self.states_in(told & (1 << self.states) - 1)
+        goals = told & (1 << self.states) - 1
+        if goals not in self.known:
+            self.known[goals] = self.states_in(goals)
+        goals = self.known[goals]
         told >>= self.states
+        if not nests:
+            return (goals, ((None, told),) if told else ()), 0
         full = (1 << self.field) - 1
         fresh = told & full
-        if not nests:
-            return (goals, ((None, fresh),) if fresh else ()), 0
         lots = []
         born = []
         inner = [0] * len(nests)

@@ -73,8 +73,10 @@ def press_plain(scope, rows, start):
     order, leads = met_rows(rows, start)
     ranks = [rows[state][0] for state in order]
     if max(ranks) > 0:
-        numbers = {state: number for number, state in enumerate(order)}
-        ranks = ranks_anew(ranks, [[numbers[state] for state in found] for found in leads])
+        if order != list(range(len(order))):
+            numbers = {state: number for number, state in enumerate(order)}
+            leads = [[numbers[state] for state in found] for found in leads]
+        ranks = ranks_anew(ranks, leads)
     return machine_told(scope, ranks, numbered(rows, order))
 
 

@@ -60,14 +60,27 @@ def rank_of_ring(ring, rank, below, fresh):
     return highest + (highest + rank) % 2
 
 
+def circling_in(masks):
+    """The mask of the states from which one comes back to themselves, where masks tells the goals of each."""
+    everything = (1 << len(masks)) - 1
+    told = 0
+    for state, mask in enumerate(masks):
+        if mask >> state & 1 or flood(masks, mask, everything) >> state & 1:
+            told |= 1 << state
+    return told
+
+
 def ranks_anew(ranks, goals):
     """The ranks of the states told anew, where goals tells the states to which each state has a go."""
-    fresh = [0] * len(ranks)
     known = sorted(set(ranks))
-    if len(known) == 1 and known[0] % 2 == 0:
-        return fresh
+    if len(known) == 1:
+        if known[0] % 2 == 0:
+            return [0] * len(ranks)
+        circling = circling_in([mask_of(row) for row in goals])
+        return [circling >> state & 1 for state in range(len(ranks))]
     masks = [mask_of(row) for row in goals]
     back = turned_masks(masks)
+    fresh = [0] * len(ranks)
     below = 0
     for rank in known:
         states = [at for at, other in enumerate(ranks) if other == rank]
@@ -90,13 +103,4 @@ def ranks_anew(ranks, goals):
 
 def coming_back(goals):
     """The mask of the states from which one comes back to themselves."""
-    masks = [mask_of(row) for row in goals]
-    back = turned_masks(masks)
-    everything = (1 << len(goals)) - 1
-    told = 0
-    for state, mask in enumerate(masks):
-        if not told >> state & 1:
-            ahead = flood(masks, mask, everything)
-            if ahead >> state & 1:
-                told |= ahead & flood(back, back[state], everything)
-    return told
+    return circling_in([mask_of(row) for row in goals])
