@@ -100,7 +100,7 @@ class Count:
             self.held[row] = True
         self.win(low, 0)
         self.left = {row: len([goal for goal in levels.live[row] if not self.is_low(goal)]) for row in heads}
-        ready = [row for row in heads if self.is_ready(row, len(levels.live[row]))]
+        ready = [row for row in heads if self.is_ready(row)]
         now = 0
         while ready:
             now += 1
@@ -112,11 +112,11 @@ class Count:
         """Whether a live goal has a number by now."""
         return goal not in self.held or goal in self.given
 
-    def is_ready(self, row, before):
-        """Whether a head falls to what has numbers by now; before tells of how many goals it did not ahead."""
-        if row in self.given:
-            return False
-        return self.left[row] < before if self.levels.own[row] else self.left[row] == 0
+    def is_ready(self, row):
+        """Whether a head falls to what has numbers by now."""
+        if self.levels.own[row]:
+            return self.left[row] < len(self.levels.live[row])
+        return self.left[row] == 0
 
     def ready_behind(self, rows):
         """The heads that are ready now that these rows have numbers."""
@@ -257,17 +257,13 @@ class Leveling:
             del self.blocks[row]
         fresh = {}
         for row in moved:
-            if row not in count.heads and self.is_kept(row, count.given):
-                fresh.setdefault(count.given[row], []).append(row)
+            if row not in count.heads:
+                # A row of the side has no goals with lesser numbers, or it would have a lesser one, too.
+                many = count.given[row]
+                self.live[row] = {goal: True for goal in list(self.live[row]) if count.given.get(goal, 0) == many}
+                fresh.setdefault(many, []).append(row)
         for many in sorted(fresh):
             self.begin(fresh[many])
-
-    def is_kept(self, row, told):
-        """Whether a row with a number above 0 is not done with it; its live goals are those with this number now."""
-        goals = list(self.live[row])
-        self.live[row] = {goal: True for goal in goals if told.get(goal, 0) == told[row]}
-        lesser = any(told.get(goal, 0) < told[row] for goal in goals)
-        return len(self.live[row]) > 0 and not (self.own[row] and lesser)
 
     def begin(self, rows):
         """Begin a block with these rows."""

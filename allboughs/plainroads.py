@@ -1,6 +1,6 @@
 """Plain roads formulas, and shorts, said by points formulas.
 
-All points have one name: each stands right within what binds it, and no other binder lies between them.
+A name or two are enough for all points, as what is put into a formula binds all of its own.
 """
 
 from allboughs.errors import BadPlain, BadShort

@@ -20,6 +20,10 @@ Y = ("a", "x")
 XYZ = ("x", "y", "z")
 KEPT_BY_ALL = ("wish", X, ((0, (((0,), (0,)), ((0,), (0,)))),))
 
+# That never again, from some place on, three places without x are one behind the other.
+NOT_THRICE_AGAIN = ("wish", X, (
+    (0, (((0, 1), (0, 1)), ((0,), (0,)))), (0, (((2,), (2,)), ((0,), (0,)))), (3, (((0,), (0,)), ((), ())))))
+
 
 def steps(wish):
     """The steps of the letters and ways, left ahead of right, letter by letter."""
@@ -239,6 +243,13 @@ class Hearts(Case):
                     for wood in all_woods(scope, many):
                         self.assertFalse(is_kept(one, wood) and not is_kept(other, wood))
         self.assertGreater(min(seen), 60)
+
+    def test_follows_where_no_step_does_all(self):
+        """The road goes around by a step that is good for the one wish, and by another one that is bad for the other."""
+        for one, other in ((AGAIN, NOT_THRICE_AGAIN), (both(AGAIN, NOTHING), NOT_THRICE_AGAIN), (AGAIN, both(KEPT_BY_ALL, NOT_THRICE_AGAIN))):
+            told = follows(one, other)
+            self.assertTrue(is_kept(one, told))
+            self.assertFalse(is_kept(other, told))
 
     def test_follows_of_both(self):
         chance = dice(534)

@@ -148,6 +148,13 @@ class ByHand(Case):
         self.assertEqual(len(likeness(pressed(machine))), 3)
         self.assertEqual(melted(machine), ("machine", (), ((0, (go(0, 1),)), (0, (go(1, 2),)), (0, (go(0, 2),)))))
 
+    def test_turns_until_one_leaves_all_states(self):
+        """The first turn leaves four states, the second one two, the third one a single state."""
+        machine = ("machine", (), (
+            (3, (go(0, 1),)), (2, (("either", go(0, 1), ("both", go(0, 2), go(1, 0))),)), (1, (go(0, 4),)),
+            (1, (("either", go(0, 0), ("either", go(0, 3), go(0, 4))),)), (1, (go(0, 1),))))
+        self.assertEqual(melted(machine), ("machine", (), ((0, (go(0, 0),)),)))
+
 
 class Hearts(Case):
     def test_just_one_coarsest(self):

@@ -9,6 +9,7 @@ from allboughs.machines import is_machine, pressed
 from allboughs.playing import lets_by
 from allboughs.pointing import machine_of_points, points_of
 from allboughs.points import denied, is_points, marks_of, nodes_of, unrolled
+from allboughs.unfolding import Unfolding
 from tests.judging import wrong_parts
 from tests.meanings import all_woods
 from tests.pointlots import depth, nodes_by_rounds, parts, some_points
@@ -266,6 +267,20 @@ class Limits(Case):
         if is_points(points):
             self.assertIn(told_or_most(machine_of_points, points), (30, 400, 1600))
         self.assertLess(time.time() - start, 5)
+
+    def test_the_size_of_what_is_unfolded(self):
+        """Nodes and depths are counted as the formula grows, so that no formula is told that is none."""
+        chance = dice(588)
+        large = 0
+        for _ in range(120):
+            machine = pressed(some_machine(chance, chance.choice(((), ("x",), ("x", "y"))), chance.randint(1, 4), 4, chance.choice((2, 3))))
+            grown = Unfolding(machine[1], machine[2]).of_state(0, ())
+            if grown.nodes <= 4000:
+                large += grown.nodes > 500
+                self.assertEqual(grown.nodes, len(parts(grown.formula)))
+                self.assertEqual(grown.deep, depth(grown.formula))
+                self.assertEqual(grown.open_states, ())
+        self.assertGreater(large, 3)
 
     def test_four_states(self):
         five = ("machine", (), tuple((0, (go(0, (at + 1) % 5),)) for at in range(5)))

@@ -177,6 +177,12 @@ class Limits(Case):
                 self.assertEqual(len(parts(unrolled(points))), nodes)
             else:
                 self.many(4000, unrolled, points)
+        # What is bound anew is not what goes into its points.
+        inner = ("least", "z", ("both", ("both", point(), point()), wide(801)))
+        points = ("most", "z", ("both", point(), ("both", inner, wide(801))))
+        whole = len(parts(points))
+        self.assertEqual(len(parts(unrolled(points))), 2 * whole - 2)
+        self.assertGreater(2 * whole - 2 + 2 * (whole - 1), 4000)
         for many, fine in ((28, True), (29, False)):
             points = ("most", "z", nexts(many, ("both", ("yes",), ("point", "z"))))
             self.assertIs(2 * many + 3 <= 60, fine)

@@ -56,6 +56,20 @@ def flat_roads(chance, many):
             return told
 
 
+def nested_telling(chance, nodes, deep):
+    """A telling of about so many nodes, full of ways and of heres in which roads stand, so many deep."""
+    if nodes <= 2:
+        inner = chance.choice((MX, MY, ("goes", 0), ("goes", 1)))
+        if deep and chance.random() < 0.5:
+            return ("here", (chance.choice(("some", "every")), nested_telling(chance, chance.randint(1, 4), deep - 1)))
+        return inner
+    word = chance.choice(("both", "either", "both", "either", "not", "next", "until", "once", "ever"))
+    if word in ("not", "next", "once", "ever"):
+        return (word, nested_telling(chance, nodes - 1, deep))
+    half = chance.randint(1, nodes - 2)
+    return (word, nested_telling(chance, half, deep), nested_telling(chance, nodes - 1 - half, deep))
+
+
 class ByHand(Case):
     def test_by_hand(self):
         told = machine_of_roads(roads=ALL)
@@ -109,6 +123,38 @@ class Hearts(Case):
             if len(wood[2]) < 3 and len(parts(roads)) < 9:
                 self.assertIs(0 in nodes_by_roads(roads, wood, 5), fine)
         self.assertGreater(min(seen), 300)
+
+    def test_roads_within_roads(self):
+        chance = dice(627)
+        seen = [0, 0]
+        for _ in range(2000):
+            roads = (chance.choice(("some", "every")), nested_telling(chance, chance.randint(3, 9), chance.randint(1, 2)))
+            if is_roads(roads) and any(part[0] == "here" and part[1][0] in ("some", "every") for part in parts(roads)):
+                told = machine_of_roads(roads)
+                for _ in range(3):
+                    wood = some_wood_of(chance, told[1], chance.randint(1, 4))
+                    fine = 0 in nodes_of_roads(roads, wood)
+                    seen[fine] += 1
+                    self.assertIs(lets_by(told, wood), fine, (roads, wood))
+        self.assertGreater(min(seen), 700)
+
+    def test_ways_and_promises_beside_roads(self):
+        """What asks nothing of the road is told apart from what does, in each sequence."""
+        free = ("here", ("some", ("next", MX)))
+        other = ("here", ("every", ("once", MY)))
+        chance = dice(628)
+        for bound in (("goes", 0), ("goes", 1), ("next", MX), ("once", MY), ("ever", MX), ("until", ("goes", 0), MY)):
+            for joint, word in (("both", "either"), ("either", "both")):
+                for telling in (
+                    (joint, free, bound), (joint, bound, free), (word, (joint, bound, free), other), (word, other, (joint, free, bound)),
+                    (joint, (word, bound, other), (word, free, ("not", bound))), (joint, ("not", bound), (joint, free, (word, bound, other))),
+                ):
+                    for quantifier in ("some", "every"):
+                        roads = (quantifier, telling)
+                        told = machine_of_roads(roads)
+                        for _ in range(6):
+                            wood = some_wood_of(chance, told[1], chance.randint(1, 4))
+                            self.assertIs(lets_by(told, wood), 0 in nodes_of_roads(roads, wood), (roads, wood))
 
     def test_plain_ones_are_points_as_well(self):
         chance = dice(621)

@@ -210,6 +210,17 @@ class Limits(Case):
         self.fails(BadRanks, bad_trace, (0,) * 25, (), (A,))
         self.fails(BadRanks, measure, (62,), (), (A,))
 
+    def test_the_greatest_numbers(self):
+        """A trace stays in each state for twelve steps, then goes on to the next one: all ranks are 1, and it ends."""
+        ranks = (1,) * 24
+        again = (tuple((q, q) for q in range(24)),) * 11 + (tuple((q, q + 1) for q in range(23)),)
+        self.assertIsNone(bad_trace(ranks, (), again))
+        told = measure(ranks, (), again)
+        self.assertEqual(len(told), 12 * 24)
+        self.assertTrue(is_measure(ranks, (), again, told))
+        self.assertTrue(is_measure(ranks, (), again, {spot: (number + 113,) for spot, (number,) in told.items()}))
+        self.assertFalse(is_measure(ranks, (), again, {spot: (number + 114,) for spot, (number,) in told.items()}))
+
     def test_soon(self):
         start = time.time()
         ranks = (60,) + tuple(59 - 2 * (at % 12) for at in range(23))
