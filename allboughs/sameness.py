@@ -4,9 +4,10 @@ from allboughs.building import combined, contrary_of, widened_to
 from allboughs.checks import is_row
 from allboughs.chosen import chosen_of
 from allboughs.compiling import build_machine
-from allboughs.deciding import means, scope_of_both
+from allboughs.deciding import scope_of_both
 from allboughs.emptying import bar, is_bar, wood_in
 from allboughs.formulas import check_no_long
+from allboughs.playing import lets_marks_by
 from allboughs.woods import is_wood
 
 
@@ -28,10 +29,15 @@ def machines_of(one, other):
     return widened_to(build_machine(one), scope), widened_to(build_machine(other), scope)
 
 
+def odds_both_ways(machines):
+    """The odds of the one and the other of two machines, and those of the other and the one."""
+    mine, theirs = machines
+    return odds_of(mine, theirs), odds_of(theirs, mine)
+
+
 def both_odds(one, other):
     """The odds of the one and the other formula, and those of the other and the one."""
-    mine, theirs = machines_of(one, other)
-    return odds_of(mine, theirs), odds_of(theirs, mine)
+    return odds_both_ways(machines_of(one, other))
 
 
 def odds(one, other):
@@ -52,13 +58,14 @@ def sameness(one, other):
 
 def is_sameness(one, other, thing):
     """Whether a value of any kind is what sameness may tell."""
-    mine, theirs = both_odds(one, other)
+    machines = machines_of(one, other)
+    mine, theirs = odds_both_ways(machines)
     if is_row(thing, 3, 3) and isinstance(thing[0], str) and thing[0] == "same":
         return is_bar(mine, thing[1]) and is_bar(theirs, thing[2])
     if not is_row(thing, 2, 2) or not isinstance(thing[0], str) or thing[0] != "parted" or not is_wood(thing[1]):
         return False
     wood = thing[1]
-    return wood[1] == mine[1] and means(one, wood) != means(other, wood)
+    return wood[1] == mine[1] and lets_marks_by(machines[0], wood) != lets_marks_by(machines[1], wood)
 
 
 def nodes_told(one, other):

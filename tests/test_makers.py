@@ -7,7 +7,9 @@ from allboughs.errors import BadLetters, BadMost, BadWish, OtherScope, TooMany
 from allboughs.histories import first, led
 from allboughs.makers import allowed, begun, follows, least_maker, settled
 from allboughs.outsiders import breaks, is_outsider
+from allboughs.pairgames import Pursuit
 from allboughs.wishes import both, keeps
+from allboughs.wishgames import WishGame
 from allboughs.woods import is_wood
 from tests.makings import (
     AGAIN, FORESEEING, NEVER, NOTHING, PLACES, X, is_kept, letters_at, some_wish,
@@ -23,6 +25,31 @@ KEPT_BY_ALL = ("wish", X, ((0, (((0,), (0,)), ((0,), (0,)))),))
 # That never again, from some place on, three places without x are one behind the other.
 NOT_THRICE_AGAIN = ("wish", X, (
     (0, (((0, 1), (0, 1)), ((0,), (0,)))), (0, (((2,), (2,)), ((0,), (0,)))), (3, (((0,), (0,)), ((), ())))))
+
+# Pairs of wishes for which no step, of a history and a state, tells both ranks that make a road one of both kinds.
+APART = (
+    (("wish", X, (
+        (2, (((2,), (2,)), ((), ()))), (4, (((2, 3), (1, 3)), ((), (2, 3)))), (0, (((2,), ()), ((0, 3), ()))),
+        (3, (((0, 2), ()), ((0,), (2,)))))),
+     ("wish", X, (
+         (1, (((2, 3), (1, 2)), ((2,), (2,)))), (4, (((0, 1), (2, 3)), ((), (0, 2)))), (3, (((1,), (0, 1)), ((), (0, 1, 3)))),
+         (3, (((2,), (1, 3)), ((2,), (2,))))))),
+    (("wish", X, ((4, (((), ()), ((2,), (1,)))), (1, (((0, 2), (2,)), ((0, 1), (1,)))), (2, (((2,), ()), ((), ()))))),
+     ("wish", X, (
+         (3, (((1, 3), (1, 3)), ((), (3,)))), (1, (((), (0, 1, 3)), ((1,), (0, 3)))), (4, (((), (0, 3)), ((0,), (2,)))),
+         (0, (((), (0, 1, 2)), ((1, 2, 3), (0, 3))))))),
+    (("wish", X, (
+        (4, (((), (0, 2)), ((1, 2), ()))), (0, (((2,), (1, 2)), ((0, 3), (0, 1, 2)))), (0, (((0, 1, 2, 3), (0, 3)), ((3,), (0, 1, 3)))),
+        (1, (((), ()), ((), (0, 1, 2)))))),
+     ("wish", X, (
+         (4, (((), (0, 1)), ((0,), ()))), (1, (((2,), (0,)), ((1, 2), (3,)))), (0, (((), (2,)), ((3,), (0, 1)))),
+         (3, (((), (0, 3)), ((), ())))))),
+    (AGAIN, NOT_THRICE_AGAIN), (both(AGAIN, NOTHING), NOT_THRICE_AGAIN),
+    # That never again nothing is bare: the one road that goes around by a step of its own is no good for the one wish.
+    (AGAIN, ("wish", X, ((3, (((0,), (0,)), ((1,), (1,)))), (0, (((0,), (0,)), ((1,), (1,))))))),
+    (("wish", X, ((1, (((0,), (0,)), ((1,), (1,)))), (2, (((0,), (0,)), ((1,), (1,)))))),
+     ("wish", X, ((0, (((1,), (1,)), ((0,), (0,)))), (3, (((1,), (1,)), ((0,), (0,))))))),
+)
 
 
 def steps(wish):
@@ -246,10 +273,16 @@ class Hearts(Case):
 
     def test_follows_where_no_step_does_all(self):
         """The road goes around by a step that is good for the one wish, and by another one that is bad for the other."""
-        for one, other in ((AGAIN, NOT_THRICE_AGAIN), (both(AGAIN, NOTHING), NOT_THRICE_AGAIN), (AGAIN, both(KEPT_BY_ALL, NOT_THRICE_AGAIN))):
+        for one, other in APART:
             told = follows(one, other)
             self.assertTrue(is_kept(one, told))
             self.assertFalse(is_kept(other, told))
+            game = WishGame(one)
+            lead, loop = Pursuit(game, other[2]).found_road()
+            stands = [history for history, _, _ in lead + loop + loop[:1]]
+            behind = [game.onward[history][letter][way] for history, letter, way in lead + loop]
+            self.assertEqual(stands[1:], [history for history, _ in behind])
+            self.assertEqual(max(rank for _, rank in behind[len(lead):]) % 2, 0)
 
     def test_follows_of_both(self):
         chance = dice(534)

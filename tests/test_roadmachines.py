@@ -2,14 +2,17 @@
 
 import time
 
+from allboughs.conditions import goals
 from allboughs.errors import BadRoads
 from allboughs.machines import is_machine, pressed
 from allboughs.plainroads import as_points
 from allboughs.playing import lets_by
 from allboughs.pointing import machine_of_points
 from allboughs.roadmachines import machine_of_roads
+from allboughs.roadconditions import AtLetter
+from allboughs.roadparts import Roads
 from allboughs.roads import is_roads, nodes_of_roads
-from tests.pointlots import nodes_by_roads, parts, some_plain_saying, some_saying
+from tests.pointlots import depth, nodes_by_roads, parts, some_plain_saying, some_saying
 from tests.support import Case, dice, junk_but, some_wood_of
 from tests.test_compiling import told_or_most
 from tests.test_roads import ALL, MX, MY, W, joined, nots
@@ -103,6 +106,21 @@ class ByHand(Case):
             self.assertIs(lets_by(machine_of_roads(roads), ("wood", names_in(roads), tuple(
                 (tuple(name for name in letter if name in names_in(roads)), left, right) for letter, left, right in wood[2]))), fine, roads)
 
+    def test_what_is_owed_in_turn(self):
+        """Something is owed at each place, but all of it is paid again and again; or one part of it is not."""
+        turns = ("wood", ("x", "y"), ((("x",), 1, 1), (("y",), 2, 2), ((), 0, 0)))
+        stays = ("wood", ("x", "y"), ((("x",), 1, 1), (("y",), 2, 2), (("x",), 2, 2)))
+        for first, second in ((MX, MY), (MY, MX)):
+            for lasting in (
+                ("ever", ("both", ("once", first), ("once", second))), ("ever", ("both", ("once", first), ("until", ("either", first, ("not", first)), second))),
+                ("not", ("once", ("either", ("ever", ("not", first)), ("not", ("once", second))))),
+            ):
+                for quantifier in ("some", "every"):
+                    for fine, roads in ((True, (quantifier, lasting)), (False, (quantifier, ("not", lasting)))):
+                        self.assertIs(lets_by(machine_of_roads(roads), turns), fine, roads)
+                        self.assertIs(0 in nodes_of_roads(roads, turns), fine, roads)
+                        self.assertIs(lets_by(machine_of_roads(roads), stays), not fine, roads)
+
 
 class Hearts(Case):
     def test_against_where_they_hold(self):
@@ -166,6 +184,25 @@ class Hearts(Case):
                 for _ in range(3):
                     wood = some_wood_of(chance, one[1], chance.randint(1, 4))
                     self.assertIs(lets_by(one, wood), lets_by(other, wood))
+
+
+class Sizes(Case):
+    def test_nodes_and_depths_are_counted(self):
+        """What is told of a condition's size is what TooMany is raised by."""
+        chance = dice(629)
+        met = 0
+        for _ in range(2500):
+            roads = some_saying(chance, chance.randint(4, 14))
+            if is_roads(roads):
+                for letter in ((), ("x",), ("x", "y")):
+                    teller = AtLetter(Roads(roads), letter)
+                    todo = [0]
+                    for number in todo:
+                        condition, nodes, deep = teller.of_state(number)
+                        self.assertEqual((nodes, deep), (len(parts(condition)), depth(condition)))
+                        met += nodes > 3
+                        todo.extend(goal for goal in sorted({goal for _, goal in goals(condition)}) if goal not in todo)
+        self.assertGreater(met, 1000)
 
 
 class NoTooMany(Case):
