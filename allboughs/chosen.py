@@ -17,7 +17,8 @@ class Growth:
     """The states of the choices as they are met: pairs of a history and a rank, with numbers.
 
     halves has for each state of the machine and each letter a pair for each model: the numbers of the moves that it
-    brings to the left and to the right step. moves has what these numbers stand for.
+    brings to the left and to the right step. moves has what these numbers stand for. widest is the length of the
+    longest list.
     """
 
     def __init__(self, ranks, rows):
@@ -29,6 +30,7 @@ class Growth:
         self.halves = [[[self.half(model) for model in models] for models in row] for row in rows]
         self.states = [(START, 0)]
         self.met = {(START, 0): 0}
+        self.widest = 0
 
     def half(self, model):
         """The numbers of the moves of a model, left and right."""
@@ -57,12 +59,14 @@ class Growth:
         parts keeps what the moves of the state do. Guesses that do the same are told once, where the first one stands.
         """
         size = self.leader.size_of(history)
+        known = parts.setdefault(state, {})
         told = {}
         for left, right in self.halves[state][letter]:
-            for at in (left, right):
-                if (state, at) not in parts:
-                    parts[(state, at)] = self.leader.part_of(history, state, self.moves[at])
-            told[parts[(state, left)] | parts[(state, right)] << size] = True
+            if left not in known:
+                known[left] = self.leader.part_of(history, state, self.moves[left])
+            if right not in known:
+                known[right] = self.leader.part_of(history, state, self.moves[right])
+            told[known[left] | known[right] << size] = True
         return list(told)
 
     def lone_options(self, history, state, letter):
@@ -110,6 +114,7 @@ class Growth:
             if right not in heard:
                 heard[right] = self.number(self.leader.behind(history, right))
             pairs[(heard[left], heard[right])] = True
+        self.widest = max(self.widest, len(pairs))
         return tuple(sorted(pairs))
 
     def lists_behind(self, history):
@@ -139,8 +144,9 @@ def chosen_of(machine):
     if max(ranks) > MOST_RANK:
         raise TooMany(MOST_RANK)
     rows, places = folded(rows)
-    told = Growth(ranks, [[models_of(condition) for condition in conditions] for _, conditions in rows]).grown()
-    if any(len(pairs) > MOST_PAIRS for _, lists in told for pairs in lists):
+    growth = Growth(ranks, [[models_of(condition) for condition in conditions] for _, conditions in rows])
+    told = growth.grown()
+    if growth.widest > MOST_PAIRS:
         raise TooMany(MOST_PAIRS)
     return ("choices", scope, tuple(unfolded(tidy(scope, told)[2], places)))
 

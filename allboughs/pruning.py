@@ -96,6 +96,9 @@ def pruned_of(choices):
     picked = picked_pairs(ranks_of(choices), options_of(choices))
     if picked[0] is None:
         return ("choices", choices[1], ((0, ((),) * (1 << len(choices[1]))),))
+    if len(choices[2]) == 1:
+        # It comes back to itself by all its pairs, and its rank is even.
+        return ("choices", choices[1], ((0, choices[2][0][1]),))
     # What is done next leaves it as it is from which states a wood is let by, so this is asked but once.
     rows, places = folded(useful_pairs(choices, picked))
     # Merged again what is merged stays, as long as no rank changes: the same states cover one another then.
