@@ -5,8 +5,15 @@ that comes again and again tells who wins. Both sides win by fixed picks.
 """
 
 from allboughs.circles import Walk
+from allboughs.promoting import Promoting
 
 SETTLED = -1
+
+# Games with more rows and ranks than these are settled by putting regions together first, but no longer than it takes
+# to look at each row so many times.
+FEW_ROWS = 200
+FEW_RANKS = 10
+PATIENCE = 500
 
 
 class Arena:
@@ -25,9 +32,15 @@ class Arena:
         for row, leads in enumerate(goals):
             for goal in leads:
                 self.sources[goal].append(row)
+        if len(goals) > FEW_ROWS and len(set(ranks)) > FEW_RANKS:
+            promoting = Promoting(sides, ranks, goals, self.sources)
+            if promoting.settle(PATIENCE * len(goals)):
+                self.winners = promoting.winners
+                self.picks = promoting.picks
+                return
         self.depths = [0] * len(goals)
         self.winners = [0] * len(goals)
-        self.picks = [goal[0] for goal in goals]
+        self.picks = [leads[0] for leads in goals]
         self.settle(list(range(len(goals))), 0)
 
     def drawn_in(self, side, aims, depth):
