@@ -10,10 +10,11 @@ from allboughs.promoting import Promoting
 SETTLED = -1
 
 # Games with more rows and ranks than these are settled by putting regions together first, but no longer than it takes
-# to look at each row so many times.
+# to look at each row so many times, and at so many rows at all.
 FEW_ROWS = 200
 FEW_RANKS = 10
 PATIENCE = 500
+MOST_LOOKS = 10000000
 
 
 class Arena:
@@ -32,16 +33,22 @@ class Arena:
         for row, leads in enumerate(goals):
             for goal in leads:
                 self.sources[goal].append(row)
-        if len(goals) > FEW_ROWS and len(set(ranks)) > FEW_RANKS:
-            promoting = Promoting(sides, ranks, goals, self.sources)
-            if promoting.settle(PATIENCE * len(goals)):
-                self.winners = promoting.winners
-                self.picks = promoting.picks
-                return
         self.depths = [0] * len(goals)
         self.winners = [0] * len(goals)
         self.picks = [leads[0] for leads in goals]
-        self.settle(list(range(len(goals))), 0)
+        if not self.is_soon_settled():
+            self.settle(list(range(len(goals))), 0)
+
+    def is_soon_settled(self):
+        """Settle a large game by putting regions together; told is whether that did not take too long."""
+        if len(self.goals) <= FEW_ROWS or len(set(self.ranks)) <= FEW_RANKS:
+            return False
+        promoting = Promoting(self.sides, self.ranks, self.goals, self.sources)
+        if not promoting.settle(min(PATIENCE * len(self.goals), MOST_LOOKS)):
+            return False
+        self.winners = promoting.winners
+        self.picks = promoting.picks
+        return True
 
     def drawn_in(self, side, aims, depth):
         """The rows of this depth from which the side can come to the aims, the aims among them.
