@@ -13,7 +13,7 @@ PATIENCE = 8
 
 def odds_of(rows, side):
     """The ranks of rows that a side does not like, the greater ones first."""
-    return sorted({rank for _, rank, _ in rows if rank % 2 != side}, reverse=True)
+    return sorted({rank for _, rank, _ in rows if rank % 2 != side})[::-1]
 
 
 def bounds_of(rows, odds):
