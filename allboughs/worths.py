@@ -29,7 +29,8 @@ class Worths:
         self.rows = rows
         self.ranks = [0] * len(rows)
         self.picks = [0] * len(rows)
-        todo = [(list(range(len(rows))), sorted({rank for _, rank, _ in rows}, key=worth_of))]
+        ranks = sorted({rank for _, rank, _ in rows})
+        todo = [(list(range(len(rows))), sorted(ranks, key=worth_of))]
         while todo:
             part, known = todo.pop()
             half = len(known) // 2

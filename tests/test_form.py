@@ -76,6 +76,37 @@ def top_names(tree):
     return names
 
 
+def makes_set(node):
+    """Whether a node of a tree makes a set: a set literal, a set comprehension, a call of set."""
+    if isinstance(node, ast.Call) and isinstance(node.func, ast.Name):
+        return node.func.id in ("set", "frozenset")
+    return isinstance(node, (ast.Set, ast.SetComp))
+
+
+def fits_set(node, around):
+    """Whether a set may stand so: alone in sorted or len, without keywords, behind in, or beside == of another one."""
+    if isinstance(around, ast.Call) and isinstance(around.func, ast.Name) and around.func.id in ("sorted", "len"):
+        return around.args == [node] and not around.keywords
+    if not isinstance(around, ast.Compare) or len(around.ops) != 1:
+        return False
+    if isinstance(around.ops[0], (ast.In, ast.NotIn)):
+        return around.comparators[0] is node
+    both = makes_set(around.left) and makes_set(around.comparators[0])
+    return both and isinstance(around.ops[0], (ast.Eq, ast.NotEq))
+
+
+def misplaced_sets(tree):
+    """The rows with a set in a place that L24 does not name. The package keeps no sets, though L24 would let it."""
+    above = parents(tree)
+    rows = []
+    for node in ast.walk(tree):
+        if makes_set(node) and not fits_set(node, above[node]):
+            rows.append(node.lineno)
+        if isinstance(node, ast.Call) and isinstance(node.func, ast.Name) and node.func.id == "set" and any(map(makes_set, node.args)):
+            rows.append(node.lineno)
+    return sorted(set(rows))
+
+
 class Form(unittest.TestCase):
     def test_the_judge_of_methods_that_are_handed_on(self):
         """A method as a value is found, a method that is called or a key is not."""
@@ -147,18 +178,25 @@ class Form(unittest.TestCase):
                     fine = fine or isinstance(around, ast.Call) and isinstance(around.func, ast.Name) and around.func.id in TAKERS
                     self.assertTrue(fine, (name, node.lineno))
 
+    def test_the_judge_of_sets(self):
+        """Only the places that L24 names are taken: no keyword of sorted, no set that is kept, iterated, passed on."""
+        fine = (
+            "sorted(set(xs))", "sorted({x for x in xs})", "len({x for x in xs}) == 1", "len(set(xs)) < 2", "y in {1, y}", "y not in set(xs)",
+            "set(xs) == {x for x in ys}", "set(xs) != set(ys)", "sorted({x for x in xs})[::-1]", "sorted(xs, reverse=True)")
+        wrong = (
+            "sorted({x for x in xs}, reverse=True)", "sorted(set(xs), key=len)", "sorted({x for x in xs}, key=lambda x: x)", "list(set(xs))",
+            "max({x for x in xs})", "[x for x in set(xs)]", "{x for x in xs}", "tuple({x for x in xs})", "set(xs) == ys", "sum(set(xs))",
+            "set(xs) in ys", "[set(xs)]", "f(set(xs))", "sorted(set({x for x in xs}))", "sorted(set(set(xs)))", "len(xs, set(xs))",
+            "sorted(set(xs) | set(ys))", "frozenset(xs)", "set(xs) < set(ys)", "x == {1} == y")
+        for text in fine:
+            self.assertEqual(misplaced_sets(ast.parse(text)), [], text)
+        for text in wrong:
+            self.assertEqual(misplaced_sets(ast.parse(text)), [1], text)
+        self.assertEqual(misplaced_sets(ast.parse("a = 0\nfor x in {1, 2}:\n    pass\nseen = set()\n")), [2, 4])
+
     def test_sets(self):
-        """A set stands behind in, beside another one, in sorted or len, or is stored in a plain name."""
         for name, tree in trees():
-            above = parents(tree)
-            for node in ast.walk(tree):
-                made = isinstance(node, (ast.Set, ast.SetComp)) or (
-                    isinstance(node, ast.Call) and isinstance(node.func, ast.Name) and node.func.id == "set")
-                if made:
-                    around = above[node]
-                    fine = isinstance(around, ast.Call) and isinstance(around.func, ast.Name) and around.func.id in ("sorted", "len")
-                    fine = fine or isinstance(around, (ast.Compare, ast.BinOp))
-                    self.assertTrue(fine or isinstance(around, ast.Assign), (name, node.lineno))
+            self.assertEqual(misplaced_sets(tree), [], name)
 
     def test_characters(self):
         for path in sorted(FOLDER.glob("*.py")):
