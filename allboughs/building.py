@@ -1,107 +1,137 @@
 """Machines made of machines: the contrary one, both, either, of a wider scope, turned, begun elsewhere."""
 
+from allboughs.briefs import flipped_brief, goes_in, moved_brief, whole
 from allboughs.checks import is_number
-from allboughs.conditions import MOST_DEEP, MOST_NODES, MOST_STATES, is_joint, moved, plainly_joined, size_and_depth
-from allboughs.conditions import turned_over
+from allboughs.conditions import MOST_DEEP, MOST_NODES, MOST_STATES, depth_of, is_joint, plainly_joined
+from allboughs.drafts import MachineDraft, machine_ranks, refolded, unlike, used_things, walk
 from allboughs.errors import BadScope, BadState, OtherScope, TooMany
-from allboughs.folding import folded, unfolded
-from allboughs.machines import RANKS, check_machine, plain_rows, press, press_plain, press_ranked
+from allboughs.machines import RANKS, check_machine, drafted, plain_rows, press, told_machine
 from allboughs.woods import is_scope
 
 
-def plain_machine(machine):
-    """The machine with its conditions made plain."""
-    return ("machine", machine[1], plain_rows(machine[2]))
-
-
-def contrary_of(machine):
-    """The contrary of what is known to be a machine, whose conditions are plain."""
-    rows, places = folded(machine[2])
-    rows = [(rank + 1, tuple([turned_over(condition) for condition in conditions])) for rank, conditions in rows]
-    told = press_plain(machine[1], unfolded(rows, places), 0)
-    if max([rank for rank, _ in told[2]]) >= RANKS:
+def contrary_draft(draft):
+    """The draft of the contrary machine, told that of a machine all of whose states can be come to."""
+    ranks = machine_ranks([rank + 1 for rank in draft.ranks], draft.columns, draft.conditions)
+    if max(ranks) >= RANKS:
         raise TooMany(RANKS - 1)
-    return told
+    conditions = [flipped_brief(condition) for condition in draft.conditions]
+    return MachineDraft(draft.scope, ranks, draft.places, draft.columns, conditions)
+
+
+def reached_draft(machine):
+    """The draft of what is known to be a machine, with plain conditions and the states that can be come to."""
+    return drafted(machine[1], plain_rows(machine[2]), 0)
 
 
 def contrary(machine):
     """The machine that lets by just the woods that this one does not let by."""
     check_machine(machine)
-    return contrary_of(plain_machine(machine))
+    return told_machine(contrary_draft(reached_draft(machine)))
 
 
-def check_size(rows):
-    """Raise TooMany for the states of what would be a machine if it were not too large; just the first one is new."""
-    if len(rows) > MOST_STATES:
+def check_size(states, conditions, goes):
+    """Raise TooMany for so many states, or if one of these conditions, which join parts that are not, is too large.
+
+    As they are plain each of their ends is a go, and goes tells these.
+    """
+    if states > MOST_STATES:
         raise TooMany(MOST_STATES)
-    sizes = [size_and_depth(condition) for condition in rows[0][1]]
-    if max([nodes for nodes, _ in sizes]) > MOST_NODES:
-        raise TooMany(MOST_NODES)
-    if max([deep for _, deep in sizes]) > MOST_DEEP:
-        raise TooMany(MOST_DEEP)
+    for goals in goes:
+        if 2 * len(goals) - 1 > MOST_NODES:
+            raise TooMany(MOST_NODES)
+    for condition, goals in zip(conditions, goes):
+        # With few goes it cannot be too deep.
+        if len(goals) > MOST_DEEP and depth_of(whole(condition)) > MOST_DEEP:
+            raise TooMany(MOST_DEEP)
 
 
-def joint_rows(word, one, other):
-    """The states of a machine that begins with what two machines begin with, joined by a word; and folds of letters.
+def side_by_side(one, other):
+    """The places and columns of a draft with the conditions of one machine and, with numbers behind these, of other."""
+    pairs, places = unlike(list(zip(one.places, other.places)))
+    shift = len(one.conditions)
+    theirs = [[shift + number for number in column] for column in other.columns]
+    return places, [one.columns[mine] + theirs[their] for mine, their in pairs]
 
-    Behind a new first state stand those of one, then those of other. All their conditions are plain.
+
+def joint_number(word, mine, their, conditions, goes):
+    """The number of two conditions joined by a word and made plain, which is put behind all others if it is new."""
+    told = plainly_joined(word, conditions[mine], conditions[their])
+    if len(conditions[mine]) > 1 and len(conditions[their]) > 1:
+        conditions.append(told)
+        goes.append(goes[mine] + goes[their])
+        return len(conditions) - 1
+    return mine if told == conditions[mine] else their
+
+
+def joint_draft(word, one, other):
+    """The draft of what two machines of one scope tell, joined by a word; their ranks stay.
+
+    Behind a new first state stand, as they are met, the states of both; no ring has the first one.
     """
-    many = len(one[2])
-    rows, places = folded([*one[2], *other[2]])
-    shifts = [list(range(1, 1 + many)), list(range(1 + many, 1 + len(rows)))]
-    rows = [(rank, [moved(part, shifts[at >= many]) for part in row]) for at, (rank, row) in enumerate(rows)]
-    joint = [plainly_joined(word, mine, theirs) for mine, theirs in zip(rows[0][1], rows[many][1])]
-    return [(0, joint), *rows], places
+    many = len(one.ranks)
+    places, columns = side_by_side(one, other)
+    conditions = one.conditions + other.conditions
+    old = len(conditions)
+    goes = goes_in(one.conditions, 0) + goes_in(other.conditions, many)
+    kinds, firsts = unlike([(column[0], column[many]) for column in columns])
+    begun = []
+    for mine, their in kinds:
+        if len(plainly_joined(word, conditions[mine], conditions[their])) > 1:
+            begun.extend(goes[mine])
+            begun.extend(goes[their])
+    order = walk(columns, goes, many + len(other.ranks), begun)
+    numbers = [0] * (many + len(other.ranks))
+    for at, state in enumerate(order):
+        numbers[state] = at + 1
+    theirs = numbers[many:]
+    conditions = [moved_brief(condition, numbers) for condition in one.conditions]
+    conditions.extend([moved_brief(condition, theirs) for condition in other.conditions])
+    begun = [joint_number(word, mine, their, conditions, goes) for mine, their in kinds]
+    check_size(1 + len(order), conditions[old:], goes[old:])
+    columns = [[begun[first]] + [column[state] for state in order] for first, column in zip(firsts, columns)]
+    used, columns = used_things(columns)
+    places, columns = refolded(places, columns)
+    ranks = one.ranks + other.ranks
+    ranks = [0] + [ranks[state] for state in order]
+    return MachineDraft(one.scope, ranks, places, columns, [conditions[at] for at in used])
 
 
-def sized(scope, rows, places):
-    """The machine of these states, if it is not too large."""
-    check_size(rows)
-    return ("machine", scope, tuple(unfolded(rows, places)))
-
-
-def combined(word, one, other):
-    """What is known to be two machines of one scope, joined by a word; their ranks are told anew already.
-
-    No ring has the new first state, so all of them stay.
-    """
-    rows, places = joint_rows(word, one, other)
-    return sized(one[1], press_ranked(one[1], rows)[2], places)
-
-
-def combined_plain(word, one, other):
-    """What is known to be two machines of one scope with plain conditions, joined by a word."""
-    rows, places = joint_rows(word, one, other)
-    return sized(one[1], press_plain(one[1], rows, 0)[2], places)
-
-
-def combined_anew(word, one, other):
+def joined_anew(word, one, other):
     """Two machines of one scope joined by a word."""
     check_machine(one)
     check_machine(other)
     if one[1] != other[1]:
         raise OtherScope("machines of unlike scopes")
-    return combined_plain(word, plain_machine(one), plain_machine(other))
+    draft = joint_draft(word, reached_draft(one), reached_draft(other))
+    draft.ranks = machine_ranks(draft.ranks, draft.columns, draft.conditions)
+    return told_machine(draft)
 
 
 def meeting(one, other):
     """The machine that lets by just the woods that both let by."""
-    return combined_anew("both", one, other)
+    return joined_anew("both", one, other)
 
 
 def joining(one, other):
     """The machine that lets by just the woods that one of them lets by, or both do."""
-    return combined_anew("either", one, other)
+    return joined_anew("either", one, other)
 
 
-def widened_to(machine, scope):
-    """What is known to be a machine, of a wider scope that does not look at the names that are new."""
-    old = machine[1]
+def wider_places(places, old, scope):
+    """The places of the letters of a wider scope, told those of the old one: each is that of the names it had."""
     if old == scope:
-        return machine
-    bits = [scope.index(name) for name in old]
-    places = [sum([(number >> bit & 1) << at for at, bit in enumerate(bits)]) for number in range(1 << len(scope))]
-    return ("machine", scope, tuple([(rank, tuple([row[place] for place in places])) for rank, row in machine[2]]))
+        return places
+    numbers = [0]
+    for name in scope:
+        bit = 1 << old.index(name) if name in old else 0
+        numbers = numbers + [number | bit for number in numbers]
+    return [places[number] for number in numbers]
+
+
+def widened_draft(draft, scope):
+    """The draft of a machine of a wider scope that does not look at the names that are new."""
+    places = wider_places(draft.places, draft.scope, scope)
+    return MachineDraft(scope, draft.ranks, places, draft.columns, draft.conditions)
 
 
 def widened(machine, scope):
@@ -109,7 +139,8 @@ def widened(machine, scope):
     check_machine(machine)
     if not is_scope(scope) or not all(name in scope for name in machine[1]):
         raise BadScope("not a scope with all names of the machine")
-    return widened_to(machine, scope)
+    places = wider_places(list(range(1 << len(machine[1]))), machine[1], scope)
+    return ("machine", scope, tuple([(rank, tuple([row[place] for place in places])) for rank, row in machine[2]]))
 
 
 def exchanged_goes(condition):
@@ -133,4 +164,4 @@ def started(machine, state):
     check_machine(machine)
     if not is_number(state, len(machine[2])):
         raise BadState("not a number of a state")
-    return press(machine[1], machine[2], state)
+    return told_machine(press(machine[1], machine[2], state))

@@ -1,11 +1,12 @@
 """Choices: machines that guess, at each place, one pair of states for the two places below."""
 
+from allboughs.briefs import brief_list
 from allboughs.checks import is_headed, is_number, is_pairs, is_row
-from allboughs.conditions import MOST_STATES, NO, halved, to_both
+from allboughs.conditions import MOST_STATES
+from allboughs.drafts import ChoicesDraft, MachineDraft, choices_ranks, machine_ranks, refolded, used_things
 from allboughs.errors import BadChoices
-from allboughs.folding import folded, unfolded
-from allboughs.machines import RANKS, press_plain, press_ranked
-from allboughs.ranking import ranks_anew
+from allboughs.folding import folded
+from allboughs.machines import RANKS, told_machine
 from allboughs.woods import is_scope
 
 MOST_PAIRS = 400
@@ -45,82 +46,100 @@ def check_choices(choices):
         raise BadChoices("not choices")
 
 
-def ways_of(lists):
-    """The states in the pairs of the lists of a state, in their sequence, as often as they stand in them."""
-    return [state for pairs in lists for pair in pairs for state in pair]
+def choices_draft(choices):
+    """The draft of what is known to be choices."""
+    rows, places = folded(choices[2])
+    numbers = {}
+    columns = []
+    for at in range(len(rows[0][1])):
+        columns.append([numbers.setdefault(lists[at], len(numbers)) for _, lists in rows])
+    return ChoicesDraft(choices[1], [rank for rank, _ in rows], places, columns, list(numbers))
 
 
-def met_order(rows):
-    """The states that can be come to from the state 0, in the sequence in which they are met."""
+def told_choices(draft):
+    """The choices of a draft."""
+    columns = [[draft.lists[number] for number in column] for column in draft.columns]
+    rows = []
+    for state, rank in enumerate(draft.ranks):
+        row = [column[state] for column in columns]
+        rows.append((rank, tuple([row[place] for place in draft.places])))
+    return ("choices", draft.scope, tuple(rows))
+
+
+def order_in(draft):
+    """The states of a draft of choices that can be come to, as they are met."""
+    many = len(draft.ranks)
     order = [0]
-    met = {0: True}
+    fresh = [True] * many
+    fresh[0] = False
     at = 0
-    while at < len(order):
-        lists = rows[order[at]][1]
-        for state in ways_of(lists):
-            if state not in met:
-                met[state] = True
-                order.append(state)
+    while at < len(order) < many:
+        state = order[at]
         at += 1
+        for column in draft.columns:
+            for left, right in draft.lists[column[state]]:
+                if fresh[left]:
+                    fresh[left] = False
+                    order.append(left)
+                if fresh[right]:
+                    fresh[right] = False
+                    order.append(right)
     return order
 
 
-def renumbered(lists, numbers):
-    """The lists with each state q told as numbers[q]."""
-    return tuple([tuple(sorted([(numbers[left], numbers[right]) for left, right in pairs])) for pairs in lists])
+def is_whole(order, draft):
+    """Whether an order has all states of a draft, by their numbers."""
+    return order == list(range(len(draft.ranks)))
 
 
-def tidy_ranked(scope, rows):
-    """The choices of this scope with these states, tidied, if their ranks are told anew already."""
-    order = met_order(rows)
-    kept = [rows[state][1] for state in order]
-    if order != list(range(len(order))):
-        numbers = {state: number for number, state in enumerate(order)}
-        kept = [renumbered(lists, numbers) for lists in kept]
-    return ("choices", scope, tuple([(rows[state][0], lists) for state, lists in zip(order, kept)]))
+def renumbered(draft, order):
+    """The draft of choices with these states alone, numbered so; the pairs of lists stand where they stood."""
+    numbers = {state: number for number, state in enumerate(order)}
+    used, columns = used_things([[column[state] for state in order] for column in draft.columns])
+    lists = [tuple([(numbers[left], numbers[right]) for left, right in draft.lists[at]]) for at in used]
+    places, columns = refolded(draft.places, columns)
+    return ChoicesDraft(draft.scope, [draft.ranks[state] for state in order], places, columns, lists)
 
 
-def tidy(scope, rows):
-    """The choices of this scope with these states, tidied."""
-    told = tidy_ranked(scope, rows)
-    ranks = [rank for rank, _ in told[2]]
-    if max(ranks) == 0:
-        return told
-    ranks = ranks_anew(ranks, [ways_of(lists) for _, lists in told[2]])
-    return ("choices", scope, tuple([(rank, lists) for rank, (_, lists) in zip(ranks, told[2])]))
+def tidied_draft(draft):
+    """The draft of choices tidied, if their ranks are told anew already."""
+    order = order_in(draft)
+    if is_whole(order, draft):
+        return draft
+    told = renumbered(draft, order)
+    told.lists = [tuple(sorted(pairs)) for pairs in told.lists]
+    return told
+
+
+def tidy(draft):
+    """The draft of choices tidied."""
+    told = tidied_draft(draft)
+    ranks = choices_ranks(told.ranks, told.columns, told.lists)
+    return ChoicesDraft(told.scope, ranks, told.places, told.columns, told.lists)
 
 
 def tidied(choices):
     """The choices with the states that can be come to alone, as they are met, and ranks told anew."""
     check_choices(choices)
-    return tidy(choices[1], choices[2])
+    return told_choices(tidy(choices_draft(choices)))
 
 
-def condition_of(pairs):
-    """The condition that says to go by one of the pairs."""
-    if not pairs:
-        return NO
-    return halved("either", [to_both(left, right) for left, right in pairs])
+def machine_draft(draft):
+    """The draft of the machine of choices whose ranks are told anew already."""
+    order = order_in(draft)
+    told = draft if is_whole(order, draft) else renumbered(draft, order)
+    conditions = [brief_list(pairs) for pairs in told.lists]
+    return MachineDraft(told.scope, told.ranks, told.places, told.columns, conditions)
 
 
-def unpressed_of(choices):
-    """What is known to be choices with conditions in the place of lists."""
-    rows, places = folded(choices[2])
-    rows = [(rank, [condition_of(pairs) for pairs in lists]) for rank, lists in rows]
-    return ("machine", choices[1], unfolded(rows, places))
-
-
-def machine_of_tidied(choices):
-    """The machine of what is known to be tidied choices: their ranks are told anew."""
-    return press_ranked(choices[1], unpressed_of(choices)[2])
-
-
-def as_machine_of(choices):
-    """The machine of what is known to be choices."""
-    return press_plain(choices[1], unpressed_of(choices)[2], 0)
+def as_machine_draft(draft):
+    """The draft of the machine of choices."""
+    told = machine_draft(draft)
+    told.ranks = machine_ranks(told.ranks, told.columns, told.conditions)
+    return told
 
 
 def as_machine(choices):
     """The machine that lets by just the woods that the choices let by."""
     check_choices(choices)
-    return as_machine_of(choices)
+    return told_machine(as_machine_draft(choices_draft(choices)))

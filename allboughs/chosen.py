@@ -1,51 +1,56 @@
 """From machines to choices: one guess at each place, with histories that judge all traces of what is guessed."""
 
-from allboughs.choices import MOST_PAIRS, tidy
-from allboughs.conditions import MOST_STATES
+from allboughs.choices import MOST_PAIRS, tidied_draft, told_choices
+from allboughs.conditions import MOST_STATES, NO
+from allboughs.drafts import ChoicesDraft, masks_in, refolded, unlike
 from allboughs.errors import TooMany
-from allboughs.folding import folded, unfolded
-from allboughs.leading import START, Leader
+from allboughs.leading import Leader
 from allboughs.machines import check_machine, press
-from allboughs.models import models_of
+from allboughs.models import masks_of_models
+from allboughs.ranking import ranks_anew
 
 MOST_PRESSED = 24
 MOST_RANK = 9
 MOST_GUESSES = 2000
+STAY = ("any", ((0, 0),))
 
 
 class Growth:
-    """The states of the choices as they are met: pairs of a history and a rank, with numbers.
+    """The states of the choices as they are met: a history, as the module leading tells it, and a rank.
 
-    halves has for each state of the machine and each letter a pair for each model: the numbers of the moves that it
-    brings to the left and to the right step. moves has what these numbers stand for. widest is the length of the
-    longest list.
+    columns has for each letter the models of each state, masks of the states left above those of the states right,
+    and the masks of the states that have no model, and of those that have several. heard has for the nests of a
+    history, and for what a step leads to, the number of the state behind it. straight tells whether states are met in
+    the sequence of the pairs of lists as well.
     """
 
-    def __init__(self, ranks, rows):
-        """Begin with the first state, told the models of each state of the machine for each letter."""
-        self.leader = Leader(ranks)
-        self.moves = []
-        self.numbers = {}
-        self.lone = {}
-        self.halves = [[[self.half(model) for model in models] for models in row] for row in rows]
-        self.states = [(START, 0)]
-        self.met = {(START, 0): 0}
-        self.widest = 0
+    def __init__(self, draft):
+        """Begin with the first state, told a pressed machine."""
+        self.leader = Leader(draft.ranks)
+        self.half = len(draft.ranks)
+        bits = [[bit << self.half for bit in self.leader.bits], self.leader.bits]
+        models = [masks_of_models(condition, bits) for condition in draft.conditions]
+        self.columns = [self.column_of(column, models) for column in draft.columns]
+        self.states = [(self.leader.start, 0)]
+        self.met = {self.states[0]: 0}
+        self.heard = {}
+        self.lists = {}
+        self.straight = True
 
-    def half(self, model):
-        """The numbers of the moves of a model, left and right."""
-        left = tuple([state for way, state in model if way == 0])
-        return (self.move_to(left), self.move_to(tuple([state for way, state in model if way == 1])))
+    def column_of(self, column, models):
+        """What a letter asks of each state, told the models of all conditions."""
+        shut = 0
+        loose = 0
+        for at, bit in zip(column, self.leader.bits):
+            if not models[at]:
+                shut |= bit
+            elif len(models[at]) > 1:
+                loose |= bit
+        return [models[at] for at in column], shut, loose
 
-    def move_to(self, goals):
-        """The number of the move to goals."""
-        if goals not in self.numbers:
-            self.numbers[goals] = len(self.moves)
-            self.moves.append(self.leader.move(goals))
-        return self.numbers[goals]
-
-    def number(self, state):
-        """The number of a state, which is met now if it was not met yet."""
+    def number(self, homes, led):
+        """The number of the state behind a step, which is met now if it was not met yet."""
+        state = self.leader.behind(homes, led)
         if state not in self.met:
             if len(self.states) == MOST_STATES:
                 raise TooMany(MOST_STATES)
@@ -53,105 +58,131 @@ class Growth:
             self.states.append(state)
         return self.met[state]
 
-    def options_for(self, history, state, letter, parts):
-        """What the guesses for a reached state do: for each of its models left and right, as one number.
+    def guesses(self, spreads, models):
+        """What all guesses lead to, each told where it stands first, if there are not too many of them.
 
-        parts keeps what the moves of the state do. Guesses that do the same are told once, where the first one stands.
+        spreads has for each reached state the number that brings the goals of its models where they belong.
         """
-        size = self.leader.size_of(history)
-        known = parts.setdefault(state, {})
-        told = {}
-        for left, right in self.halves[state][letter]:
-            if left not in known:
-                known[left] = self.leader.part_of(history, state, self.moves[left])
-            if right not in known:
-                known[right] = self.leader.part_of(history, state, self.moves[right])
-            told[known[left] | known[right] << size] = True
-        return list(told)
-
-    def lone_options(self, history, state, letter):
-        """The same for a history without nests: all of them have the same options, which are kept."""
-        key = (state, letter)
-        if key not in self.lone:
-            self.lone[key] = self.options_for(history, state, letter, {})
-        return self.lone[key]
-
-    def is_open(self, reached, letter):
-        """Whether there is a guess at all; TooMany is raised if there are too many of them."""
         many = 1
-        for state in reached:
-            many *= len(self.halves[state][letter])
+        led = 0
+        several = []
+        for state, spread in spreads:
+            options = models[state]
+            if len(options) == 1:
+                led |= options[0] * spread
+            else:
+                many *= len(options)
+                several.append([option * spread for option in options])
         if many > MOST_GUESSES:
             raise TooMany(MOST_GUESSES)
-        return many > 0
+        told = [led | option for option in several[0]]
+        for options in several[1:]:
+            told = list({guess | option: True for guess in told for option in options})
+        return told
 
-    def guesses_for(self, history, letter, parts):
-        """What all guesses behind a history do, as numbers, each of them told where it stands first."""
-        guesses = [0]
-        for state in history[0]:
-            if history[1]:
-                options = self.options_for(history, state, letter, parts)
-            else:
-                options = self.lone_options(history, state, letter)
-            if guesses == [0]:
-                guesses = options
-            elif options != [0]:
-                guesses = list({guess | option: True for guess in guesses for option in options})
-        return guesses
-
-    def list_for(self, history, letter, heard, parts):
-        """The list of the letter with this number behind a history; heard keeps what steps lead to from there."""
-        if not self.is_open(history[0], letter):
-            return ()
-        size = self.leader.size_of(history)
-        full = (1 << size) - 1
-        pairs = {}
-        for guess in self.guesses_for(history, letter, parts):
-            left = guess & full
-            right = guess >> size
+    def list_of(self, guesses, sides, homes, heard):
+        """The list of the pairs of states to which guesses lead; sides has the bits of what is led right."""
+        known = len(self.states)
+        half = self.half
+        found = {}
+        for guess in guesses:
+            left = guess >> half & sides
             if left not in heard:
-                heard[left] = self.number(self.leader.behind(history, left))
+                heard[left] = self.number(homes, left)
+            right = guess & sides
             if right not in heard:
-                heard[right] = self.number(self.leader.behind(history, right))
-            pairs[(heard[left], heard[right])] = True
-        self.widest = max(self.widest, len(pairs))
-        return tuple(sorted(pairs))
+                heard[right] = self.number(homes, right)
+            found[(heard[left], heard[right])] = True
+        if len(found) == 1:
+            return tuple(found)
+        pairs = sorted(found)
+        if len(self.states) > known + 1 and self.straight:
+            fresh = [state for pair in pairs for state in pair if state >= known]
+            self.straight = unlike(fresh)[0] == list(range(known, len(self.states)))
+        return tuple(pairs)
 
-    def lists_behind(self, history):
-        """The lists behind a history, letter by letter."""
-        heard = {}
-        parts = {}
-        return tuple([self.list_for(history, letter, heard, parts) for letter in range(len(self.halves[0]))])
+    def numbers_behind(self, history):
+        """The numbers of the lists behind a history, letter by letter."""
+        homes, fields = history
+        leader = self.leader
+        lowest = leader.lowest_bits(homes)
+        sides = lowest * leader.whole
+        goals = fields & leader.whole
+        spreads = [(state, fields >> place & lowest) for state, place in leader.reached(goals)]
+        if homes not in self.heard:
+            self.heard[homes] = {}
+        heard = self.heard[homes]
+        told = []
+        for models, shut, loose in self.columns:
+            if goals & shut:
+                pairs = ()
+            elif goals & loose:
+                pairs = self.list_of(self.guesses(spreads, models), sides, homes, heard)
+            else:
+                guess = 0
+                for state, spread in spreads:
+                    guess |= models[state][0] * spread
+                left = guess >> self.half & sides
+                if left not in heard:
+                    heard[left] = self.number(homes, left)
+                right = guess & sides
+                if right not in heard:
+                    heard[right] = self.number(homes, right)
+                pairs = ((heard[left], heard[right]),)
+            if pairs not in self.lists:
+                self.lists[pairs] = len(self.lists)
+            told.append(self.lists[pairs])
+        return told
 
     def grown(self):
-        """The states of the choices, as pairs of a rank and lists."""
+        """For each state the numbers of its lists, when all states are met."""
         rows = []
         known = {}
         while len(rows) < len(self.states):
-            history, rank = self.states[len(rows)]
+            history = self.states[len(rows)][0]
             if history not in known:
-                known[history] = self.lists_behind(history)
-            rows.append((rank, known[history]))
+                known[history] = self.numbers_behind(history)
+            rows.append(known[history])
         return rows
 
+    def masks_behind(self, rows):
+        """For each state the mask of the states to which it leads."""
+        masks = masks_in(self.lists)
+        told = []
+        for row in rows:
+            mask = 0
+            for at in row:
+                mask |= masks[at]
+            told.append(mask)
+        return told
 
-def chosen_of(machine):
-    """The choices of what is known to be a pressed machine."""
-    scope, rows = machine[1:]
-    if len(rows) > MOST_PRESSED:
+
+def chosen_draft(draft):
+    """The draft of the choices of a pressed machine."""
+    if len(draft.ranks) > MOST_PRESSED:
         raise TooMany(MOST_PRESSED)
-    ranks = tuple([rank for rank, _ in rows])
-    if max(ranks) > MOST_RANK:
+    if max(draft.ranks) > MOST_RANK:
         raise TooMany(MOST_RANK)
-    rows, places = folded(rows)
-    growth = Growth(ranks, [[models_of(condition) for condition in conditions] for _, conditions in rows])
-    told = growth.grown()
-    if growth.widest > MOST_PAIRS:
+    if draft.ranks == [0] and all(condition == NO or condition == STAY for condition in draft.conditions):
+        # There is but one history: that of the state alone.
+        lists, numbers = unlike([() if draft.conditions[column[0]] == NO else ((0, 0),) for column in draft.columns])
+        places, columns = refolded(draft.places, [[number] for number in numbers])
+        return ChoicesDraft(draft.scope, [0], places, columns, lists)
+    growth = Growth(draft)
+    rows = growth.grown()
+    lists = list(growth.lists)
+    if max([len(pairs) for pairs in lists]) > MOST_PAIRS:
         raise TooMany(MOST_PAIRS)
-    return ("choices", scope, tuple(unfolded(tidy(scope, told)[2], places)))
+    ranks = [rank for _, rank in growth.states]
+    if max(ranks) > 0:
+        ranks = ranks_anew(ranks, growth.masks_behind(rows))
+    places, columns = refolded(draft.places, [list(column) for column in zip(*rows)])
+    told = ChoicesDraft(draft.scope, ranks, places, columns, lists)
+    # No ring, and so no rank, is another one if states have other numbers.
+    return told if growth.straight else tidied_draft(told)
 
 
 def chosen(machine):
     """The choices that let by just the trees that the machine lets by."""
     check_machine(machine)
-    return chosen_of(press(machine[1], machine[2], 0))
+    return told_choices(chosen_draft(press(machine[1], machine[2], 0)))

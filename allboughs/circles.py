@@ -16,47 +16,43 @@ class Walk:
             if row not in self.met:
                 self.walk_from(row)
 
-    def enter(self, row):
-        """Meet a row."""
-        self.met[row] = len(self.met)
-        self.lows[row] = self.met[row]
-        self.pile.append(row)
-
     def walk_from(self, start):
         """Go on as far as one can come from a row, without calls of itself: the road may be long."""
-        self.enter(start)
+        goals = self.goals
+        met = self.met
+        lows = self.lows
+        met[start] = lows[start] = len(met)
+        self.pile.append(start)
         road = [start]
         turns = [0]
         while road:
             row = road[-1]
-            if turns[-1] == len(self.goals[row]):
+            turn = turns[-1]
+            if turn < len(goals[row]):
+                goal = goals[row][turn]
+                turns[-1] = turn + 1
+                if goal not in self.inside:
+                    continue
+                if goal not in met:
+                    met[goal] = lows[goal] = len(met)
+                    self.pile.append(goal)
+                    road.append(goal)
+                    turns.append(0)
+                elif lows[goal] < lows[row]:
+                    # From this row one comes to one that was met so early.
+                    lows[row] = lows[goal]
+            else:
                 road.pop()
                 turns.pop()
-                self.leave(row)
-                if road:
-                    self.bring_down(road[-1], self.lows[row])
-                continue
-            goal = self.goals[row][turns[-1]]
-            turns[-1] += 1
-            if goal not in self.inside:
-                continue
-            if goal not in self.met:
-                self.enter(goal)
-                road.append(goal)
-                turns.append(0)
-            else:
-                self.bring_down(row, self.lows[goal])
-
-    def bring_down(self, row, low):
-        """From this row one comes to a row that was met so early."""
-        self.lows[row] = min(self.lows[row], low)
+                if lows[row] == met[row]:
+                    self.leave(row)
+                elif lows[row] < lows[road[-1]]:
+                    lows[road[-1]] = lows[row]
 
     def leave(self, row):
-        """Take the clump of a row from the pile if the row is the first one of it that was met."""
-        if self.lows[row] < self.met[row]:
-            return
-        clump = []
-        while not clump or clump[-1] != row:
+        """Take the clump of a row, the first one of it that was met, from the pile."""
+        clump = [self.pile.pop()]
+        while clump[-1] != row:
             clump.append(self.pile.pop())
         for one in clump:
             self.lows[one] = len(self.goals)

@@ -1,114 +1,165 @@
-"""From formulas to machines, and to choices: of atoms by hand, of all others from those of their parts."""
+"""From formulas to machines, and to choices: of atoms by hand, of all others from those of their parts.
 
-from allboughs.building import combined, contrary_of, widened_to
-from allboughs.choices import machine_of_tidied
-from allboughs.chosen import chosen_of
-from allboughs.conditions import NO, to_both
-from allboughs.formulas import JOINTS, check_formula, free_in, parts_of
-from allboughs.hiding import hidden_of
-from allboughs.machines import press_plain
-from allboughs.pruning import pruned_of
+Formulas are taken as formulas.scoped tells them: (word, scope, ..), a part of one word behind that, a name last.
+"""
+
+from allboughs.building import contrary_draft, joint_draft, reached_draft, widened_draft
+from allboughs.choices import machine_draft, told_choices
+from allboughs.chosen import chosen_draft
+from allboughs.conditions import CONTRARIES, NO, to_both
+from allboughs.drafts import MachineDraft, refolded
+from allboughs.formulas import JOINTS, check_formula, scope_of_names
+from allboughs.hiding import hidden_draft
+from allboughs.machines import told_machine
+from allboughs.pruning import pruned_draft
 from allboughs.shortforms import looks_short
 from allboughs.shorts import hand
-from allboughs.woods import letters_of
 
 
-def sub_condition(state, x, y):
-    """The condition of ("sub", x, y) for a letter with x, with y."""
-    return NO if x and not y else to_both(0, 0)
+def sub_goals(state, x, y):
+    """The states left and right that ("sub", x, y) asks for with a letter with x, with y, told by 1 and 0, or None."""
+    return None if x > y else (0, 0)
 
 
-def root_condition(state, x, y):
-    """The condition of ("root", x): state 0 wants x, state 1 wants none."""
-    return to_both(1, 1) if x == (state == 0) else NO
+def root_goals(state, x, y):
+    """The same for ("root", x): state 0 wants x, state 1 wants none."""
+    return (1, 1) if x != state else None
 
 
-def left_condition(state, x, y):
-    """The condition of ("left", x, y): y is due in state 1 alone."""
-    return to_both(1 if x else 0, 0) if y == (state == 1) else NO
+def left_goals(state, x, y):
+    """The same for ("left", x, y): y is due in state 1 alone."""
+    return (x, 0) if y == state else None
 
 
-def right_condition(state, x, y):
-    """The condition of ("right", x, y): y is due in state 1 alone."""
-    return to_both(0, 1 if x else 0) if y == (state == 1) else NO
+def right_goals(state, x, y):
+    """The same for ("right", x, y): y is due in state 1 alone."""
+    return (0, x) if y == state else None
 
 
-CONDITIONS = {"sub": sub_condition, "root": root_condition, "left": left_condition, "right": right_condition}
+GOALS = {"sub": sub_goals, "root": root_goals, "left": left_goals, "right": right_goals}
 STATES = {"sub": 1, "root": 2, "left": 2, "right": 2}
+
+
+def goals_of_atom(atom, scope, states):
+    """The goals of so many states of the machine of an atom that is no short, letter by letter."""
+    goals = GOALS[atom[0]]
+    x = scope.index(atom[1])
+    y = scope.index(atom[-1])
+    told = []
+    for letter in range(1 << len(scope)):
+        told.append([goals(state, letter >> x & 1, letter >> y & 1) for state in range(states)])
+    return told
 
 
 def machine_of_atom(atom):
     """The machine of an atom, or of a short."""
     if looks_short(atom):
         return hand(atom)
-    scope = tuple(sorted(set(atom[1:])))
-    condition = CONDITIONS[atom[0]]
+    scope = scope_of_names(atom[1:])
+    columns = goals_of_atom(atom, scope, STATES[atom[0]])
     rows = []
-    for state in range(STATES[atom[0]]):
-        row = [condition(state, atom[1] in letter, atom[-1] in letter) for letter in letters_of(scope)]
-        rows.append((0, tuple(row)))
+    for row in zip(*columns):
+        rows.append((0, tuple([NO if goals is None else to_both(goals[0], goals[1]) for goals in row])))
     return ("machine", scope, tuple(rows))
 
 
-def some_not(formula):
+def draft_of_atom(atom, scope):
+    """The draft of the machine of an atom, or of a short, pressed."""
+    word = atom[0]
+    if word not in STATES:
+        return reached_draft(hand(atom))
+    # If left or right have one name alone, the state in which its marks are due is never met.
+    states = STATES[word] if word == "root" or len(scope) == 2 else 1
+    numbers = {}
+    columns = []
+    for column in goals_of_atom(atom, scope, states):
+        columns.append([numbers.setdefault(goals, len(numbers)) for goals in column])
+    places, columns = refolded(list(range(len(columns))), columns)
+    conditions = [NO if goals is None else ("any", (goals,)) for goals in numbers]
+    return MachineDraft(scope, [0] * states, places, columns, conditions)
+
+
+def some_not(tree):
     """What says of a formula with all in front that it does not hold: some set with which its part does not."""
-    return ("some", formula[1], ("not", formula[2]))
+    _, scope, part, name = tree
+    return ("some", scope, ("not", part[1], part), name)
 
 
-def build_machine(formula):
-    """The machine of what is known to be a formula. Its conditions are plain; unless it is of an atom it is pressed."""
-    word = formula[0]
-    if word in JOINTS:
-        one = build_machine(formula[1])
-        other = build_machine(formula[2])
-        scope = tuple(sorted(set(one[1] + other[1])))
-        return combined(word, widened_to(one, scope), widened_to(other, scope))
-    if word == "not":
-        part = formula[1]
-        if part[0] == "not":
-            return build_machine(part[1])
-        if part[0] == "all":
-            return build_machine(some_not(part))
-        return contrary_of(build_machine(part))
-    if word == "all":
-        return contrary_of(build_machine(some_not(formula)))
-    if word == "some":
-        if formula[1] not in free_in(formula[2]):
-            return build_machine(formula[2])
-        return machine_of_tidied(build_choices(formula))
-    return machine_of_atom(formula)
-
-
-def pressed_of(formula):
-    """The machine of what is known to be a formula, pressed."""
-    told = build_machine(formula)
-    return told if parts_of(formula) else press_plain(told[1], told[2], 0)
-
-
-def build_choices(formula):
-    """The choices of what is known to be a formula; they are tidied."""
-    names = []
-    part = formula
-    while part[0] == "some" or part[0] == "not" and part[1][0] in ("not", "all"):
-        if part[0] == "not":
-            part = part[1][1] if part[1][0] == "not" else some_not(part[1])
+def core_of(tree):
+    """The formula of which the machine is made: without not not and some that binds nothing, with some for not all."""
+    while True:
+        part = tree[2]
+        if tree[0] == "not" and part[0] == "not":
+            tree = part[2]
+        elif tree[0] == "not" and part[0] == "all":
+            tree = some_not(part)
+        elif tree[0] == "some" and tree[3] not in part[1]:
+            tree = part
         else:
-            if part[1] in free_in(part[2]):
-                names.append(part[1])
-            part = part[2]
-    told = pruned_of(chosen_of(pressed_of(part)))
+            return tree
+
+
+def joint_of(word, scope, one, other):
+    """The draft of two machines joined by a word, widened to a scope first."""
+    return joint_draft(word, widened_draft(one, scope), widened_draft(other, scope))
+
+
+def build_contrary(tree):
+    """The draft of the contrary of the machine of a formula.
+
+    That of two joined ones is their contraries joined by the other word: conditions, states and ranks are the same, as
+    no ring has states of both. If all ranks are 0 the contrary of the contrary is the machine itself.
+    """
+    tree = core_of(tree)
+    if tree[0] in JOINTS:
+        return joint_of(CONTRARIES[tree[0]], tree[1], build_contrary(tree[2]), build_contrary(tree[3]))
+    if tree[0] == "not":
+        told = build_machine(tree[2])
+        return told if max(told.ranks) == 0 else contrary_draft(contrary_draft(told))
+    return contrary_draft(build_machine(tree))
+
+
+def build_machine(tree):
+    """The draft of the machine of a formula, pressed."""
+    tree = core_of(tree)
+    word = tree[0]
+    if word in JOINTS:
+        return joint_of(word, tree[1], build_machine(tree[2]), build_machine(tree[3]))
+    if word == "not":
+        return build_contrary(tree[2])
+    if word == "all":
+        return build_contrary(some_not(tree))
+    if word == "some":
+        return machine_draft(build_choices(tree))
+    return draft_of_atom(tree[2], tree[1])
+
+
+def build_choices(tree):
+    """The draft of the choices of a formula; they are tidied."""
+    names = []
+    tree = core_of(tree)
+    while tree[0] == "some":
+        names.append(tree[3])
+        tree = core_of(tree[2])
+    told = pruned_draft(chosen_draft(build_machine(tree)))
     for name in names[::-1]:
-        told = pruned_of(hidden_of(told, name))
+        told = pruned_draft(hidden_draft(told, name))
     return told
+
+
+def machine_in(tree):
+    """The machine of a formula. Unless it is that of an atom it is pressed."""
+    tree = core_of(tree)
+    if len(tree) == 3 and tree[0] != "not":
+        return machine_of_atom(tree[2])
+    return told_machine(build_machine(tree))
 
 
 def machine_of(formula):
     """The machine that lets marks by exactly if the formula holds for them."""
-    check_formula(formula)
-    return build_machine(formula)
+    return machine_in(check_formula(formula))
 
 
 def choices_of(formula):
     """The choices that let marks by exactly if the formula holds for them."""
-    check_formula(formula)
-    return build_choices(formula)
+    return told_choices(build_choices(check_formula(formula)))

@@ -1,11 +1,12 @@
 """Conditions: trees of yes, no, goes, both and either."""
 
-from allboughs.checks import is_number, is_pairs
+from allboughs.checks import is_pairs
 from allboughs.errors import BadCondition, BadLot
 
 MOST_STATES = 400
 MOST_NODES = 1600
 MOST_DEEP = 30
+TOO_MANY_NODES = 1601
 
 YES = ("yes",)
 NO = ("no",)
@@ -17,34 +18,38 @@ def is_joint(part):
     return part[0] == "both" or part[0] == "either"
 
 
-def is_form(part, many):
-    """Whether it looks like a node of a condition, whatever its parts are, with goes to numbers below many."""
-    if not isinstance(part, tuple) or not part or not isinstance(part[0], str):
+def is_go(part, many):
+    """Whether a tuple that begins with "go" is a go to a number below many."""
+    if len(part) != 3:
         return False
-    if part[0] == "go":
-        return len(part) == 3 and is_number(part[1], 2) and is_number(part[2], many)
-    if is_joint(part):
-        return len(part) == 3
-    return len(part) == 1 and part[0] in ("yes", "no")
+    _, way, goal = part
+    if not isinstance(way, int) or isinstance(way, bool) or not isinstance(goal, int) or isinstance(goal, bool):
+        return False
+    return 0 <= way < 2 and 0 <= goal < many
+
+
+def nodes_in(part, many, deep):
+    """How many nodes a value has as a condition with goes to numbers below many that is no deeper than told.
+
+    It is TOO_MANY_NODES if it is no such condition. The value may be as deep as it likes, and may be a small thing
+    with endless many nodes as they are counted, so no more of it is looked at than a condition has.
+    """
+    if not isinstance(part, tuple) or not part or not isinstance(part[0], str):
+        return TOO_MANY_NODES
+    word = part[0]
+    if word == "go":
+        return 1 if is_go(part, many) else TOO_MANY_NODES
+    if word == "both" or word == "either":
+        if len(part) != 3 or deep == 1:
+            return TOO_MANY_NODES
+        nodes = 1 + nodes_in(part[1], many, deep - 1)
+        return nodes if nodes > MOST_NODES else nodes + nodes_in(part[2], many, deep - 1)
+    return 1 if len(part) == 1 and (word == "yes" or word == "no") else TOO_MANY_NODES
 
 
 def is_condition_for(thing, many):
-    """Whether it is a condition with goes to numbers below many alone.
-
-    It is looked at without calls of itself, and no further than a condition can go: the value may be as deep as
-    it likes, and may be a small thing with endless many nodes as they are counted.
-    """
-    todo = [(thing, 1)]
-    nodes = 0
-    while todo:
-        part, deep = todo.pop()
-        nodes += 1
-        if nodes > MOST_NODES or deep > MOST_DEEP or not is_form(part, many):
-            return False
-        if is_joint(part):
-            todo.append((part[2], deep + 1))
-            todo.append((part[1], deep + 1))
-    return True
+    """Whether it is a condition with goes to numbers below many alone."""
+    return nodes_in(thing, many, MOST_DEEP) <= MOST_NODES
 
 
 def is_condition(thing):
@@ -78,23 +83,20 @@ def goals(condition):
 
 
 def add_states(condition, found):
-    """Add the states of the goes of a condition, from left to right, to the keys of a dict."""
+    """Add the states of the goes of a condition, from left to right, to a list."""
     word = condition[0]
     if word == "go":
-        found[condition[2]] = True
+        found.append(condition[2])
     elif word == "both" or word == "either":
         add_states(condition[1], found)
         add_states(condition[2], found)
 
 
-def add_goals(condition, found):
-    """Add the pairs (way, state) of the goes of a condition to the keys of a dict."""
-    word = condition[0]
-    if word == "go":
-        found[condition[1:]] = True
-    elif word == "both" or word == "either":
-        add_goals(condition[1], found)
-        add_goals(condition[2], found)
+def states_in(condition):
+    """The states of the goes of a condition, from left to right."""
+    found = []
+    add_states(condition, found)
+    return found
 
 
 def goes(condition):
@@ -172,13 +174,11 @@ def moved(condition, numbers):
     return condition
 
 
-def size_and_depth(condition):
-    """How many nodes a condition has, and how deep it is."""
+def depth_of(condition):
+    """How deep a condition is."""
     if not is_joint(condition):
-        return 1, 1
-    nodes, deep = size_and_depth(condition[1])
-    more, deeper = size_and_depth(condition[2])
-    return 1 + nodes + more, 1 + max(deep, deeper)
+        return 1
+    return 1 + max(depth_of(condition[1]), depth_of(condition[2]))
 
 
 def halved(word, parts):

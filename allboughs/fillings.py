@@ -1,10 +1,10 @@
 """How many sets make a formula hold on a wood: all of them, or endless many."""
 
 from allboughs.circles import Walk
+from allboughs.choices import told_choices
 from allboughs.compiling import build_choices
 from allboughs.deciding import check_binder, check_marks, cut_down
 from allboughs.errors import TooMany
-from allboughs.formulas import free_in
 from allboughs.markings import Marks, Trees
 from allboughs.woods import MOST_NODES
 
@@ -174,14 +174,13 @@ class Fillings:
 
 def fillings(formula, wood):
     """("all", woods) with a wood for each set that makes the formula hold, or ("endless", filled, high, low)."""
-    check_binder(formula, ("some",))
-    scope = free_in(formula)
+    _, scope, part, name = check_binder(formula, ("some",))
     check_marks(scope, wood)
-    choices = build_choices(formula[2])
+    choices = told_choices(build_choices(part))
     base = cut_down(wood, scope)
     if len(base[2]) * len(choices[2]) > MOST_STANDINGS:
         raise TooMany(MOST_STANDINGS)
-    marks = Marks(choices, base, formula[1])
+    marks = Marks(choices, base, name)
     if not marks.order:
         return ("all", ())
     found = Fillings(marks)

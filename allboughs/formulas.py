@@ -79,37 +79,90 @@ def nodes_below(thing, wide):
     return nodes
 
 
+def scoped_joint(thing, wide, room):
+    """The same as scoped for what begins with both or either and has two parts."""
+    one = scoped(thing[1], wide, room)
+    if one is None:
+        return None
+    other = scoped(thing[2], wide, room)
+    if other is None:
+        return None
+    if one[1] == other[1]:
+        return (thing[0], one[1], one, other)
+    scope = tuple(sorted(set(one[1] + other[1])))
+    return (thing[0], scope, one, other) if len(scope) <= MOST_FREE else None
+
+
+def scoped(thing, wide, room):
+    """A formula with the scope of its free names behind each word in it, None for a value that is none.
+
+    Atoms stay whole, wide formulas may have shorts, and the names that some and all bind stand last. room is a list
+    with the number of nodes that it may still have; no more of it is looked at.
+    """
+    room[0] -= 1
+    if room[0] < 0 or not is_form(thing, wide):
+        return None
+    word = thing[0]
+    if word in JOINTS:
+        return scoped_joint(thing, wide, room)
+    if word != "not" and word not in BINDERS:
+        return (word, scope_of_names(thing[1:]), thing)
+    part = scoped(thing[-1], wide, room)
+    if part is None:
+        return None
+    if word == "not":
+        return (word, part[1], part)
+    scope = part[1]
+    if thing[1] in scope:
+        scope = tuple([name for name in scope if name != thing[1]])
+    return (word, scope, part, thing[1])
+
+
+def tree_of(thing):
+    """A formula, perhaps a long one, as scoped tells it, None for a value that is none."""
+    return scoped(thing, True, [MOST_NODES])
+
+
+def tree_of_no_long(thing):
+    """A formula without shorts as scoped tells it, None for a value that is none."""
+    return scoped(thing, False, [MOST_NODES])
+
+
 def is_formula(thing):
     """Whether a value of any kind is a formula, no long one."""
-    return nodes_below(thing, False) is not None and free_in(thing) is not None
+    return tree_of_no_long(thing) is not None
 
 
 def is_long(thing):
     """Whether a value of any kind is a formula in which shorts may stand as atoms."""
-    return nodes_below(thing, True) is not None and free_in(thing) is not None
+    return tree_of(thing) is not None
 
 
 def check_formula(formula):
-    """Raise BadFormula for what is no formula, not even a long one."""
-    if not is_long(formula):
+    """Raise BadFormula for what is no formula, not even a long one; told is it as scoped tells it."""
+    tree = tree_of(formula)
+    if tree is None:
         raise BadFormula("not a formula")
+    return tree
 
 
 def check_no_long(formula):
-    """Raise BadFormula for what is no formula, or a long one."""
-    if not is_formula(formula):
+    """Raise BadFormula for what is no formula, or a long one; told is it as scoped tells it."""
+    tree = tree_of_no_long(formula)
+    if tree is None:
         raise BadFormula("not a formula without shorts")
+    return tree
 
 
 def is_sentence(thing):
     """Whether a value of any kind is a formula, perhaps a long one, without free names."""
-    return is_long(thing) and free_in(thing) == ()
+    tree = tree_of(thing)
+    return tree is not None and tree[1] == ()
 
 
 def free_names(formula):
     """The scope of the free names of a formula, perhaps a long one."""
-    check_formula(formula)
-    return free_in(formula)
+    return check_formula(formula)[1]
 
 
 def size_of(formula):

@@ -1,6 +1,7 @@
 """Hidden names: choices that guess the marks of a name as well, and such marks told."""
 
-from allboughs.choices import MOST_PAIRS, check_choices, tidy, tidy_ranked
+from allboughs.choices import MOST_PAIRS, check_choices, choices_draft, tidied_draft, tidy, told_choices
+from allboughs.drafts import ChoicesDraft, refolded, unlike
 from allboughs.errors import BadName, OtherScope, TooMany
 from allboughs.guides import Standings, check_standings
 from allboughs.woods import MOST_NODES, check_wood, least_rows, letters_of
@@ -28,25 +29,46 @@ def pairs_of_both(lists, twin):
     return tuple(sorted(set(lists[twin[0]] + lists[twin[1]])))
 
 
-def hidden_rows(choices, name):
-    """The states of what is known to be choices without a name of their scope: its marks are guessed as well."""
-    twins = twins_of(choices[1], name)
-    rows = [(rank, tuple([pairs_of_both(lists, twin) for twin in twins])) for rank, lists in choices[2]]
-    if any(len(pairs) > MOST_PAIRS for _, lists in rows for pairs in lists):
+def united(one, other):
+    """All pairs of two lists, ascending."""
+    if not other or one == other:
+        return one
+    return tuple(sorted(set(one + other))) if one else other
+
+
+def without_name(draft, name):
+    """The draft of choices without a name of their scope: its marks are guessed as well."""
+    bit = 1 << draft.scope.index(name)
+    bare = [number for number in range(len(draft.places)) if not number & bit]
+    kinds, places = unlike([(draft.places[number], draft.places[number | bit]) for number in bare])
+    lists = draft.lists
+    numbers = {}
+    known = {}
+    columns = []
+    for one, other in kinds:
+        column = list(zip(draft.columns[one], draft.columns[other]))
+        for pair in column:
+            if pair not in known:
+                pairs = united(lists[pair[0]], lists[pair[1]])
+                known[pair] = numbers.setdefault(pairs, len(numbers))
+        columns.append([known[pair] for pair in column])
+    lists = list(numbers)
+    if max([len(pairs) for pairs in lists]) > MOST_PAIRS:
         raise TooMany(MOST_PAIRS)
-    return rows
+    places, columns = refolded(places, columns)
+    return ChoicesDraft(scope_without(draft.scope, name), draft.ranks, places, columns, lists)
 
 
-def hidden_of(choices, name):
-    """The same as hidden for what is known to be tidied choices: each state leads where it did, so all ranks stay."""
-    return tidy_ranked(scope_without(choices[1], name), hidden_rows(choices, name))
+def hidden_draft(draft, name):
+    """The draft of tidied choices without a name, tidied: each state leads where it did, so all ranks stay."""
+    return tidied_draft(without_name(draft, name))
 
 
 def hidden(choices, name):
     """The choices that let a wood by if some marks of the name make it one that these choices let by."""
     check_choices(choices)
     check_name(choices, name)
-    return tidy(scope_without(choices[1], name), hidden_rows(choices, name))
+    return told_choices(tidy(without_name(choices_draft(choices), name)))
 
 
 def marked_rows(choices, wood, name):

@@ -33,7 +33,7 @@ def walk_laid(board, leads):
     while len(goals) < len(spots):
         node, state = spots[len(goals)]
         lot = leads.get((node, state), [])
-        if not holds_by(board.condition_of(node, state), {pair: True for pair in lot}):
+        if not holds_by(board.states[state][1][board.nodes[node][0]], {pair: True for pair in lot}):
             return None
         row = []
         for way, goal in lot:
@@ -65,21 +65,19 @@ def goes_taken(board, at, picks):
 
     picks tells the goal of each row of the plan, None for rows of the breaker.
     """
-    _, node, state = board.standings[at]
     taken = []
     goals = []
-    todo = [((), board.condition_of(node, state))]
+    todo = [(board.goals[at][0], board.conditions[at])]
     while todo:
-        path, condition = todo.pop()
-        spot = board.spot(node, state, path, condition)
+        spot, condition = todo.pop()
         if condition[0] == "go":
             taken.append((condition[1], condition[2]))
             goals.append(spot)
         elif is_joint(condition):
-            for turn in (1, 2):
-                onward = path + (turn,)
-                if picks[spot] is None or picks[spot] == board.spot(node, state, onward, condition[turn]):
-                    todo.append((onward, condition[turn]))
+            leads = board.goals[spot]
+            for part, onward in ((condition[1], leads[0]), (condition[2], leads[-1])):
+                if picks[spot] is None or picks[spot] == onward:
+                    todo.append((onward, part))
     return taken, goals
 
 
@@ -94,7 +92,7 @@ def laid(machine, wood, plan):
     met = {0: True}
     at = 0
     while at < len(order):
-        _, node, state = board.standings[order[at]]
+        node, state = board.state_at(order[at])
         taken, goals = goes_taken(board, order[at], picks)
         at += 1
         for way, goal in taken:

@@ -1,93 +1,81 @@
-"""Histories led on fast, for those who lead many of them: lots of runners are told by masks.
+"""Histories led on fast, for those who lead many of them: states and runners are told by masks.
 
-A history is a pair (reached, nests) here: reached an ascending tuple of states; nests a tuple of pairs (home, lot)
-as in the module histories, but lot is a number in which a bit is set for each runner of the lot. Two of them are
-equal exactly if those are. A step is told by moves: one for each reached state, in order.
+In the mask of a lot of states the state 0 has the highest bit. A history is a pair (homes, fields) here: homes tells
+for each nest in which elder one it lies, or None. fields is a number with a field for the reached states, the lowest
+one, and for each nest and each odd rank, the lesser ones first, a field with the states of its runners of this rank.
+Each field has twice as many bits as there are states, so that beside it what is led right and left finds room.
+
+What a step leads to is told likewise: if a state has a place in some fields its goals come to these fields. To
+multiply the mask of the goals by a number that has the lowest bit of each of these fields does that at once.
 """
-
-from allboughs.histories import runners_of
-
-START = ((0,), ())
 
 
 class Leader:
-    """Leads histories of ranks. The runner of a state and the i-th odd rank has the bit state * width + i."""
+    """Leads histories of ranks.
+
+    whole is the mask of all states, one_nest has the lowest bit of each field of a nest. own has the runners whose
+    rank is that of their state, allowed has all runners, both as the fields of a nest.
+    """
 
     def __init__(self, ranks):
-        """Begin with the bits of all runners."""
+        """Begin with the fields of all runners."""
         odd = sorted({rank for rank in ranks if rank % 2})
-        self.many = len(runners_of(ranks))
         self.states = len(ranks)
-        self.width = len(odd)
-        self.field = self.states * self.width
-        self.bits = []
+        self.step = 2 * len(ranks)
+        self.width = self.step * len(odd)
+        self.whole = (1 << len(ranks)) - 1
+        self.bits = [1 << place for place in range(len(ranks) - 1, -1, -1)]
+        self.one_nest = 0
         self.own = 0
-        for state, rank in enumerate(ranks):
-            row = [1 << (state * len(odd) + at) if limit >= rank else 0 for at, limit in enumerate(odd)]
-            self.bits.append(row)
-            if rank % 2:
-                self.own |= row[odd.index(rank)]
+        self.allowed = 0
+        self.many = 0
+        for at, limit in enumerate(odd):
+            self.one_nest |= 1 << self.step * at
+            for bit, rank in zip(self.bits, ranks):
+                if rank <= limit:
+                    self.many += 1
+                    self.allowed |= bit << self.step * at
+                if rank == limit:
+                    self.own |= bit << self.step * at
+        self.start = ((), self.bits[0])
         self.known = {}
+        self.lowest = {}
 
-    def move(self, goals):
-        """The move to goals: their mask, that of the runners born there, and those of the led ones by odd ranks."""
-        reached = 0
-        led = [0] * self.width
+    def mask(self, goals):
+        """The mask of some states."""
+        told = 0
         for goal in goals:
-            reached |= 1 << goal
-            for at, bit in enumerate(self.bits[goal]):
-                led[at] |= bit
-        born = 0
-        for mask in led:
-            born |= mask & self.own
-        return (reached, born, led)
-
-    def states_in(self, mask):
-        """The ascending tuple of the states of a mask."""
-        return tuple([state for state in range(mask.bit_length()) if mask >> state & 1])
-
-    def size_of(self, history):
-        """How many bits tell what a step does to a history."""
-        return self.states + self.field * (1 + len(history[1]))
-
-    def part_of(self, history, state, move):
-        """What the move of a reached state does to a history, as a number: one field behind the other.
-
-        They are the goals, the runners that are born, and for each nest those to which its runners are led. What a
-        step does is told by the bits of the parts of all reached states together.
-        """
-        reached, born, led = move
-        told = reached | born << self.states
-        shift = self.states + self.field
-        for _, lot in history[1]:
-            block = lot >> state * self.width
-            for mask in led:
-                if block & 1:
-                    told |= mask << shift
-                block >>= 1
-            shift += self.field
+            told |= self.bits[goal]
         return told
 
-    def behind(self, history, told):
-        """The history behind a step and the rank that is told, by what the step does."""
-        nests = history[1]
-        goals = told & (1 << self.states) - 1
-        if goals not in self.known:
-            self.known[goals] = self.states_in(goals)
-        goals = self.known[goals]
-        told >>= self.states
-        if not nests:
-            return (goals, ((None, told),) if told else ()), 0
-        full = (1 << self.field) - 1
-        fresh = told & full
+    def reached(self, fields):
+        """The states that a history has reached, ascending, each with the place of its bit in each field."""
+        mask = fields & self.whole
+        if mask not in self.known:
+            last = self.states - 1
+            self.known[mask] = [(last - place, place) for place in range(last, -1, -1) if mask >> place & 1]
+        return self.known[mask]
+
+    def lowest_bits(self, homes):
+        """The lowest bit of each field of a history."""
+        many = len(homes)
+        if many not in self.lowest:
+            self.lowest[many] = 1 + sum([self.one_nest << self.step + at * self.width for at in range(many)])
+        return self.lowest[many]
+
+    def behind(self, homes, led):
+        """The history behind a step, and the rank told, where led tells what the step leads to."""
+        goals = led & self.whole
+        fresh = goals * self.one_nest & self.own
+        led >>= self.step
+        if not homes:
+            return (((None,), goals | fresh << self.step) if fresh else ((), goals)), 0
         lots = []
-        born = []
-        inner = [0] * len(nests)
+        inner = [0] * len(homes)
         outer = 0
-        for home, _ in nests:
-            told >>= self.field
-            lot = told & full
-            born.append(lot & self.own)
+        for home in homes:
+            lot = led & self.allowed
+            led >>= self.width
             if home is None:
                 lot &= ~outer
                 outer |= lot
@@ -95,41 +83,44 @@ class Leader:
                 lot &= lots[home] & ~inner[home]
                 inner[home] |= lot
             lots.append(lot)
-        for at, lot in enumerate(lots):
-            born[at] &= lot & ~inner[at]
-            inner[at] |= born[at]
-        left, rank = self.nests_left(nests, lots, inner, born, fresh & ~outer)
-        return (goals, left), rank
+        return self.nests_left(homes, lots, inner, goals, fresh & ~outer)
 
-    def nests_left(self, nests, lots, inner, born, fresh):
-        """The nests that do not end, and the rank for the first of the elder ones that ends or shines.
+    def nests_left(self, homes, lots, inner, goals, fresh):
+        """The history of the nests that do not end, and the rank for the first elder one that ends or shines.
 
-        inner has for each nest what is found in those that lie in it, born what is born in it, fresh what is born
-        in none.
+        inner has for each nest what is found in those that lie in it, fresh what is born in none.
         """
         numbers = {None: None}
-        left = []
-        rank = 0
         closed = {}
-        for at, (home, _) in enumerate(nests):
-            ends = home in closed or not lots[at]
-            if ends or inner[at] == lots[at]:
+        left = [(None, fresh)] if fresh else []
+        kept = []
+        rank = 0
+        for at, home in enumerate(homes):
+            lot = lots[at]
+            if home in closed or not lot:
                 closed[at] = True
-                if rank == 0:
-                    rank = 2 * (self.many - at) - (0 if ends else 1)
-            if not ends:
-                numbers[at] = len(left)
-                left.append((numbers[home], lots[at]))
-        if fresh:
-            left.append((None, fresh))
-        for at, lot in enumerate(born):
-            if lot and at not in closed:
-                left.append((numbers[at], lot))
-        return tuple(left), rank
+                rank = rank or 2 * (self.many - at)
+                continue
+            numbers[at] = len(kept)
+            kept.append((numbers[home], lot))
+            born = lot & self.own & ~inner[at]
+            if inner[at] | born == lot:
+                closed[at] = True
+                rank = rank or 2 * (self.many - at) - 1
+            elif born:
+                left.append((numbers[at], born))
+        kept.extend(left)
+        shift = self.step
+        for _, lot in kept:
+            goals |= lot << shift
+            shift += self.width
+        return (tuple([home for home, _ in kept]), goals), rank
 
     def lead_on(self, history, moves):
-        """The history behind a step and the rank that is told, where moves has a move for each reached state."""
-        told = 0
-        for state, move in zip(history[0], moves):
-            told |= self.part_of(history, state, move)
-        return self.behind(history, told)
+        """The history behind a step and the rank that is told, where moves has the mask of the goals of each state."""
+        homes, fields = history
+        lowest = self.lowest_bits(homes)
+        led = 0
+        for state, place in self.reached(fields):
+            led |= moves[state] * (fields >> place & lowest)
+        return self.behind(homes, led)

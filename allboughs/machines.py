@@ -1,10 +1,11 @@
 """Machines of challenges, and machines pressed: with no states, parts and ranks that they do not need."""
 
+from allboughs.briefs import whole
 from allboughs.checks import is_headed, is_number, is_row
-from allboughs.conditions import MOST_STATES, add_states, is_condition_for, made_plain, moved
+from allboughs.conditions import MOST_STATES, is_condition_for, made_plain, moved, states_in
+from allboughs.drafts import MachineDraft, machine_ranks
 from allboughs.errors import BadMachine
-from allboughs.folding import folded, unfolded
-from allboughs.ranking import ranks_anew
+from allboughs.folding import folded
 from allboughs.woods import is_scope
 
 RANKS = 301
@@ -14,7 +15,10 @@ def is_state(thing, many, states):
     """Whether it is a state of a machine with so many letters and so many states."""
     if not is_row(thing, 2, 2) or not is_number(thing[0], RANKS) or not is_row(thing[1], many, many):
         return False
-    return all(is_condition_for(condition, states) for condition in thing[1])
+    for condition in thing[1]:
+        if not is_condition_for(condition, states):
+            return False
+    return True
 
 
 def is_machine(thing):
@@ -24,7 +28,10 @@ def is_machine(thing):
     rows = thing[2]
     if not is_row(rows, 1, MOST_STATES):
         return False
-    return all(is_state(row, 1 << len(thing[1]), len(rows)) for row in rows)
+    for row in rows:
+        if not is_state(row, 1 << len(thing[1]), len(rows)):
+            return False
+    return True
 
 
 def check_machine(machine):
@@ -33,57 +40,46 @@ def check_machine(machine):
         raise BadMachine("not a machine")
 
 
-def met_rows(rows, start):
-    """The states that can be come to from start as a walk meets them, and for each of them those to which it has goes.
+def drafted(scope, rows, start):
+    """The draft of a machine that begins with start, with the states that can be come to, as a walk meets them.
 
-    rows may be a list or a dict, of states whose conditions are plain.
+    rows may be a list or a dict, of states whose conditions are plain; their ranks stay.
     """
     order = [start]
-    met = {start: True}
-    leads = []
-    while len(leads) < len(order):
-        found = {}
-        for condition in rows[order[len(leads)]][1]:
-            add_states(condition, found)
-        for state in found:
-            if state not in met:
-                met[state] = True
-                order.append(state)
-        leads.append(found)
-    return order, leads
-
-
-def numbered(rows, order):
-    """The states in this order, with the goes of their conditions numbered so."""
-    kept = [rows[state] for state in order]
-    if order == list(range(len(order))):
-        return kept
-    numbers = {state: number for number, state in enumerate(order)}
-    kept, places = folded(kept)
-    return unfolded([(rank, [moved(condition, numbers) for condition in row]) for rank, row in kept], places)
-
-
-def machine_told(scope, ranks, kept):
-    """The machine of these ranks and of the conditions of these states."""
-    return ("machine", scope, tuple([(rank, tuple(row)) for rank, (_, row) in zip(ranks, kept)]))
+    numbers = {start: 0}
+    at = 0
+    while at < len(order):
+        for condition in rows[order[at]][1]:
+            for state in states_in(condition):
+                if state not in numbers:
+                    numbers[state] = len(order)
+                    order.append(state)
+        at += 1
+    kept, places = folded([rows[state] for state in order])
+    letters = range(len(kept[0][1]))
+    columns = [list(range(at * len(order), (at + 1) * len(order))) for at in letters]
+    conditions = [row[at] for at in letters for _, row in kept]
+    if order != list(range(len(order))):
+        conditions = [moved(condition, numbers) for condition in conditions]
+    return MachineDraft(scope, [rank for rank, _ in kept], places, columns, conditions)
 
 
 def press_plain(scope, rows, start):
-    """The pressed machine of states that begins with start, all of whose conditions are plain."""
-    order, leads = met_rows(rows, start)
-    ranks = [rows[state][0] for state in order]
-    if max(ranks) > 0:
-        if order != list(range(len(order))):
-            numbers = {state: number for number, state in enumerate(order)}
-            leads = [[numbers[state] for state in found] for found in leads]
-        ranks = ranks_anew(ranks, leads)
-    return machine_told(scope, ranks, numbered(rows, order))
+    """The draft of the pressed machine of such states that begins with start."""
+    draft = drafted(scope, rows, start)
+    draft.ranks = machine_ranks(draft.ranks, draft.columns, draft.conditions)
+    return draft
 
 
-def press_ranked(scope, rows):
-    """The same for states from 0 on, the ranks of which are told anew already."""
-    order = met_rows(rows, 0)[0]
-    return machine_told(scope, [rows[state][0] for state in order], numbered(rows, order))
+def told_machine(draft):
+    """The machine of a draft."""
+    conditions = [whole(condition) for condition in draft.conditions]
+    columns = [[conditions[number] for number in column] for column in draft.columns]
+    rows = []
+    for state, rank in enumerate(draft.ranks):
+        row = [column[state] for column in columns]
+        rows.append((rank, tuple([row[place] for place in draft.places])))
+    return ("machine", draft.scope, tuple(rows))
 
 
 def plain_rows(rows):
@@ -92,11 +88,11 @@ def plain_rows(rows):
 
 
 def press(scope, rows, start):
-    """The pressed machine of states that begins with start. There may be more of them than a machine has."""
+    """The draft of the pressed machine of states that begins with start."""
     return press_plain(scope, plain_rows(rows), start)
 
 
 def pressed(machine):
     """The machine with its conditions made plain, the states that can be come to, and ranks told anew."""
     check_machine(machine)
-    return press(machine[1], machine[2], 0)
+    return told_machine(press(machine[1], machine[2], 0))

@@ -2,7 +2,7 @@
 
 from allboughs.checks import ascends, is_numbers
 from allboughs.conditions import goals, moved
-from allboughs.machines import check_machine, press
+from allboughs.machines import check_machine, press, told_machine
 from allboughs.models import least_of, models_of, written
 
 WAYS = 2
@@ -114,7 +114,7 @@ def turn(machine):
     numbers = {state: at for at, state in enumerate(kept)}
     new = [numbers[stays[state]] for state in range(len(rows))]
     fewer = [(rows[state][0], [moved(condition, new) for condition in rows[state][1]]) for state in kept]
-    return press(machine[1], written_rows(fewer), 0)
+    return told_machine(press(machine[1], written_rows(fewer), 0))
 
 
 def melted(machine):

@@ -1,18 +1,19 @@
 """Models of conditions, and the condition written from models.
 
 Lots are told by masks here: numbers in which a bit is set for each pair of the lot. A lot that lies within another
-one is the lesser number then.
+one is the lesser number then. Of models the one that comes first, as tuples of pairs, is the greater number, as the
+first pair has the highest bit, and none lies within another one.
 """
 
 from allboughs.checks import ascends
-from allboughs.conditions import MOST_NODES, NO, YES, add_goals, check_condition, halved, is_lot
+from allboughs.conditions import MOST_NODES, NO, YES, check_condition, goals, halved, is_lot
 from allboughs.errors import BadLots, TooMany
 
 MOST_MODELS = 2000
 
 
 def least_of(masks):
-    """The masks, ascending, within which no other one of them lies."""
+    """The masks within which no other one of them lies, ascending if they are several."""
     if len(masks) < 2:
         return masks
     kept = []
@@ -22,50 +23,79 @@ def least_of(masks):
     return kept
 
 
-def least_masks(condition, bits):
-    """The masks of the models of a condition, where bits tells the bit of each pair."""
-    word = condition[0]
-    if word == "go":
-        return [bits[(condition[1], condition[2])]]
-    if word == "yes":
-        return [0]
-    if word == "no":
-        return []
-    mine = least_masks(condition[1], bits)
-    theirs = least_masks(condition[2], bits)
-    if (len(mine) * len(theirs) if word == "both" else len(mine) + len(theirs)) > MOST_MODELS:
-        raise TooMany(MOST_MODELS)
-    if word == "both":
-        return least_of([one | other for one in mine for other in theirs])
-    return least_of(mine + theirs)
-
-
-def plain_lots(condition, lots):
+def plain_lots(condition, bits, lots):
     """Whether a condition tells by either alone some lots of two pairs, as those of choices do; they are added."""
     word = condition[0]
     if word == "either":
-        return plain_lots(condition[1], lots) and plain_lots(condition[2], lots)
+        return plain_lots(condition[1], bits, lots) and plain_lots(condition[2], bits, lots)
     if word != "both" or condition[1][0] != "go" or condition[2][0] != "go":
         return False
-    one = condition[1][1:]
-    other = condition[2][1:]
-    lots[(one, other) if one < other else (other, one)] = True
-    return one != other
+    _, way, state = condition[1]
+    one = bits[way][state]
+    _, way, state = condition[2]
+    lots[one | bits[way][state]] = True
+    return one != bits[way][state]
+
+
+def masks_joined(word, mine, theirs):
+    """The masks of the models of both or either of two conditions, told theirs."""
+    if (len(mine) * len(theirs) if word == "both" else len(mine) + len(theirs)) > MOST_MODELS:
+        raise TooMany(MOST_MODELS)
+    told = [one | other for one in mine for other in theirs] if word == "both" else mine + theirs
+    if len(told) < 2:
+        return told
+    here = 0
+    for mask in mine:
+        here |= mask
+    beside = 0
+    for mask in theirs:
+        beside |= mask
+    # Of lots that share nothing, none of them empty, none lies within what others make.
+    return told if not here & beside and all(told) else least_of(told)
+
+
+def masks_of_each(pairs, bits):
+    """The masks of the models of the condition to go, for each of some pairs, left or right."""
+    if len(pairs) == 1:
+        return [bits[0][pairs[0][0]], bits[1][pairs[0][1]]]
+    half = (len(pairs) + 1) // 2
+    return masks_joined("both", masks_of_each(pairs[:half], bits), masks_of_each(pairs[half:], bits))
+
+
+def least_masks(condition, bits):
+    """The masks of the models of a condition, which may be a brief one, where bits tells the bit of each pair."""
+    word = condition[0]
+    if word == "any":
+        return [bits[0][left] | bits[1][right] for left, right in condition[1]]
+    if word == "both" or word == "either":
+        _, one, other = condition
+        if word == "both" and one[0] == "go" and other[0] == "go":
+            return [bits[one[1]][one[2]] | bits[other[1]][other[2]]]
+        return masks_joined(word, least_masks(one, bits), least_masks(other, bits))
+    if word == "each":
+        return masks_of_each(condition[1], bits)
+    if word == "go":
+        return [bits[condition[1]][condition[2]]]
+    return [0] if word == "yes" else []
+
+
+def masks_of_models(condition, bits):
+    """The masks of the models of what is known to be a condition, or a brief one, the models ascending."""
+    lots = {}
+    if condition[0] == "either" and plain_lots(condition, bits, lots):
+        return sorted(lots, reverse=True)
+    told = least_masks(condition, bits)
+    return sorted(told, reverse=True) if len(told) > 1 else told
 
 
 def models_of(condition):
     """The models of what is known to be a condition."""
-    if condition[0] == "go":
-        return ((condition[1:],),)
-    lots = {}
-    if plain_lots(condition, lots):
-        return tuple(sorted(lots))
-    found = {}
-    add_goals(condition, found)
-    pairs = sorted(found)
-    bits = {pair: 1 << at for at, pair in enumerate(pairs)}
-    masks = least_masks(condition, bits)
-    return tuple(sorted([tuple([pair for pair in pairs if mask & bits[pair]]) for mask in masks]))
+    pairs = sorted(set(goals(condition)))
+    bits = [{}, {}]
+    for at, (way, state) in enumerate(pairs):
+        bits[way][state] = 1 << (len(pairs) - 1 - at)
+    masks = masks_of_models(condition, bits)
+    return tuple([tuple([pair for pair in pairs if mask & bits[pair[0]][pair[1]]]) for mask in masks])
 
 
 def models(condition):

@@ -3,7 +3,6 @@
 from allboughs.checks import is_headed, is_pair, is_row
 from allboughs.circles import found_round, has_round
 from allboughs.errors import BadOutsider, OtherScope, TooMany
-from allboughs.leading import START
 from allboughs.wishes import check_wish
 from allboughs.wishgames import Judge, is_letter
 from allboughs.woods import is_scope, letters_of
@@ -43,9 +42,10 @@ class Seen:
         """Meet them at once."""
         self.rows = outsider[2]
         self.judge = Judge(wish)
-        self.pairs = {(0, START): True}
-        self.arrivals = [(0, START, 0)]
-        self.numbers = {(0, START, 0): 0}
+        start = self.judge.start
+        self.pairs = {(0, start): True}
+        self.arrivals = [(0, start, 0)]
+        self.numbers = {(0, start, 0): 0}
         self.goals = []
         known = {}
         while len(self.goals) < len(self.arrivals):

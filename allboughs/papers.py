@@ -1,38 +1,38 @@
 """Papers: finite plans by which a small judge sees whether the marks of a wood have a formula."""
 
 from allboughs.checks import is_row
-from allboughs.compiling import build_machine
+from allboughs.compiling import machine_in
 from allboughs.deciding import ONE_PLACE, TRUTHS, check_marks
 from allboughs.errors import BadPaper, BadSentence
-from allboughs.formulas import check_no_long, free_in, is_formula
+from allboughs.formulas import check_no_long, tree_of_no_long
 from allboughs.grafting import left_out
-from allboughs.playing import WORDS, board_of, is_verdict_in, verdict_in
+from allboughs.playing import MOST_STANDINGS, WORDS, Board, is_verdict_in, verdict_on
 
 
-def game_of_marks(formula, wood):
-    """The game of a formula and a wood, whose further names are left out; all errors are raised here."""
-    check_no_long(formula)
-    scope = free_in(formula)
-    check_marks(scope, wood)
-    marks = left_out(wood, tuple([name for name in wood[1] if name not in scope]))
-    return board_of(build_machine(formula), marks).told_game()
+def board_of_marks(formula, wood):
+    """The board of a formula and a wood, whose further names are left out; all errors are raised here."""
+    tree = check_no_long(formula)
+    check_marks(tree[1], wood)
+    names = tuple([name for name in wood[1] if name not in tree[1]])
+    return Board(machine_in(tree), left_out(wood, names) if names else wood, MOST_STANDINGS)
 
 
 def paper_of(formula, wood):
     """("yes", a plan of the keeper) or ("no", a plan of the breaker)."""
-    return verdict_in(game_of_marks(formula, wood))
+    return verdict_on(board_of_marks(formula, wood))
 
 
 def is_paper(formula, wood, thing):
     """Whether a value of any kind is a paper."""
-    return is_verdict_in(game_of_marks(formula, wood), thing)
+    return is_verdict_in(board_of_marks(formula, wood).told_game(), thing)
 
 
 def is_answer(sentence, thing):
     """Whether a value of any kind is ("true", plan) or ("false", plan) with a plan by which it is so."""
-    if not is_formula(sentence) or free_in(sentence):
+    tree = tree_of_no_long(sentence)
+    if tree is None or tree[1]:
         raise BadSentence("not a sentence without shorts")
-    game = game_of_marks(sentence, ONE_PLACE)
+    game = Board(machine_in(tree), ONE_PLACE, MOST_STANDINGS).told_game()
     if not is_row(thing, 2, 2) or not isinstance(thing[0], str):
         return False
     words = [word for word in WORDS if TRUTHS[word] == thing[0]]
@@ -41,12 +41,12 @@ def is_answer(sentence, thing):
 
 def standings_of(formula, wood):
     """How many rows the game of a formula and a wood has."""
-    return len(game_of_marks(formula, wood)[1])
+    return len(board_of_marks(formula, wood).codes)
 
 
 def pared(formula, wood, paper):
     """The paper without the moves to whose rows one does not come by it."""
-    game = game_of_marks(formula, wood)
+    game = board_of_marks(formula, wood).told_game()
     if not is_verdict_in(game, paper):
         raise BadPaper("not a paper")
     word, (_, side, moves) = paper

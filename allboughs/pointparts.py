@@ -25,31 +25,28 @@ class Parts:
         word = part[0]
         self.rows.append(None)
         self.worths.append(0)
-        inner = {**bound, part[1]: at} if word in BINDERS else bound
         if word in JOINTS:
-            first = self.add(part[1], inner)
-            below = (first, self.add(part[2], inner))
-        elif word == "next" or word in BINDERS:
-            below = (self.add(part[2], inner),)
+            one = self.add(part[1], bound)
+            other = self.add(part[2], bound)
+            self.rows[at] = (word, None, (one, other))
+            self.worths[at] = max(self.worths[one], self.worths[other])
+        elif word in BINDERS:
+            below = self.add(part[2], {**bound, part[1]: at})
+            self.rows[at] = (word, None, (below,))
+            worth = self.worths[below]
+            self.worths[at] = worth + (worth + (1 if word == "least" else 0)) % 2
+        elif word == "next":
+            below = self.add(part[2], bound)
+            self.rows[at] = (word, part[1], (below,))
+            self.worths[at] = self.worths[below]
         else:
-            below = ()
-        what = bound[part[1]] if word == "point" else part[-1] if not below else part[1]
-        self.rows[at] = (word, what, below)
-        worth = max([self.worths[one] for one in below], default=0)
-        self.worths[at] = worth + (worth + (1 if word == "least" else 0)) % 2 if word in BINDERS else worth
+            self.rows[at] = (word, bound[part[1]] if word == "point" else part[-1], ())
         return at
 
     def behind(self, at, worth):
         """Where opening a point comes to: the part that its binder binds, and the greatest worth passed by now."""
         binder = self.rows[at][1]
         return (self.rows[binder][2][0], max(worth, self.worths[binder]))
-
-    def opened(self, at, worth):
-        """The pairs (part, worth passed by now) to which opening a part comes at once."""
-        word, _, below = self.rows[at]
-        if word == "point":
-            return [self.behind(at, worth)]
-        return [] if word == "next" else [(part, worth) for part in below]
 
     def child_state(self, at, worth):
         """The state (part, worth) that holds at a child if this part of a next does."""
@@ -78,30 +75,43 @@ class Opening:
         self.parts = parts
         self.letter = letter
         self.known = {}
+        self.missing = []
 
     def condition_of(self, at):
         """The condition of a part, how many nodes it has, and how deep it is."""
-        todo = [(at, 0)]
+        todo = [] if (at, 0) in self.known else [(at, 0)]
         while todo:
-            pair = todo[-1]
-            needed = [one for one in self.parts.opened(pair[0], pair[1]) if one not in self.known]
-            todo.extend(needed)
-            if not needed:
-                self.known[pair] = self.opened_one(pair)
-                todo.pop()
+            self.missing = []
+            told = self.opened(todo[-1][0], todo[-1][1])
+            if self.missing:
+                todo.extend(self.missing)
+            else:
+                self.known[todo.pop()] = told
         return self.known[(at, 0)]
 
-    def opened_one(self, pair):
-        """The condition of a part, its nodes and its depth, if those to which it opens are known."""
-        at, worth = pair
+    def opened(self, at, worth):
+        """The same, if what opening its points comes to is known; otherwise that is missing, and none is told."""
         word, what, below = self.parts.rows[at]
-        inner = [self.known[one] for one in self.parts.opened(at, worth)]
         if word in JOINTS:
-            return joined(word, inner[0], inner[1])
-        if inner:
-            return inner[0]
+            one = self.opened(below[0], worth)
+            other = self.opened(below[1], worth)
+            return one if self.missing else joined(word, one, other)
+        if word in BINDERS:
+            pair = (below[0], worth)
+            if pair not in self.known:
+                told = self.opened(below[0], worth)
+                if self.missing:
+                    return None
+                self.known[pair] = told
+            return self.known[pair]
         if word == "next":
             part, passed = self.parts.child_state(below[0], worth)
             return (("go", what, passed * PARTS + part), 1, 1)
+        if word == "point":
+            behind = self.parts.behind(at, worth)
+            if behind not in self.known:
+                self.missing.append(behind)
+                return None
+            return self.known[behind]
         fine = word == "yes" or word in ("mark", "bare") and (what in self.letter) == (word == "mark")
         return (YES if fine else NO, 1, 1)

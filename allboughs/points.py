@@ -7,6 +7,7 @@ from allboughs.woods import check_wood
 from allboughs.words import is_name
 
 MOST_NODES = 4000
+TOO_MANY_NODES = 4001
 MOST_DEEP = 60
 MOST_NAMES = 3
 
@@ -19,24 +20,6 @@ DENIED = {
 }
 
 
-def is_form(part, bound):
-    """Whether it looks like a node of a points formula, whatever its parts are; bound tells which points may stand."""
-    if not isinstance(part, tuple) or not part or not isinstance(part[0], str):
-        return False
-    word = part[0]
-    if word == "yes" or word == "no":
-        return len(part) == 1
-    if word in MARKS:
-        return len(part) == 2 and is_name(part[1])
-    if word in JOINTS:
-        return len(part) == 3
-    if word == "next":
-        return len(part) == 3 and is_number(part[1], 2)
-    if word in BINDERS:
-        return len(part) == 3 and is_name(part[1])
-    return word == "point" and len(part) == 2 and is_name(part[1]) and bound.get(part[1], False)
-
-
 def parts_of(points):
     """The formulas of which it is made."""
     if points[0] in JOINTS:
@@ -44,33 +27,43 @@ def parts_of(points):
     return points[2:] if points[0] == "next" or points[0] in BINDERS else ()
 
 
-def bound_below(part, bound):
-    """Which points may stand in the parts of a formula: those for which there is a next since they were bound."""
+def bound_in(part, bound):
+    """Which points may stand in the part of a next, least or most: those for which there is a next since bound.
+
+    bound tells this of the points that are bound around it; None if it does not look like one of these.
+    """
     if part[0] == "next":
-        return {name: True for name in bound}
-    if part[0] in BINDERS:
-        return {**bound, part[1]: False}
-    return bound
+        return {name: True for name in bound} if is_number(part[1], 2) else None
+    return {**bound, part[1]: False} if is_name(part[1]) else None
+
+
+def counted(part, deep, bound, names):
+    """How many nodes a value has as a points formula no deeper than told; the names of its marks are added to a dict.
+
+    It is TOO_MANY_NODES if it is no such formula. The value may be as deep as it likes, and may be a small thing with
+    endless many nodes as they are counted, so no more of it is looked at than a formula has.
+    """
+    if not isinstance(part, tuple) or not part or not isinstance(part[0], str):
+        return TOO_MANY_NODES
+    word = part[0]
+    if len(part) == 3 and deep > 1:
+        if word in JOINTS:
+            nodes = 1 + counted(part[1], deep - 1, bound, names)
+            return nodes if nodes > MOST_NODES else nodes + counted(part[2], deep - 1, bound, names)
+        inner = bound_in(part, bound) if word == "next" or word in BINDERS else None
+        return TOO_MANY_NODES if inner is None else 1 + counted(part[2], deep - 1, inner, names)
+    if len(part) == 2 and is_name(part[1]):
+        if word in MARKS:
+            names[part[1]] = True
+            return 1
+        return 1 if word == "point" and bound.get(part[1], False) else TOO_MANY_NODES
+    return 1 if len(part) == 1 and (word == "yes" or word == "no") else TOO_MANY_NODES
 
 
 def is_points(thing):
-    """Whether a value of any kind is a points formula.
-
-    It is looked at without calls of itself, and no further than a formula can go.
-    """
-    todo = [(thing, 1, {})]
+    """Whether a value of any kind is a points formula."""
     names = {}
-    nodes = 0
-    while todo:
-        part, deep, bound = todo.pop()
-        nodes += 1
-        if nodes > MOST_NODES or deep > MOST_DEEP or not is_form(part, bound):
-            return False
-        if part[0] in MARKS:
-            names[part[1]] = True
-        inner = bound_below(part, bound)
-        todo.extend([(below, deep + 1, inner) for below in parts_of(part)])
-    return len(names) <= MOST_NAMES
+    return counted(thing, MOST_DEEP, {}, names) <= MOST_NODES and len(names) <= MOST_NAMES
 
 
 def check_points(points):

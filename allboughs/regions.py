@@ -55,6 +55,8 @@ class Arena:
 
         Its rows, but for the aims, get a pick that leads there.
         """
+        sides = self.sides
+        depths = self.depths
         drawn = list(aims)
         met = {row: True for row in aims}
         left = {}
@@ -63,9 +65,9 @@ class Arena:
             aim = drawn[at]
             at += 1
             for row in self.sources[aim]:
-                if self.depths[row] != depth or row in met:
+                if depths[row] != depth or row in met:
                     continue
-                if self.sides[row] == side:
+                if sides[row] == side:
                     self.picks[row] = aim
                 else:
                     if row not in left:
@@ -93,32 +95,41 @@ class Arena:
                 self.sink(rest, depth + 1)
                 heads, side = self.heads_of(rest)
                 drawn = self.drawn_in(side, heads, depth + 1)
-                taken = {row: True for row in drawn}
-                inner = [row for row in rest if row not in taken]
-                self.sink(inner, depth + 2)
-                self.settle(inner, depth + 2)
-                self.sink(inner, depth + 1)
-                lost = [row for row in inner if self.winners[row] != side]
-                away = self.drawn_in(1 - side, lost, depth + 1)
-                self.take(away, 1 - side, depth)
-                rest = [row for row in rest if self.depths[row] != depth]
-                if len(away) == len(lost):
+                lost = self.lost_beside(rest, drawn, side, depth + 1) if len(drawn) < len(rest) else []
+                if lost:
+                    away = self.drawn_in(1 - side, lost, depth + 1)
+                    self.take(away, 1 - side, depth)
+                    rest = [row for row in rest if self.depths[row] != depth]
+                if not lost or len(away) == len(lost):
                     self.give(drawn, heads, side, depth + 1)
                     rest = []
             self.close(part, depth)
+
+    def lost_beside(self, rest, drawn, side, depth):
+        """Those of the rows that are not drawn from which the side does not win if what is drawn is left out."""
+        taken = {row: True for row in drawn}
+        inner = [row for row in rest if row not in taken]
+        self.sink(inner, depth + 1)
+        self.settle(inner, depth + 1)
+        self.sink(inner, depth)
+        return [row for row in inner if self.winners[row] != side]
 
     def close(self, part, depth):
         """Settle what can be drawn to rows of a part, all of which are won by now, and the part itself."""
         self.sink(part, depth)
         for side in (0, 1):
             won = [row for row in part if self.winners[row] == side]
-            self.take(self.drawn_in(side, won, depth), side, SETTLED)
+            if won:
+                self.take(self.drawn_in(side, won, depth), side, SETTLED)
 
     def heads_of(self, rows):
         """The rows with ranks above all those of the other kind, and the side that likes them."""
         ranks = [self.ranks[row] for row in rows]
         side = max(ranks) % 2
-        worst = max([rank for rank in ranks if rank % 2 != side], default=-1)
+        others = [rank for rank in ranks if rank % 2 != side]
+        if not others:
+            return rows, side
+        worst = max(others)
         return [row for row in rows if self.ranks[row] > worst], side
 
     def sink(self, rows, depth):

@@ -2,7 +2,7 @@
 
 from allboughs.conditions import MOST_DEEP, MOST_NODES, MOST_STATES, goals
 from allboughs.errors import TooMany
-from allboughs.machines import press_plain
+from allboughs.machines import press_plain, told_machine
 from allboughs.roadconditions import AtLetter, told_by
 from allboughs.roadparts import Roads
 from allboughs.roads import check_roads, marks_in
@@ -44,4 +44,4 @@ def machine_of_roads(roads):
                 states.append(goal)
         if len(states) > MOST_STATES:
             raise TooMany(MOST_STATES)
-    return press_plain(scope, rows, 0)
+    return told_machine(press_plain(scope, rows, 0))

@@ -1,32 +1,23 @@
 """Whether two formulas mean one: bars that show it, or a wood on which one of them holds alone."""
 
-from allboughs.building import combined, contrary_of, widened_to
 from allboughs.checks import is_row
-from allboughs.chosen import chosen_of
-from allboughs.compiling import build_machine
-from allboughs.deciding import scope_of_both
+from allboughs.choices import told_choices
+from allboughs.deciding import drafts_of, odds_draft
 from allboughs.emptying import bar, is_bar, wood_in
 from allboughs.formulas import check_no_long
+from allboughs.machines import told_machine
 from allboughs.playing import lets_marks_by
 from allboughs.woods import is_wood
 
 
-def check_both(one, other):
-    """Raise the errors of functions of two formulas but for TooMany; told is the scope of both."""
-    check_no_long(one)
-    check_no_long(other)
-    return scope_of_both(one, other)
-
-
 def odds_of(mine, theirs):
     """The choices that let by just the woods that the one machine lets by and the other one does not."""
-    return chosen_of(combined("both", mine, contrary_of(theirs)))
+    return told_choices(odds_draft(mine, theirs))
 
 
 def machines_of(one, other):
-    """The machines of two formulas, widened to the free names of both."""
-    scope = check_both(one, other)
-    return widened_to(build_machine(one), scope), widened_to(build_machine(other), scope)
+    """The drafts of the machines of two formulas, widened to the free names of both."""
+    return drafts_of(check_no_long(one), check_no_long(other))
 
 
 def odds_both_ways(machines):
@@ -65,7 +56,9 @@ def is_sameness(one, other, thing):
     if not is_row(thing, 2, 2) or not isinstance(thing[0], str) or thing[0] != "parted" or not is_wood(thing[1]):
         return False
     wood = thing[1]
-    return wood[1] == mine[1] and lets_marks_by(machines[0], wood) != lets_marks_by(machines[1], wood)
+    if wood[1] != mine[1]:
+        return False
+    return lets_marks_by(told_machine(machines[0]), wood) != lets_marks_by(told_machine(machines[1]), wood)
 
 
 def nodes_told(one, other):

@@ -6,7 +6,10 @@ with a state of the lot barred is none that the picker takes.
 """
 
 from allboughs.picking import Picking
+from allboughs.ranking import mask_of
 
+# With fewer ranks than these it is told rank by rank.
+FEW_RANKS = 4
 # With more pairs than these the game is settled in another way, which takes longer for few of them.
 FEW = 20000
 
@@ -101,6 +104,97 @@ class Useful:
         inside = (1 << len(self.ranks)) - 1
         stuck = self.refuser_draws(0, inside, 0)
         return self.won(inside & ~stuck, stuck)
+
+
+def lists_within(pairs, inside):
+    """The mask of the lists with a pair of states inside, where pairs tells the masks of the pairs of each list."""
+    away = ~inside
+    told = 0
+    for at, masks in enumerate(pairs):
+        for pair in masks:
+            if not pair & away:
+                told |= 1 << at
+                break
+    return told
+
+
+class Levels:
+    """Tells which states with few ranks are useful, rank by rank; for many ranks that would take too long.
+
+    rows has for each state the mask of its lists, pairs for each list the masks of its pairs.
+    """
+
+    def __init__(self, ranks, rows, pairs):
+        """Keep it all, and the states with each rank."""
+        self.rows = rows
+        self.pairs = pairs
+        self.by_rank = [[] for _ in range(max(ranks) + 1)]
+        for state, rank in enumerate(ranks):
+            self.by_rank[rank].append(state)
+
+    def within(self, states, inside):
+        """Those of some states that have a pair of states inside."""
+        fine = lists_within(self.pairs, inside)
+        return [state for state in states if self.rows[state] & fine]
+
+    def staying(self, states, goal):
+        """The mask of the goal and of those of some states from which the picker stays among these or comes to it."""
+        inside = goal | mask_of(states)
+        stay = self.within(states, inside)
+        while len(stay) < len(states):
+            states = stay
+            inside = goal | mask_of(states)
+            stay = self.within(states, inside)
+        return inside
+
+    def coming(self, states, goal):
+        """The mask of the goal and of those of some states from which the picker can come to it."""
+        states = [state for state in states if not goal >> state & 1]
+        while states:
+            found = self.within(states, goal)
+            if not found:
+                return goal
+            goal |= mask_of(found)
+            states = [state for state in states if not goal >> state & 1]
+        return goal
+
+    def low(self, goal):
+        """The mask of the goal and of the states of the ranks 0 and 1 from which the picker comes to it or wins."""
+        idle = self.by_rank[0]
+        lower = [state for states in self.by_rank[:2] for state in states]
+        told = self.coming(lower, goal) if goal else 0
+        while True:
+            inside = self.staying([state for state in idle if not told >> state & 1], told)
+            if inside == told:
+                return told
+            told = self.coming(lower, inside)
+
+    def won(self, top, goal):
+        """The same for all states whose ranks are not above top: from those of this rank a pair leads to all told."""
+        if top < 2:
+            return self.low(goal)
+        inside = 0 if top % 2 else (1 << len(self.rows)) - 1
+        told = self.won(top - 1, goal | mask_of(self.within(self.by_rank[top], inside)))
+        while told != inside:
+            inside = told
+            if top % 2 == 0 and top == len(self.by_rank) - 1:
+                # There will never be more, so pairs with others are of no use.
+                self.pairs = [[pair for pair in masks if not pair & ~inside] for masks in self.pairs]
+            told = self.won(top - 1, goal | mask_of(self.within(self.by_rank[top], inside)))
+        return told
+
+
+def useful_mask(ranks, rows, pairs):
+    """The mask of the useful states, told the mask of the lists of each, and the masks of the pairs of each list."""
+    if max(ranks) < FEW_RANKS:
+        return Levels(ranks, rows, pairs).won(max(ranks), 0)
+    options = []
+    for row in rows:
+        options.append(list({pair: True for at, masks in enumerate(pairs) if row >> at & 1 for pair in masks}))
+    if sum([len(masks) for masks in options]) > FEW:
+        told = [[(mask.bit_length() - 1, (mask & -mask).bit_length() - 1) for mask in masks] for masks in options]
+        return mask_of([state for state, wins in enumerate(Picking(ranks, told).wins) if wins])
+    return Useful(ranks, options).all_useful()
 
 
 def picked_pairs(ranks, options):

@@ -1,7 +1,7 @@
 """The game of a wish: a maker puts a letter, then a way is taken, and a history judges all traces along the road."""
 
 from allboughs.errors import TooMany
-from allboughs.leading import START, Leader
+from allboughs.leading import Leader
 from allboughs.regions import Arena
 from allboughs.woods import MOST_NODES, least_rows, letters_of, walked
 
@@ -17,18 +17,17 @@ class Judge:
     """Leads histories, as the module leading tells them, by the steps of the letters and ways of a wish."""
 
     def __init__(self, wish):
-        """Make the steps, and the moves of all states."""
-        self.ranks = tuple([rank for rank, _ in wish[2]])
-        self.leader = Leader(self.ranks)
+        """Make the steps: for each letter and way the mask of the goals of each state."""
+        self.leader = Leader([rank for rank, _ in wish[2]])
+        self.start = self.leader.start
         self.moves = []
         for letter in range(1 << len(wish[1])):
-            left = [self.leader.move(goals[letter][0]) for _, goals in wish[2]]
-            self.moves.append((left, [self.leader.move(goals[letter][1]) for _, goals in wish[2]]))
+            left = [self.leader.mask(goals[letter][0]) for _, goals in wish[2]]
+            self.moves.append((left, [self.leader.mask(goals[letter][1]) for _, goals in wish[2]]))
 
     def lead_on(self, history, letter, way):
         """The history behind the step of a letter and a way, and the rank that is told."""
-        moves = self.moves[letter][way]
-        return self.leader.lead_on(history, [moves[state] for state in history[0]])
+        return self.leader.lead_on(history, self.moves[letter][way])
 
 
 class WishGame:
@@ -44,8 +43,8 @@ class WishGame:
         self.scope = wish[1]
         self.known = letters_of(wish[1])
         self.judge = Judge(wish)
-        self.histories = [START]
-        self.numbers = {START: 0}
+        self.histories = [self.judge.start]
+        self.numbers = {self.judge.start: 0}
         self.onward = []
         while len(self.onward) < len(self.histories):
             history = self.histories[len(self.onward)]

@@ -12,14 +12,12 @@ def is_scope(thing):
     return is_row(thing, 0, 3) and all(is_name(name) for name in thing) and ascends(thing)
 
 
-def letter_at(scope, number):
-    """The letter of a scope with this number: its i-th name is in it if the bit i of the number is set."""
-    return tuple([name for at, name in enumerate(scope) if number >> at & 1])
-
-
 def letters_of(scope):
-    """The letters of what is known to be a scope."""
-    return tuple([letter_at(scope, number) for number in range(1 << len(scope))])
+    """The letters of what is known to be a scope: those without its last name, then those with it."""
+    told = [()]
+    for name in scope:
+        told = told + [letter + (name,) for letter in told]
+    return tuple(told)
 
 
 def letters(scope):
@@ -31,11 +29,14 @@ def letters(scope):
 
 def is_node(thing, known, many):
     """Whether it is a node with one of the known letters that leads to two of so many nodes."""
-    if not is_row(thing, 3, 3):
+    if not isinstance(thing, tuple) or len(thing) != 3:
         return False
     letter, left, right = thing
-    if not isinstance(letter, tuple) or not all(isinstance(name, str) for name in letter):
+    if not isinstance(letter, tuple):
         return False
+    for name in letter:
+        if not isinstance(name, str):
+            return False
     return letter in known and is_number(left, many) and is_number(right, many)
 
 
@@ -47,7 +48,10 @@ def is_wood(thing):
     if not is_row(rows, 1, MOST_NODES):
         return False
     known = letters_of(thing[1])
-    return all(is_node(row, known, len(rows)) for row in rows)
+    for row in rows:
+        if not is_node(row, known, len(rows)):
+            return False
+    return True
 
 
 def check_wood(wood):

@@ -10,4 +10,4 @@ def is_name(thing):
     """Whether a value of any kind is a name."""
     if not isinstance(thing, str) or not 1 <= len(thing) <= 8 or thing in KEPT:
         return False
-    return all("a" <= sign <= "z" for sign in thing)
+    return thing.isascii() and thing.isalpha() and thing.islower()

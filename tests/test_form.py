@@ -13,7 +13,7 @@ ALLOWED = set(
 CALLED = set(
     """append clear copy count endswith extend find get index insert isalnum isalpha isdigit islower isspace isupper items
     join keys ljust lower lstrip partition pop remove replace reverse rfind rjust rpartition rsplit rstrip setdefault split
-    splitlines startswith strip update upper values zfill bit_length add discard sort""".split())
+    splitlines startswith strip update upper values zfill bit_length add discard sort isascii""".split())
 AT_ONCE = ("zip", "enumerate", "reversed")
 TAKERS = ("list", "tuple", "dict", "sorted", "sum", "any", "all", "enumerate", "zip", "min", "max")
 WORDS = set(

@@ -112,12 +112,12 @@ INTERFACE = {
 }
 # The classes of the interface, each with its methods.
 CLASSES = {"desk": {"Desk": {"say": "row", "kept": ""}}}
-ORDER = """errors checks words woods conditions ranking folding machines building choices steps histories models leading chosen
-shortforms formulas circles promoting regions picking usefulness guides hiding emptying covering pruning shortmeanings shorts compiling
-grafting games
-playing deciding markings fillings texts woodrows desk drawing tableparts tables easing fewest naming forms inclusion
-laying leastwoods lifting leveling levels wishes wishgames pairgames makers melting rounds outsiders papers pointsets points
-roadsets roads plainroads pointparts unfolding pointing pumping roadparts roadconditions roadmachines sameness spelling wishing
+ORDER = """errors checks words woods conditions briefs ranking drafts folding machines building choices steps histories models
+leading chosen shortforms formulas circles promoting regions picking usefulness guides hiding emptying covering pruning
+shortmeanings shorts compiling grafting games winning playing deciding markings fillings texts woodrows desk drawing tableparts
+tables easing fewest naming forms inclusion laying leastwoods lifting leveling levels wishes wishgames pairgames makers melting
+rounds outsiders papers pointsets points roadsets roads plainroads pointparts unfolding pointing pumping roadparts
+roadconditions roadmachines sameness spelling wishing
 worths""".split()
 
 WOOD = ("wood", ("x",), ((("x",), 0, 1), ((), 1, 1)))
