@@ -36,6 +36,19 @@ def goes_in(conditions, shift):
     return told
 
 
+def mask_in(condition):
+    """The mask of the states of the goes of a condition."""
+    word = condition[0]
+    if word == "any" or word == "each":
+        mask = 0
+        for left, right in condition[1]:
+            mask |= 1 << left | 1 << right
+        return mask
+    if word == "go":
+        return 1 << condition[2]
+    return mask_in(condition[1]) | mask_in(condition[2]) if word == "both" or word == "either" else 0
+
+
 def moved_brief(condition, numbers):
     """The condition with each go to q told as a go to numbers[q]."""
     word = condition[0]

@@ -18,10 +18,10 @@ STAY = ("any", ((0, 0),))
 class Growth:
     """The states of the choices as they are met: a history, as the module leading tells it, and a rank.
 
-    columns has for each letter the models of each state, masks of the states left above those of the states right,
-    and the masks of the states that have no model, and of those that have several. heard has for the nests of a
-    history, and for what a step leads to, the number of the state behind it. straight tells whether states are met in
-    the sequence of the pairs of lists as well.
+    models has for each condition its models, masks of the states left above those of the states right. columns has
+    for each letter the conditions of the states, and the masks of the states without models, and with several. heard
+    has for the nests of a history, and for what a step leads to, the number of the state behind it. straight tells
+    whether states are met in the sequence of the pairs of lists as well.
     """
 
     def __init__(self, draft):
@@ -29,24 +29,25 @@ class Growth:
         self.leader = Leader(draft.ranks)
         self.half = len(draft.ranks)
         bits = [[bit << self.half for bit in self.leader.bits], self.leader.bits]
-        models = [masks_of_models(condition, bits) for condition in draft.conditions]
-        self.columns = [self.column_of(column, models) for column in draft.columns]
+        self.models = [masks_of_models(condition, bits) for condition in draft.conditions]
+        self.columns = [self.asked(column) for column in draft.columns]
         self.states = [(self.leader.start, 0)]
         self.met = {self.states[0]: 0}
         self.heard = {}
         self.lists = {}
         self.straight = True
 
-    def column_of(self, column, models):
-        """What a letter asks of each state, told the models of all conditions."""
+    def asked(self, column):
+        """What a letter asks of the states."""
         shut = 0
         loose = 0
         for at, bit in zip(column, self.leader.bits):
-            if not models[at]:
-                shut |= bit
-            elif len(models[at]) > 1:
+            many = len(self.models[at])
+            if many > 1:
                 loose |= bit
-        return [models[at] for at in column], shut, loose
+            elif many == 0:
+                shut |= bit
+        return column, shut, loose
 
     def number(self, homes, led):
         """The number of the state behind a step, which is met now if it was not met yet."""
@@ -58,7 +59,7 @@ class Growth:
             self.states.append(state)
         return self.met[state]
 
-    def guesses(self, spreads, models):
+    def guesses(self, spreads, column):
         """What all guesses lead to, each told where it stands first, if there are not too many of them.
 
         spreads has for each reached state the number that brings the goals of its models where they belong.
@@ -67,7 +68,7 @@ class Growth:
         led = 0
         several = []
         for state, spread in spreads:
-            options = models[state]
+            options = self.models[column[state]]
             if len(options) == 1:
                 led |= options[0] * spread
             else:
@@ -113,15 +114,16 @@ class Growth:
             self.heard[homes] = {}
         heard = self.heard[homes]
         told = []
-        for models, shut, loose in self.columns:
+        models = self.models
+        for column, shut, loose in self.columns:
             if goals & shut:
                 pairs = ()
             elif goals & loose:
-                pairs = self.list_of(self.guesses(spreads, models), sides, homes, heard)
+                pairs = self.list_of(self.guesses(spreads, column), sides, homes, heard)
             else:
                 guess = 0
                 for state, spread in spreads:
-                    guess |= models[state][0] * spread
+                    guess |= models[column[state]][0] * spread
                 left = guess >> self.half & sides
                 if left not in heard:
                     heard[left] = self.number(homes, left)

@@ -81,6 +81,8 @@ def way_back(start, clump, goals):
 
 def found_round(ranks, goals, odd):
     """A round of unlike rows with an odd greatest rank, or, if odd is 0, with an even one; None if there is none."""
+    if not any(rank % 2 == odd for rank in ranks):
+        return None
     todo = [list(range(len(ranks)))]
     while todo:
         walk = Walk(todo.pop(), goals)

@@ -7,7 +7,7 @@ from allboughs.building import contrary_draft, joint_draft, reached_draft, widen
 from allboughs.choices import machine_draft, told_choices
 from allboughs.chosen import chosen_draft
 from allboughs.conditions import CONTRARIES, NO, to_both
-from allboughs.drafts import MachineDraft, refolded
+from allboughs.drafts import MachineDraft
 from allboughs.formulas import JOINTS, check_formula, scope_of_names
 from allboughs.hiding import hidden_draft
 from allboughs.machines import told_machine
@@ -36,6 +36,16 @@ def right_goals(state, x, y):
     return (0, x) if y == state else None
 
 
+# The drafts of these machines, with x ahead of y: places, columns, conditions; "one" is left or right of one name, for
+# which the state in which marks are due is never met.
+SHAPES = {
+    "sub": ((0, 1, 0, 0), ((0,), (1,)), (("any", ((0, 0),)), ("no",))),
+    "sub one": ((0, 0), ((0,),), (("any", ((0, 0),)),)),
+    "root": ((0, 1), ((0, 1), (1, 0)), (("no",), ("any", ((1, 1),)))),
+    "left": ((0, 1, 2, 3), ((0, 1), (2, 1), (1, 0), (1, 2)), (("any", ((0, 0),)), ("no",), ("any", ((1, 0),)))),
+    "right": ((0, 1, 2, 3), ((0, 1), (2, 1), (1, 0), (1, 2)), (("any", ((0, 0),)), ("no",), ("any", ((0, 1),)))),
+    "one": ((0, 1), ((0,), (1,)), (("any", ((0, 0),)), ("no",))),
+}
 GOALS = {"sub": sub_goals, "root": root_goals, "left": left_goals, "right": right_goals}
 STATES = {"sub": 1, "root": 2, "left": 2, "right": 2}
 
@@ -68,15 +78,12 @@ def draft_of_atom(atom, scope):
     word = atom[0]
     if word not in STATES:
         return reached_draft(hand(atom))
-    # If left or right have one name alone, the state in which its marks are due is never met.
-    states = STATES[word] if word == "root" or len(scope) == 2 else 1
-    numbers = {}
-    columns = []
-    for column in goals_of_atom(atom, scope, states):
-        columns.append([numbers.setdefault(goals, len(numbers)) for goals in column])
-    places, columns = refolded(list(range(len(columns))), columns)
-    conditions = [NO if goals is None else ("any", (goals,)) for goals in numbers]
-    return MachineDraft(scope, [0] * states, places, columns, conditions)
+    shape = word if word == "root" or len(scope) == 2 else "sub one" if word == "sub" else "one"
+    places, columns, conditions = SHAPES[shape]
+    if len(scope) == 2 and atom[1] != scope[0]:
+        places = (places[0], places[2], places[1], places[3])
+    columns = [list(column) for column in columns]
+    return MachineDraft(scope, [0] * len(columns[0]), places, columns, list(conditions))
 
 
 def some_not(tree):

@@ -224,7 +224,8 @@ class Many:
                 filled |= bit
             bit <<= 1
         for at in held:
-            self.fitting[at] = {**self.fitting[at], **held} if at in self.fitting else held
+            others = self.fitting.get(at, held)
+            self.fitting[at] = {**others, **held}
         if filled < bit - 1:
             self.covers = [mask & filled if at in held else mask for mask, at in zip(self.covers, column)]
         return held

@@ -4,8 +4,8 @@ A thing is a condition of a machine, or a list of choices. For some letters, one
 has for each state the number of a thing; letters of one column have the same things for all states.
 """
 
-from allboughs.briefs import goes_in
-from allboughs.ranking import mask_of, ranks_anew
+from allboughs.briefs import mask_in
+from allboughs.ranking import ranks_anew
 
 
 class MachineDraft:
@@ -103,7 +103,7 @@ def machine_ranks(ranks, columns, conditions):
     """The ranks of the states of a machine told anew."""
     if max(ranks) == 0:
         return ranks
-    return ranks_anew(ranks, masks_of(columns, [mask_of(states) for states in goes_in(conditions, 0)]))
+    return ranks_anew(ranks, masks_of(columns, [mask_in(condition) for condition in conditions]))
 
 
 def choices_ranks(ranks, columns, lists):

@@ -6,7 +6,7 @@ from allboughs.deciding import cut_down, scope_of_both
 from allboughs.errors import BadMany, BadScope, TooMany
 from allboughs.formulas import check_no_long
 from allboughs.playing import lets_marks_by
-from allboughs.woods import is_scope, least_rows, letters_of, walked
+from allboughs.woods import is_scope, least_rows, letters_of
 
 MOST_NODES = 3
 MOST_WOODS = 6000

@@ -4,7 +4,7 @@ A name or two are enough for all points, as what is put into a formula binds all
 """
 
 from allboughs.errors import BadPlain, BadShort
-from allboughs.points import BINDERS, contrary_of
+from allboughs.points import contrary_of
 from allboughs.roads import JOINTS, MARKS, check_roads
 from allboughs.shortforms import looks_short
 

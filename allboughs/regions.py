@@ -90,6 +90,9 @@ class Arena:
         """
         for clump in Walk(rows, self.goals).clumps:
             part = [row for row in clump if self.depths[row] == depth]
+            if len(part) == 1:
+                self.settle_one(part[0], depth)
+                continue
             rest = part
             while rest:
                 self.sink(rest, depth + 1)
@@ -104,6 +107,13 @@ class Arena:
                     self.give(drawn, heads, side, depth + 1)
                     rest = []
             self.close(part, depth)
+
+    def settle_one(self, row, depth):
+        """Settle a row that leads to itself, and else to no row of this depth, and what can be drawn to it."""
+        side = self.ranks[row] % 2
+        if self.sides[row] == side:
+            self.picks[row] = row
+        self.take(self.drawn_in(side, [row], depth), side, SETTLED)
 
     def lost_beside(self, rest, drawn, side, depth):
         """Those of the rows that are not drawn from which the side does not win if what is drawn is left out."""
