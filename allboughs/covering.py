@@ -4,6 +4,8 @@ from allboughs.drafts import masks_in
 
 # With more states than these all that may cover them are looked at together.
 FEW_STATES = 12
+# With more unlike pairs than these it is done letter by letter.
+FEW_PAIRS = 1000
 
 
 def worth_of(rank):
@@ -170,6 +172,16 @@ def all_with(masks, states):
     return told
 
 
+def fitting_in(group):
+    """For each list in some columns, told the states with each list there, the lists beside it, as a dict."""
+    told = {}
+    for held in group:
+        for at in held:
+            others = told.get(at, held)
+            told[at] = {**others, **held}
+    return told
+
+
 class Many:
     """The same for many states.
 
@@ -180,7 +192,6 @@ class Many:
     def __init__(self, ranks, columns, lists):
         """Find the relation: the greatest one at first, narrowed again and again."""
         self.lists = lists
-        self.columns = columns
         self.bits = {}
         self.codes = [self.code_of(pairs) for pairs in lists]
         self.lefts = {}
@@ -192,15 +203,31 @@ class Many:
         self.idle = False
         self.uppers = {}
         self.fates = {}
-        # For each list with pairs those lists beside it in a column that may have a pair above each of its pairs.
-        self.fitting = {}
-        self.held = [self.states_with(column) for column in columns]
-        stale = (1 << len(self.bits)) - 1
-        while stale:
-            self.tell_upper(stale)
-            fewer = self.less_fitting(stale)
-            changed = self.narrow(fewer) if fewer else 0
-            stale = all_with(self.lefts, changed) | all_with(self.rights, changed) if changed else 0
+        self.stale = (1 << len(self.bits)) - 1
+        held = [self.states_with(column) for column in columns]
+        self.narrow_all([held] if len(self.bits) <= FEW_PAIRS else [[states] for states in held])
+
+    def narrow_all(self, groups):
+        """Narrow the relation until nothing narrows it, told groups of columns, each the states with each list there.
+
+        The columns of a group are looked at together, which takes long for many pairs if it is the first time.
+        """
+        # For each list in a group those lists beside it that may have a pair above each of its pairs.
+        fitting = [fitting_in(group) for group in groups]
+        waiting = [self.stale] * len(groups)
+        while any(waiting):
+            for at, group in enumerate(groups):
+                asked = waiting[at]
+                if asked:
+                    waiting[at] = 0
+                    self.tell_upper()
+                    fewer = self.less_fitting(fitting[at], asked)
+                    fitting[at].update(fewer)
+                    changed = self.narrow(group, fewer)
+                    if changed:
+                        more = all_with(self.lefts, changed) | all_with(self.rights, changed)
+                        self.stale |= more
+                        waiting = [mask | more for mask in waiting]
 
     def code_of(self, pairs):
         """The mask of the pairs of a list."""
@@ -223,20 +250,17 @@ class Many:
                 held[at] = held.get(at, 0) | bit
                 filled |= bit
             bit <<= 1
-        for at in held:
-            others = self.fitting.get(at, held)
-            self.fitting[at] = {**others, **held}
         if filled < bit - 1:
             self.covers = [mask & filled if at in held else mask for mask, at in zip(self.covers, column)]
         return held
 
-    def tell_upper(self, stale):
-        """Tell anew which pairs are above these."""
+    def tell_upper(self):
+        """Tell anew which pairs are above those that are stale: of their states fewer cover them now."""
         covers = self.covers
         lefts = {}
         rights = {}
         for pair, bit in self.bits.items():
-            if stale & bit:
+            if self.stale & bit:
                 one = covers[pair[0]]
                 other = covers[pair[1]]
                 if one not in lefts:
@@ -244,15 +268,16 @@ class Many:
                 if other not in rights:
                     rights[other] = all_with(self.rights, other)
                 self.uppers[pair] = lefts[one] & rights[other]
+        self.stale = 0
 
-    def less_fitting(self, stale):
+    def less_fitting(self, fitting, asked):
         """The lists with these pairs for which fewer ones have a pair above each of theirs, as a dict with these."""
         codes = self.codes
         uppers = self.uppers
         found = {}
-        for at, others in self.fitting.items():
-            if codes[at] & stale and len(others) > 1:
-                wanted = [uppers[pair] for pair in self.lists[at]]
+        for at, others in fitting.items():
+            if codes[at] & asked and len(others) > 1:
+                wanted = list({uppers[pair]: True for pair in self.lists[at]})
                 kept = []
                 for other in others:
                     code = codes[other]
@@ -263,14 +288,15 @@ class Many:
                         kept.append(other)
                 if len(kept) < len(others):
                     found[at] = kept
-        self.fitting.update(found)
         return found
 
-    def narrow(self, lists):
+    def narrow(self, group, lists):
         """Narrow what covers the states with these lists; told is the mask of the states of which it is less now."""
+        if not lists:
+            return 0
         covers = self.covers
         changed = 0
-        for held in self.held:
+        for held in group:
             for at, states in held.items():
                 if at in lists:
                     fine = 0

@@ -90,6 +90,8 @@ def masks_of_models(condition, bits):
 
 def models_of(condition):
     """The models of what is known to be a condition."""
+    if condition[0] == "go":
+        return ((condition[1:],),)
     pairs = sorted(set(goals(condition)))
     bits = [{}, {}]
     for at, (way, state) in enumerate(pairs):

@@ -14,8 +14,8 @@ from allboughs.plainroads import pointed
 from allboughs.playing import lets_by
 from allboughs.pointing import machine_of_points
 from tests.drawing_lots import Lots
+from tests.lots_of_formulas import all_shorts, joined_rows, some_chains, some_then_all
 from tests.support import Case, some_wood_of
-from tests.test_same_values import all_shorts, joined_rows, some_chains, some_then_all
 
 SENTENCE = (
     "both", ("some", "aq", ("both", ("root", "aq"), ("some", "bq", ("both", ("left", "aq", "bq"), ("some", "aq", (

@@ -3,13 +3,17 @@
 import itertools
 import time
 
-from allboughs.briefs import flipped_brief, goes_in, moved_brief, whole
+from allboughs.briefs import brief_list, flipped_brief, goes_in, mask_in, moved_brief, whole
 from allboughs.building import contrary, joint_draft, joining, meeting, reached_draft, widened, widened_draft
 from allboughs.choices import as_machine, choices_draft, machine_draft, tidied, told_choices
+from allboughs.chosen import chosen, chosen_draft
+from allboughs.compiling import draft_of_atom, machine_of
 from allboughs.conditions import flipped, is_condition, moved, plain
-from allboughs.covering import Few, Many, is_idle, worth_of
+from allboughs.covering import FEW_PAIRS, Few, Many, is_idle, worth_of
+from allboughs.drafts import MachineDraft
 from allboughs.errors import TooMany
 from allboughs.folding import folded, unfolded
+from allboughs.formulas import free_names
 from allboughs.hiding import hidden, hidden_draft
 from allboughs.histories import first, led, runners
 from allboughs.leading import Leader
@@ -17,12 +21,14 @@ from allboughs.machines import drafted, plain_rows, press, press_plain, pressed,
 from allboughs.models import masks_of_models, models
 from allboughs.picking import Picking
 from allboughs.playing import Board
-from allboughs.pruning import merged, pruned
+from allboughs.pruning import merged, pruned, pruned_draft
 from allboughs.ranking import circles, ranks_anew
 from allboughs.regions import Arena
+from allboughs.shorts import hand
 from allboughs.usefulness import picked_pairs, useful_mask
 from allboughs.winning import keeper_wins
 from tests.judging import has_round
+from tests.lots_of_formulas import all_shorts
 from tests.support import Case, dice, held, kept_spots, some_choices, some_condition, some_machine, some_step, some_wood_of
 
 
@@ -203,6 +209,19 @@ class States(Case):
         self.assertGreater(met, 100)
         self.assertGreater(min(idle, 400 - idle), 100)
 
+    def test_covers_of_many_pairs(self):
+        """With very many pairs covers are told letter by letter."""
+        chance = dice(695)
+        for _ in range(4):
+            choices = some_choices(chance, ("x",), 45, 2, 60)
+            doubled = ("choices", ("x",), choices[2] + tuple((rank, lists) for rank, lists in choices[2][:4]))
+            draft = choices_draft(doubled)
+            many = Many(draft.ranks, draft.columns, draft.lists)
+            few = Few(draft.ranks, draft.columns, draft.lists)
+            self.assertFalse(few.idle)
+            self.assertEqual(many.covers, few.covers)
+            self.assertGreater(len(many.bits), FEW_PAIRS)
+
     def test_merged_states(self):
         """Of states that cover one another the least one stays, of pairs those that no other one of the list covers."""
         chance = dice(691)
@@ -265,6 +284,30 @@ class Machines(Case):
                 self.assertEqual(joint, function(one, other))
                 self.assertEqual(function(pressed(one), pressed(other)), joint)
 
+    def test_drafts_of_atoms(self):
+        """The drafts drawn by hand are those of the machines of [54], pressed; hands of shorts are pressed already."""
+        atoms = [("root", name) for name in ("a", "b")]
+        for word in ("sub", "left", "right"):
+            atoms.extend((word, one, other) for one in ("a", "b") for other in ("a", "b"))
+        for atom in atoms:
+            told = told_machine(draft_of_atom(atom, free_names(atom)))
+            self.assertEqual(told, pressed(machine_of(atom)), atom)
+            self.assertEqual(told, pressed(told), atom)
+        for short in all_shorts("x", "y"):
+            self.assertEqual(pressed(hand(short)), hand(short))
+            self.assertEqual(told_machine(draft_of_atom(short, free_names(short))), hand(short))
+
+    def test_constant_choices(self):
+        """Machines of one state that goes on for ever, or nowhere, whatever the letters are."""
+        stay, no = ("both", ("go", 0, 0), ("go", 1, 0)), ("no",)
+        for row in itertools.product((stay, no), repeat=4):
+            machine = ("machine", ("x", "y"), ((0, row),))
+            expected = ("choices", ("x", "y"), ((0, tuple(((0, 0),) if one == stay else () for one in row)),))
+            self.assertEqual(chosen(machine), expected)
+            brief = MachineDraft(("x", "y"), [0], [0, 1, 2, 3], [[0], [1], [2], [3]], [brief_list(((0, 0),) if one == stay else ()) for one in row])
+            self.assertEqual(told_choices(chosen_draft(brief)), expected)
+            self.assertEqual(told_choices(pruned_draft(chosen_draft(brief))), expected)
+
     def test_drafts_of_choices(self):
         chance = dice(687)
         for _ in range(300):
@@ -310,6 +353,7 @@ class Machines(Case):
             self.assertEqual(whole(flipped_brief(brief)), flipped(condition))
             self.assertEqual(flipped_brief(flipped_brief(brief)), brief)
             self.assertEqual(goes_in([brief], 0), goes_in([condition], 0))
+            self.assertEqual(mask_in(brief), sum(1 << state for state in set(goes_in([condition], 0)[0])))
             self.assertEqual(goes_in([brief], 7), [[state + 7 for state in goes_in([condition], 0)[0]]])
             bits = [[32, 16, 8], [4, 2, 1]]
             told = masks_of_models(brief, bits)
