@@ -19,10 +19,12 @@ class Walk:
     def walk_from(self, start):
         """Go on as far as one can come from a row, without calls of itself: the road may be long."""
         goals = self.goals
+        inside = self.inside
         met = self.met
         lows = self.lows
+        pile = self.pile
         met[start] = lows[start] = len(met)
-        self.pile.append(start)
+        pile.append(start)
         road = [start]
         turns = [0]
         while road:
@@ -31,11 +33,11 @@ class Walk:
             if turn < len(goals[row]):
                 goal = goals[row][turn]
                 turns[-1] = turn + 1
-                if goal not in self.inside:
+                if goal not in inside:
                     continue
                 if goal not in met:
                     met[goal] = lows[goal] = len(met)
-                    self.pile.append(goal)
+                    pile.append(goal)
                     road.append(goal)
                     turns.append(0)
                 elif lows[goal] < lows[row]:
@@ -45,7 +47,10 @@ class Walk:
                 road.pop()
                 turns.pop()
                 if lows[row] == met[row]:
-                    self.leave(row)
+                    if pile[-1] == row and row not in goals[row]:
+                        lows[pile.pop()] = len(goals)
+                    else:
+                        self.leave(row)
                 elif lows[row] < lows[road[-1]]:
                     lows[road[-1]] = lows[row]
 

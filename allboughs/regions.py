@@ -97,7 +97,7 @@ class Arena:
             while rest:
                 self.sink(rest, depth + 1)
                 heads, side = self.heads_of(rest)
-                drawn = self.drawn_in(side, heads, depth + 1)
+                drawn = self.drawn_in(side, heads, depth + 1) if len(heads) < len(rest) else heads
                 lost = self.lost_beside(rest, drawn, side, depth + 1) if len(drawn) < len(rest) else []
                 if lost:
                     away = self.drawn_in(1 - side, lost, depth + 1)
